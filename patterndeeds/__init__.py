@@ -1,0 +1,1 @@
+"""Patterndeeds: programs of patterns and deeds, run over records."""
