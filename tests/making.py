@@ -13,6 +13,9 @@ PAIRS = ["or", "and", "join"]
 UNARY = ["not", "minus", "plus", "field"]
 INNER = PAIRS + UNARY + ["element", "set", "change", "step", "choose", "in", "match", "compare", "op",
                          "op", "call", "built", "getline", "compare", "getline"]
+# How many arguments each built-in word may have.
+ARGUMENTS = {"length": [0, 1, 1], "index": [2], "match": [2], "substr": [2, 3], "split": [2, 3], "sub": [2, 3], "gsub": [2, 3],
+             "tolower": [1], "toupper": [1], "int": [1], "close": [1], "sprintf": [1, 2, 5]}
 SIMPLE = ["expr", "print", "printf", "break", "continue", "next", "exit", "return", "delete"]
 NESTED = ["if", "while", "do", "for", "walk"]
 
@@ -61,8 +64,7 @@ class Trees:
         if tag == "element":
             return (tag, self.name(), self.several(level - 1, 1))
         if tag in ["call", "built"]:
-            word = pick(self.functions if tag == "call" else BUILTS)
-            return (tag, word, self.several(level - 1, 0))
+            return self.called(tag, level)
         if tag == "set":
             return (tag, self.target(level - 1), part)
         if tag == "change":
@@ -81,10 +83,22 @@ class Trees:
         target = pick([None, self.target(level - 1)])
         return (tag, kind, None if kind == "main" else part, target)
 
+    def called(self, tag, level):
+        word = self.random.choice(self.functions if tag == "call" else BUILTS)
+        return (tag, word, self.several(level - 1, 0))
+
+    def tags(self, level):
+        """The tags that a statement may have here."""
+        return SIMPLE + NESTED if level > 2 else SIMPLE
+
+    def inner(self, tag, level):
+        """The body of a statement with this tag."""
+        return self.body(level)
+
     def statement(self, level):
         """A statement of at most this depth, from 2 on."""
         pick = self.random.choice
-        tag = pick(SIMPLE + NESTED) if level > 2 else pick(SIMPLE)
+        tag = pick(self.tags(level))
         part = self.expression(level - 1)
         if tag in ["break", "continue", "next"]:
             return (tag,)
@@ -97,7 +111,7 @@ class Trees:
         if tag in ["print", "printf"]:
             out = pick([None, (pick([">", ">>", "|"]), part)])
             return (tag, self.several(level - 1, 0 if tag == "print" else 1), out)
-        body = self.body(level - 1)
+        body = self.inner(tag, level - 1)
         if tag == "if":
             return (tag, part, body, pick([(), self.body(level - 1)]))
         if tag == "while":
@@ -131,5 +145,86 @@ class Trees:
         functions = []
         for name in self.functions[:self.random.randrange(3)]:
             params = tuple(self.name() for _ in range(self.random.randrange(3)))
+            functions.append((name, params, self.body(level - 1)))
+        return rules, tuple(functions)
+
+
+class Faultless(Trees):
+    """A maker of random programs without a fault; most arguments are names, so that links arise."""
+
+    def __init__(self, random, names=None, functions=None):
+        names = names or ["x", "y", "n", "v1", "p2", "NF", "RS"]
+        Trees.__init__(self, random, names, functions or ["f", "g", "f1", "h"])
+        self.heads = {}
+        self.local = []
+        self.loops = 0
+        self.tag = ""
+
+    def name(self):
+        return self.random.choice(self.names + self.local * 3)
+
+    def expression(self, level):
+        if level > 1 and self.heads and self.random.random() < 0.3:
+            return self.called("call", level)
+        return Trees.expression(self, level)
+
+    def body(self, level):
+        return tuple(self.statement(level) for _ in range(self.random.randrange(4)))
+
+    def argument(self, level):
+        if self.random.random() < 0.7:
+            return ("name", self.name())
+        return self.expression(level)
+
+    def called(self, tag, level):
+        if tag == "call" and self.heads:
+            word = self.random.choice(sorted(self.heads))
+            many = self.random.randrange(len(self.heads[word]) + 1)
+            return (tag, word, tuple(self.argument(level - 1) for _ in range(many)))
+        word = self.random.choice(sorted(ARGUMENTS))
+        trees = [self.argument(level - 1) for _ in range(self.random.choice(ARGUMENTS[word]))]
+        if word == "split":
+            trees[1] = ("name", self.name())
+        if word in ("sub", "gsub") and len(trees) == 3:
+            trees[2] = self.target(level - 1)
+        return ("built", word, tuple(trees))
+
+    def tags(self, level):
+        tags = Trees.tags(self, level) + ["expr"] * 4
+        barred = [] if self.loops else ["break", "continue"]
+        if self.tag != "function":
+            barred = barred + ["return"]
+        if self.tag in ("begin", "end", "function"):
+            barred = barred + ["next"]
+        return [tag for tag in tags if tag not in barred]
+
+    def inner(self, tag, level):
+        looped = tag in ("while", "do", "for", "walk")
+        self.loops += looped
+        body = self.body(level)
+        self.loops -= looped
+        return body
+
+    def rule(self, level):
+        self.tag = self.random.choice(["begin", "end", "always", "when", "range"])
+        body = self.body(level - 1)
+        if self.tag == "when":
+            return (self.tag, self.expression(level - 1), self.random.choice([None, body]))
+        if self.tag == "range":
+            return (self.tag, self.expression(level - 1), self.expression(level - 1), self.random.choice([None, body]))
+        return (self.tag, body)
+
+    def program(self, level):
+        variables = [name for name in self.names if name.upper() != name]
+        self.heads = {}
+        for name in self.functions[:self.random.randrange(len(self.functions) + 1)]:
+            params = self.random.sample(variables, self.random.randrange(min(4, len(variables) + 1)))
+            self.heads[name] = tuple(params)
+        self.local = []
+        rules = tuple(self.rule(level) for _ in range(self.random.randrange(4)))
+        functions = []
+        for name, params in self.heads.items():
+            self.tag = "function"
+            self.local = list(params)
             functions.append((name, params, self.body(level - 1)))
         return rules, tuple(functions)
