@@ -63,7 +63,7 @@ def how_used(role, standing):
     if role == "called":
         return ""
     above = standing.above
-    if role == "walked" or above is None:
+    if above is None:
         return "value"
     if above[0] == "call":
         return ""
@@ -143,7 +143,7 @@ def is_clash_chain(program, value):
     if type(value) is not list or value == []:
         return False
     for slot in value:
-        if not is_slot(slot) or slot not in slots.slots:
+        if not is_slot(slot):
             return False
     if value[0] not in slots.used("array") or value[-1] not in slots.used("value"):
         return False

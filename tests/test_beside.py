@@ -123,6 +123,8 @@ class TestBeside(Case):
         for first, second in [(bad, good), (good, bad), (bad, bad)]:
             self.raises(UnsoundProgram, beside, first, second)
         self.assertIs(quiet("{ x[1]; x }"), True)
+        # A special name as an array is no target, and a clash chain is no error here.
+        self.assertIs(quiet("{ NR[1] = 2; NF[2]++; sub(x, y, FS[1]); split(x, RS) }"), True)
 
     def test_lists_are_new(self):
         program = program_of("x { y }")
