@@ -136,14 +136,10 @@ def read_pattern(source, at):
         char = sign_at(source, end)
         if char == "\\":
             end += 1
-            behind = sign_at(source, end)
-            if behind == "" or behind == "\n":
-                raise InvalidWord(at)
-            if behind == "/":
+            char += sign_at(source, end)
+            if char == "\\/":
                 char = "/"
-            else:
-                char = "\\" + behind
-        elif char == "" or char == "\n":
+        if char == "" or char[-1] == "\n":
             raise InvalidWord(at)
         parts.append(char)
         end += 1

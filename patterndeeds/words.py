@@ -163,4 +163,4 @@ def wants_blank(before, char):
         return goes_on(char) or char == "."
     if kind in WORD_LIKE:
         return goes_on(char) or kind == "name" and char == "("
-    return kind == "symbol" and len(text) == 1 and text + char in DOUBLES
+    return kind == "symbol" and text + char in DOUBLES

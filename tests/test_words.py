@@ -174,7 +174,7 @@ class TestAreWords(Case):
         for word in good:
             self.assertIs(are_words([word]), True, word)
         bad = [("key", "x"), ("key", ""), ("key", "length"), ("built", "x"), ("built", "in"), ("name", "in"), ("name", "sub"),
-               ("name", ""), ("name", "1x"), ("name", "x y"), ("name", "\u00e9"), ("call", "f"), ("number", ""), ("number", "."),
+               ("name", ""), ("name", "1x"), ("name", "x y"), ("name", "\u00e9"), ("name", "x\u00e9"), ("name", "x\u0661"), ("call", "f"), ("number", ""), ("number", "."),
                ("number", "1.2.3"), ("number", "9" * 61), ("number", "-1"), ("number", "1e5"), ("number", "\u0661"),
                ("number", "\u00b2"), ("text", "%"), ("text", "\r"), ("pattern", "\n"), ("pattern", "\\"), ("pattern", "\\/"), ("pattern", "\\\\\\"),
                ("pattern", "%"), ("pattern", "\\\\\\/"), ("symbol", "&"), ("symbol", ""), ("symbol", "/"), ("symbol", "/="),
@@ -185,6 +185,14 @@ class TestAreWords(Case):
             self.assertIs(are_words([word]), False, word)
             self.assertIs(are_words([name("x"), word, name("x")] if word not in [symbol("/"), symbol("/=")]
                                     else [symbol("+"), word]), False, word)
+
+    def test_kinds_of_values_are_exact(self):
+        for kind, text in [("key", "in"), ("built", "int"), ("name", "x"), ("call", "x"), ("number", "1"), ("text", "x"), ("pattern", "x"), ("symbol", "+"), ("line", "\n"), ("other", "x")]:
+            for other in [None, 1, True, [], [text], (text,), {}, Text(text), text.encode()]:
+                self.assertIs(are_words([(kind, other)]), False, (kind, other))
+                self.assertIs(are_words([(other, text)]), False, (other, text))
+            self.assertIs(are_words([(Text(kind), text)]), False)
+            self.assertIs(are_words([[kind, text]]), False)
 
     def test_lists(self):
         self.assertIs(are_words([]), True)
@@ -216,6 +224,10 @@ class TestAreWords(Case):
         self.assertIs(are_words([("call", "f"), symbol("(")]), True)
         self.assertIs(are_words([("call", "f")]), False)
         self.assertIs(are_words([name("f"), symbol("(")]), True)
+        for text in ["/", "/="]:
+            for ahead in [[], [symbol("+")], [("line", "\n")]]:
+                self.assertIs(are_words(ahead + [("text", text)]), True)
+                self.assertIs(are_words(ahead + [("pattern", text)]), True)
 
     def test_errors(self):
         bad = [value for value in VALUES if not are_words(value)] + [[("call", "f")], [symbol("/")], (name("x"),)]
@@ -237,6 +249,12 @@ class TestTooLarge(Case):
             self.assertIs(too_large([symbol(closing)] * 50 + [symbol("{")] * 30), False)
             self.assertIs(too_large([symbol(closing)] * 50 + [symbol("{")] * 31), True)
         self.assertIs(too_large([("text", "(")] * 60), False)
+        for other in [one for one in SINGLES + DOUBLES if one not in "()[]{}?:/" and one != "/="] + ["(", "?"]:
+            words = [symbol("(")] * 29 + [symbol(other)] + [symbol("(")] * (1 if other not in "(?" else 0)
+            self.assertIs(too_large(words), False)
+            self.assertIs(too_large(words + [symbol("(")]), True, other)
+        for word in [("text", ")"), ("pattern", ")"), ("line", "\n")]:
+            self.assertIs(too_large([symbol("(")] * 30 + [word] + [symbol("(")]), True)
 
     def test_words_in_a_row(self):
         for parting in [symbol(";"), ("line", "\n"), symbol("{"), symbol("}")]:
@@ -259,6 +277,11 @@ class TestTooLarge(Case):
                 inner = [symbol(opening)] * 2 + row + [symbol(closing), ("key", key)]
                 self.assertIs(too_large(inner), True)
         self.assertIs(too_large(row + row), False)
+        self.assertIs(too_large([symbol("{")] + row + [symbol("}"), symbol("{")] + row + [symbol("}")]), False)
+        self.assertIs(too_large([symbol("{")] + row + [symbol("}"), symbol("{")] + row + [("key", "if")]), True)
+        self.assertIs(too_large(row + [symbol("{")] + row + [symbol("}")] + row), False)
+        for word in [("text", "if"), ("pattern", "do"), ("key", "else"), ("key", "in"), ("key", "print")]:
+            self.assertIs(too_large([symbol("{")] + [symbol("="), word] * 61), False)
         self.assertIs(too_large([symbol("{")] + row[:59] + [name("x")] * 3 + [("key", "in")]), False)
 
     def test_limits_from_sources(self):
@@ -291,6 +314,12 @@ class TestWriting(Case):
                 ("= =", "= ="), ("& &", None), ("> = x", "> =x"), ("^ =", "^ ="), ("@ =", "@ ="), ("* =", "* =")]:
             if short is not None:
                 self.assertEqual(shortest_source(words_of(source)), short)
+
+    def test_blanks_that_are_not_needed(self):
+        for words, short in [([("text", "+"), symbol("=")], "\"+\"="), ([("pattern", "="), symbol("=")], "/=/="), ([symbol("++"), symbol("=")], "++="), ([symbol("=="), symbol("=")], "==="),
+                             ([symbol("<="), symbol("=")], "<=="), ([("text", "x"), name("x")], "\"x\"x"), ([symbol(")"), ("number", "1")], ")1"), ([symbol("$"), name("x")], "$x")]:
+            self.assertEqual(shortest_source(words), short)
+            self.assertEqual(words_of(short), words)
 
     def test_both_are_read_back_and_none_is_shorter(self):
         rnd = random_of("A1")
