@@ -16,21 +16,21 @@ LOGICAL = {"or": "||", "and": "&&"}
 class Part:
     """An expression at its place: what the grammar wants there, and what stands around it.
 
-    bare tells whether it stands in the list of a print without a bracket around; mark is joined
-    for the right part of a join, piped for the left part of a getline of kind |, else empty.
+    bare tells whether it stands in the list of a print without a bracket around; joined, whether
+    it is the right part of a join.
     """
 
-    def __init__(self, tree, want, bare, mark):
+    def __init__(self, tree, want, bare, joined):
         self.tree = tree
         self.want = want
         self.bare = bare
-        self.mark = mark
+        self.joined = joined
 
 
 def expression_row(tree, want, bare):
     """The written form of an expression at a place that wants a level."""
     signs = []
-    waiting = [Part(tree, want, bare, "")]
+    waiting = [Part(tree, want, bare, False)]
     while waiting:
         piece = waiting.pop()
         if type(piece) is str:
@@ -49,13 +49,12 @@ def has_brackets(part):
     tree = part.tree
     if level_of(tree) < part.want:
         return True
-    if part.mark == "joined" and first_sign(tree) in BARRED:
+    if part.joined and first_sign(tree) in BARRED:
         return True
-    if not part.bare:
-        return False
+    # Of a row of getlines of kind | the last one gets its brackets here, so no other one is bare.
     if tree[0] == "compare":
-        return tree[1] == ">"
-    return tree[0] == "getline" and tree[1] == "|" and part.mark != "piped"
+        return part.bare and tree[1] == ">"
+    return part.bare and tree[0] == "getline" and tree[1] == "|"
 
 
 def first_sign(tree):
@@ -90,7 +89,7 @@ def layout(tree, bare):
     if tag == "name":
         return [tree[1]]
     if tag == "field":
-        return ["$", Part(tree[1], FIELD_PART, bare, "")]
+        return ["$", Part(tree[1], FIELD_PART, bare, False)]
     if tag == "step":
         return step_layout(tree, bare)
     if tag in UNARY:
@@ -115,9 +114,9 @@ def infix_layout(tree, bare):
         return two_parts(tree[2], TARGET, " " + tree[1] + "= ", tree[3], ANY, bare)
     if tag == "choose":
         pieces = two_parts(tree[1], EITHER, " ? ", tree[2], ANY, bare)
-        return pieces + [" : ", Part(tree[3], CHOICE, bare, "")]
+        return pieces + [" : ", Part(tree[3], CHOICE, bare, False)]
     if tag == "join":
-        return [Part(tree[1], JOINED, bare, ""), " ", Part(tree[2], SUM, bare, "joined")]
+        return [Part(tree[1], JOINED, bare, False), " ", Part(tree[2], SUM, bare, True)]
     if tag == "match":
         if tree[3]:
             return two_parts(tree[1], COMPARED, " !~ ", tree[2], COMPARED, bare)
@@ -128,14 +127,14 @@ def infix_layout(tree, bare):
     else:
         sign, left, right = tree[1:]
     _, want, behind = INFIX[sign]
-    if tag == "compare" and sign == "<":
+    if sign == "<":
         want = FILE_READ
     return two_parts(left, want, " " + sign + " ", right, behind, bare)
 
 
 def two_parts(left, want, sign, right, behind, bare):
     """The pieces of two parts with a sign between."""
-    return [Part(left, want, bare, ""), sign, Part(right, behind, bare, "")]
+    return [Part(left, want, bare, False), sign, Part(right, behind, bare, False)]
 
 
 def row_layout(trees):
@@ -144,13 +143,13 @@ def row_layout(trees):
     for tree in trees:
         if pieces:
             pieces.append(", ")
-        pieces.append(Part(tree, ANY, False, ""))
+        pieces.append(Part(tree, ANY, False, False))
     return pieces
 
 
 def step_layout(tree, bare):
     """The pieces of a step."""
-    target = Part(tree[1], TARGET, bare, "")
+    target = Part(tree[1], TARGET, bare, False)
     if tree[3]:
         return [step_sign(tree), target]
     return [target, step_sign(tree)]
@@ -159,7 +158,7 @@ def step_layout(tree, bare):
 def unary_layout(tree, bare):
     """The pieces of a sign and its part; two signs of a kind are kept from becoming one."""
     sign = UNARY[tree[0]]
-    part = Part(tree[1], SIGNED, bare, "")
+    part = Part(tree[1], SIGNED, bare, False)
     if sign != "!" and level_of(tree[1]) >= SIGNED and first_sign(tree[1]) == sign:
         return [sign + " ", part]
     return [sign, part]
@@ -169,7 +168,7 @@ def in_layout(tree, bare):
     """The pieces of a test whether an array has an entry."""
     keys = tree[1]
     if len(keys) == 1:
-        return [Part(keys[0], INSIDE, bare, ""), " in " + tree[2]]
+        return [Part(keys[0], INSIDE, bare, False), " in " + tree[2]]
     return ["("] + row_layout(keys) + [") in " + tree[2]]
 
 
@@ -178,9 +177,9 @@ def getline_layout(tree, bare):
     _, kind, origin, target = tree
     pieces = ["getline"]
     if target is not None:
-        pieces = pieces + [" ", Part(target, TARGET, bare, "")]
+        pieces = pieces + [" ", Part(target, TARGET, bare, False)]
     if kind == "<":
-        return pieces + [" < ", Part(origin, ATOM, bare, "")]
+        return pieces + [" < ", Part(origin, ATOM, bare, False)]
     if kind == "|":
-        return [Part(origin, PIPE, bare, "piped"), " | "] + pieces
+        return [Part(origin, PIPE, bare, False), " | "] + pieces
     return pieces

@@ -130,7 +130,9 @@ class TestBrackets(Case):
         for part, text in [(("op", "+", X, Y), "z x + y"), (X, "z x"), (("text", "-"), "z \"-\""), (("field", X), "z $x"), (("call", "f", (X,)), "z f(x)"), (("built", "int", (X,)), "z int(x)"), (ONE, "z 1"), (("not", X), "z (!x)"),
                            (("minus", X), "z (-x)"), (("plus", X), "z (+x)"), (("step", X, 1, True), "z (++x)"), (("step", X, -1, True), "z (--x)"), (("step", X, -1, False), "z x--"), (A, "z (/a/)"), (("op", "*", A, X), "z (/a/ * x)"),
                            (("op", "+", ("op", "*", ("minus", X), Y), Z), "z (-x * y + z)"), (("op", "^", ("step", X, 1, True), Y), "z (++x ^ y)"), (("op", "^", ("minus", X), Y), "z (-x) ^ y"), (("op", "*", X, ("minus", Y)), "z x * -y"),
-                           (("op", "-", X, A), "z x - /a/"), (("op", "*", JOIN, X), "z (x y) * x"), (("op", "^", A, X), "z (/a/ ^ x)"), (("op", "-", ("step", X, 1, False), Y), "z x++ - y"), (JOIN, "z (x y)")]:
+                           (("op", "-", X, A), "z x - /a/"), (("op", "*", JOIN, X), "z (x y) * x"), (("op", "^", A, X), "z (/a/ ^ x)"), (("op", "-", ("step", X, 1, False), Y), "z x++ - y"), (JOIN, "z (x y)"),
+                           (("op", "+", ("op", "+", ("minus", X), Y), Z), "z (-x + y + z)"), (("op", "*", ("op", "/", A, X), Y), "z (/a/ / x * y)"), (("op", "^", ("op", "^", ("step", X, 1, True), Y), Z), "z (++x ^ y) ^ z"),
+                           (("op", "-", ("op", "-", X, Y), ("minus", Z)), "z x - y - -z"), (("op", "*", ("op", "+", ("minus", X), Y), Z), "z (-x + y) * z")]:
             self.assertEqual(expression_text(("join", Z, part)), text)
             self.assertEqual(expression_of(text), ("join", Z, part))
         self.assertEqual(expression_text(("join", ("minus", X), Y)), "-x y")
@@ -157,6 +159,7 @@ class TestBrackets(Case):
                     ((("compare", "==", MORE, X),), "(x > y) == x"), ((("compare", ">", PIPED, X),), "(x | getline > x)"), ((("set", X, ("set", Y, MORE)),), "x = y = (x > y)"), ((("join", X, ("set", Y, MORE)),), "x (y = x > y)"),
                     ((("field", MORE),), "$(x > y)"), ((("getline", "<", MORE, None),), "getline < (x > y)"), ((("getline", "|", MORE, None),), "((x > y) | getline)"), ((("getline", "main", None, ("field", PIPED)),), "getline $(x | getline)"),
                     ((("getline", "|", X, ("element", "n", (MORE,))),), "(x | getline n[x > y])"), ((("join", X, MORE),), "x (x > y)"), ((("compare", ">", ("compare", ">", X, Y), Z),), "((x > y) > z)"), ((("set", ("element", "n", (MORE,)), PIPED),), "n[x > y] = (x | getline)"),
+                    ((("text", "|"), ("text", ">")), "\"|\", \">\""), ((("pattern", "|"), ("match", X, ("pattern", ">"), True)), "/|/, x !~ />/"), ((("getline", "|", ("getline", "|", PIPED, None), X), X), "(x | getline | getline | getline x), x"),
                     ((("compare", "<", PIPED, MORE),), "(x | getline) < (x > y)"), ((("change", "+", X, MORE),), "x += (x > y)")]:
                 for out, behind in [(None, ""), ((">", X), " > x"), (("|", X), " | x")]:
                     self.assertEqual(text_of((tag, trees, out)), "  " + tag + " " + text + behind + "\n")
