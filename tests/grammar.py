@@ -9,7 +9,9 @@ from patterndeeds.decimals import decimal_of
 
 GRAMMAR = {}
 COMPARERS = ["<", "<=", "==", "!=", ">", ">="]
-JOINERS = ["name", "call", "built", "number", "text", "$", "("]
+# Texts that would be something else, were they no texts.
+MARKS = ["+", "-", "<", ">", "==", "~", "&&", "||", "|", "?", ":", "=", "+=", "++", "--", "$", "!", "(", ")", "[", "]", "{", "}", ";", ",", "in", "getline",
+         "if", "else", "while", "print", "x", "length", "f", "1", "\n", "BEGIN", "function"]
 
 
 def rule(name, symbols, action=None):
@@ -350,9 +352,9 @@ class Maker:
         if terminal == "number":
             return ("number", pick(["1", "2", ".5", "7.25"]))
         if terminal == "text":
-            return ("text", pick(["", "a", "(", "\n\"\\"]))
+            return ("text", pick(["", "a", "\n\"\\", pick(MARKS)]))
         if terminal == "pattern":
-            return ("pattern", pick(["", "a/b", "[", "\\."]))
+            return ("pattern", pick(["", "a/b", "\\.", pick(MARKS).strip()]))
         if terminal == "built":
             return ("built", pick(["substr", "length", "close"]))
         if terminal == "length":

@@ -8,7 +8,7 @@ from patterndeeds.printer import expression_text, program_text
 from patterndeeds.signs import BUILTS, DOUBLES, KEYS, SINGLES
 from patterndeeds.trees import depth, is_expression, is_program, places
 from patterndeeds.words import are_words, shortest_source, source_of, too_large, words_of
-from grammar import Maker, Recognizer, grammar
+from grammar import MARKS, Maker, Recognizer, grammar
 from helper import MANY, VALUES, Case, body_of, random_of
 
 X, Y, Z = ("name", "x"), ("name", "y"), ("name", "z")
@@ -84,6 +84,25 @@ class TestExpressions(Case):
                 ("x[y] z[1]", "(x[y]) (z[1])"), ("$x[1]", "$(x[1])"), ("$f(x)", "$(f(x))"), ("$length", "$(length)"), ("$1 $2", "($1) ($2)"), ("$x++ + y", "($x++) + y"),
                 ("x = y ~ z", "x = (y ~ z)"), ("x ? y : z || x", "x ? y : (z || x)"), ("f(x = y, z ? x : y)", "f((x = y), (z ? x : y))")]:
             self.assertEqual(expression_of(source), expression_of(whole), source)
+
+    def test_texts_are_no_symbols(self):
+        for mark in MARKS:
+            text = ("text", mark)
+            written = source_of([text])
+            self.assertEqual(expression_of("x " + written), ("join", X, text))
+            self.assertEqual(expression_of("f(" + written + ")"), ("call", "f", (text,)))
+            self.assertEqual(expression_of("getline < " + written), ("getline", "<", text, None))
+            self.assertEqual(body_of(written + "; " + written), (("expr", text), ("expr", text)))
+            self.assertEqual(body_of("print x " + written), (("print", (("join", X, text),), None),))
+            self.assertEqual(body_of("print " + written + " > " + written), (("print", (text,), (">", text)),))
+            self.assertEqual(body_of("exit " + written), (("exit", text),))
+            self.assertEqual(program_of("x " + written + " { }"), ((("when", ("join", X, text), ()),), ()))
+            if mark != "\n":
+                pattern = ("pattern", mark)
+                written = source_of([pattern])
+                self.assertEqual(body_of("x ~ " + written), (("expr", ("match", X, pattern, False)),))
+                self.assertEqual(body_of("return " + written + "; print " + written), (("return", pattern), ("print", (pattern,), None)))
+                self.assertEqual(program_of(written + "\n" + written + " { }"), ((("when", pattern, None), ("when", pattern, ())), ()))
 
     def test_steps_and_fields(self):
         self.assertEqual(expression_of("$x++"), ("step", ("field", X), 1, False))
@@ -272,7 +291,7 @@ class TestItems(Case):
 
 POOL = ([("symbol", one) for one in list(SINGLES) + list(DOUBLES)] + [("key", key) for key in KEYS] + [("built", word) for word in BUILTS]
         + [("name", "x"), ("name", "n"), ("call", "f"), ("number", "1"), ("text", "t"), ("pattern", "p"), ("built", "length"), ("line", "\n")] * 5
-        + [("symbol", one) for one in "(),;{}|<>?:$="] * 3)
+        + [("symbol", one) for one in "(),;{}|<>?:$="] * 3 + [("text", mark) for mark in MARKS] + [("pattern", mark) for mark in MARKS if mark != "\n"])
 
 
 class TestGrammar(Case):
