@@ -215,7 +215,7 @@ class TestStatements(Case):
                 ("delete x, y", 3), ("delete x y", 3), ("if x", 2), ("if ()", 3), ("if (x", 4), ("if (x) }", 5), ("if (x) else", 5), ("while () x", 3), ("while (x) }", 5),
                 ("while\n(x) ;", 2), ("if\n(x) ;", 2), ("if (x\n) ;", 4), ("for\n(;;) ;", 2), ("for (;) ;", 4), ("for (;;;) ;", 5), ("for (x) ;", 4), ("for (x, y in z) ;", 4),
                 ("for (x in y z) ;", 6), ("for (x in y; z) ;", 8), ("for (\n;;) ;", 3), ("for (;\n;) ;", 4), ("for (;;\n) ;", 5), ("for (x in\ny) ;", 5), ("for (;;) }", 6),
-                ("for ((x) in y) ;", 8), ("for (x[1] in y) ;", 9), ("for ((x, y) in z) ;", 10), ("for (x y in z) ;", 7), ("{ x } else", 4), ("function f() { }", 1), ("BEGIN { }", 1),
+                ("for (1 in y) ;", 6), ("for (\"x\" in y) ;", 6), ("for (x + y) ;", 6), ("for (x = y) ;", 6), ("for (x y) ;", 5), ("for (x in 1) ;", 5), ("for (x in) ;", 5), ("for (x in f(y)) ;", 5), ("for (in y) ;", 3), ("for ((x) in y) ;", 8), ("for (x[1] in y) ;", 9), ("for ((x, y) in z) ;", 10), ("for (x y in z) ;", 7), ("{ x } else", 4), ("function f() { }", 1), ("BEGIN { }", 1),
                 ("; x ; ) ", 4), ("in", 1), ("getline print", 2), ("print print", 2), ("print ,", 2), ("do", 2), ("do }", 2)]:
             self.raises_with(NoProgram, "number", number, program_of, "{" + source + "}")
         for source in ["{", "{ {", "{ x", "{ x;", "{ if (x)", "{ if (x) {", "{ if (x) y; else", "{ do x", "{ do x; while (y)", "{ for (", "{ for (x in y)", "{ print", "{ print x >",
