@@ -10,7 +10,8 @@ from patterndeeds.decimals import decimal_of
 GRAMMAR = {}
 COMPARERS = ["<", "<=", "==", "!=", ">", ">="]
 # Texts that would be something else, were they no texts.
-MARKS = ["+", "-", "<", ">", "==", "~", "&&", "||", "|", "?", ":", "=", "+=", "++", "--", "$", "!", "(", ")", "[", "]", "{", "}", ";", ",", "in", "getline",
+MARKS = ["+", "-", "<", ">", "==", "~", "&&", "||", "|", "?", ":", "=", "+=", "++", "--", "$", "!", "(", ")", "[", "]",
+        "{", "}", ";", ",", "in", "getline",
          "if", "else", "while", "print", "x", "length", "f", "1", "\n", "BEGIN", "function"]
 
 

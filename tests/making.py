@@ -14,7 +14,8 @@ UNARY = ["not", "minus", "plus", "field"]
 INNER = PAIRS + UNARY + ["element", "set", "change", "step", "choose", "in", "match", "compare", "op",
                          "op", "call", "built", "getline", "compare", "getline"]
 # How many arguments each built-in word may have.
-ARGUMENTS = {"length": [0, 1, 1], "index": [2], "match": [2], "substr": [2, 3], "split": [2, 3], "sub": [2, 3], "gsub": [2, 3],
+ARGUMENTS = {"length": [0, 1, 1], "index": [2], "match": [2], "substr": [2, 3], "split": [2, 3], "sub": [2, 3],
+        "gsub": [2, 3],
              "tolower": [1], "toupper": [1], "int": [1], "close": [1], "sprintf": [1, 2, 5]}
 SIMPLE = ["expr", "print", "printf", "break", "continue", "next", "exit", "return", "delete"]
 NESTED = ["if", "while", "do", "for", "walk"]

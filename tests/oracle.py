@@ -11,10 +11,11 @@ from patterndeeds.words import source_of, words_of
 SPECIALS = "FILENAME FNR FS NF NR OFS ORS RLENGTH RS RSTART SUBSEP".split()
 STATEMENTS = "expr print printf if while do for walk break continue next exit return delete".split()
 RULES = "begin end always when range".split()
-EXPRESSIONS = """number text pattern name element field set change step choose or and in match compare join op not minus plus
-call built getline""".split()
+EXPRESSIONS = """number text pattern name element field set change step choose or and in match compare join op
+not minus plus call built getline""".split()
 TAGS = set(STATEMENTS + RULES + EXPRESSIONS)
-COUNTS = {"length": [0, 1], "index": [2], "match": [2], "substr": [2, 3], "split": [2, 3], "sub": [2, 3], "gsub": [2, 3], "tolower": [1],
+COUNTS = {"length": [0, 1], "index": [2], "match": [2], "substr": [2, 3], "split": [2, 3], "sub": [2, 3],
+        "gsub": [2, 3], "tolower": [1],
           "toupper": [1], "int": [1], "close": [1]}
 LOOPS = ["while", "do", "for", "walk"]
 
@@ -184,7 +185,8 @@ def kinds_of(program):
 
 
 def calls_of(program):
-    return sorted({(node.owner[0] if node.owner else "", node.tree[1]) for node in nodes(program) if node.tree[0] == "call"})
+    return sorted({(node.owner[0] if node.owner else "",
+            node.tree[1]) for node in nodes(program) if node.tree[0] == "call"})
 
 
 def rows_of_calls(program, longest):

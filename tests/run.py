@@ -24,7 +24,8 @@ def run_folder(folder):
 
 def count_folder(folder):
     """The counts of a folder, from a process of its own."""
-    done = subprocess.run([sys.executable, os.path.abspath(__file__), "--one", folder], stdout=subprocess.PIPE, text=True)
+    done = subprocess.run([sys.executable, os.path.abspath(__file__), "--one", folder], stdout=subprocess.PIPE,
+            text=True)
     rows = [row.split() for row in done.stdout.splitlines() if row.startswith("counted ")]
     if len(rows) != 1:
         return 0, 1

@@ -20,18 +20,29 @@ def quiet(source):
 class TestQuiet(Case):
 
     def test_quiet(self):
-        for source in ["", "x", "NR", "{ x = NR; y[1] = $2 }", "{ x++; ++y[NF]; z[$1] += $2; for (k in a) delete a[k] }", "{ print $1 > \"f\"; printf FS | \"g\" }", "{ sub(a, b, c); gsub(a, b, c[1]); sub(NR, $1, x) }",
-                       "function f(a) { return a + NF } { x = f($1) }", "{ index($1, FS); substr(a, b); split($0, a, FS); length($0); sprintf(NR); tolower(a); int(NF); toupper($1) }", "BEGIN { x = 1 } END { print x }", "{ x[$1]; $1 ~ FS; if ($1) x = $2; while (NR) break }",
-                       "{ exit_ = next_ }", "{ return_ }", "{ f(NR, $1) } function f(a, b) { b = a }", "x[$1]", "{ split(x, a) }"]:
+        for source in ["", "x", "NR", "{ x = NR; y[1] = $2 }",
+                "{ x++; ++y[NF]; z[$1] += $2; for (k in a) delete a[k] }", "{ print $1 > \"f\"; printf FS | \"g\" }",
+                "{ sub(a, b, c); gsub(a, b, c[1]); sub(NR, $1, x) }",
+                       "function f(a) { return a + NF } { x = f($1) }",
+                       "{ index($1, FS); substr(a, b); split($0, a, FS); length($0); sprintf(NR); tolower(a); "
+                       "int(NF); toupper($1) }", "BEGIN { x = 1 } END { print x }",
+                       "{ x[$1]; $1 ~ FS; if ($1) x = $2; while (NR) break }",
+                       "{ exit_ = next_ }", "{ return_ }", "{ f(NR, $1) } function f(a, b) { b = a }", "x[$1]",
+                       "{ split(x, a) }"]:
             self.assertIs(quiet(source), True, source)
 
     def test_each_thing_that_is_not(self):
-        for part in ["getline", "getline x", "getline < x", "x | getline", "x | getline y", "match(x, y)", "close(x)", "$1 = 2", "$x += 1", "NR = 1", "FS = x", "NF -= 1", "$1++", "--$x", "NR++", "++SUBSEP", "sub(x, y)", "gsub(x, y)", "sub(x, y, $1)", "gsub(x, y, NF)",
+        for part in ["getline", "getline x", "getline < x", "x | getline", "x | getline y", "match(x, y)", "close(x)",
+                "$1 = 2", "$x += 1", "NR = 1", "FS = x", "NF -= 1", "$1++", "--$x", "NR++", "++SUBSEP", "sub(x, y)",
+                "gsub(x, y)", "sub(x, y, $1)", "gsub(x, y, NF)",
                      "sub(x, y, $0)"] + [name + " = 1" for name in SPECIALS]:
-            for source in ["{ %s }", "{ z[%s] }", "%s", "1, %s", "BEGIN { if (1) %s }", "END { while (%s) ; }", "{ print 1, (%s) }", "{ for (; ; %s) ; }", "{ q = !(%s) }", "function f() { %s }", "function f(a) { if (a) { return %s } } { x }", "{ exit_ > (%s) }",
+            for source in ["{ %s }", "{ z[%s] }", "%s", "1, %s", "BEGIN { if (1) %s }", "END { while (%s) ; }",
+                    "{ print 1, (%s) }", "{ for (; ; %s) ; }", "{ q = !(%s) }", "function f() { %s }",
+                    "function f(a) { if (a) { return %s } } { x }", "{ exit_ > (%s) }",
                            "{ g(1 (%s)) } function g(a) { }", "{ int(%s) }", "{ print > (%s) }"]:
                 self.assertIs(quiet(source.replace("%s", part)), False, source + part)
-        for source in ["{ next }", "x { if (y) next }", "{ exit }", "{ exit 1 }", "END { exit }", "function f() { exit }", "{ for (NR in x) ; }", "function f(a) { for (FS in a) ; }"]:
+        for source in ["{ next }", "x { if (y) next }", "{ exit }", "{ exit 1 }", "END { exit }",
+                "function f() { exit }", "{ for (NR in x) ; }", "function f(a) { for (FS in a) ; }"]:
             self.assertIs(quiet(source), False, source)
 
     def test_random_programs(self):
@@ -78,9 +89,12 @@ class TestBeside(Case):
         self.assertEqual(origins[0], (0, 0))
         tables = [places(program), places(changed)]
         self.assertEqual([None] + [tables[which][place] for which, place in origins[1:]], places(both))
-        self.assertEqual(sorted(origins[1:]), [(which, place) for which in (0, 1) for place in range(1, len(tables[which]))])
-        self.assertEqual([row for row in origins[1:] if row[0] == 0], [(0, place) for place in range(1, len(tables[0]))])
-        self.assertEqual([row for row in origins[1:] if row[0] == 1], [(1, place) for place in range(1, len(tables[1]))])
+        self.assertEqual(sorted(origins[1:]), [(which, place) for which in (0, 1) for place in range(1,
+                len(tables[which]))])
+        self.assertEqual([row for row in origins[1:] if row[0] == 0], [(0, place) for place in range(1,
+                len(tables[0]))])
+        self.assertEqual([row for row in origins[1:] if row[0] == 1], [(1, place) for place in range(1,
+                len(tables[1]))])
         self.assertEqual(beside(program=program, other_program=other), (both, pairs, origins))
 
     def test_by_hand(self):
@@ -90,13 +104,18 @@ class TestBeside(Case):
         table = dict(pairs)
         self.assertEqual(sorted(table), ["f", "x", "y"])
         self.assertEqual(both[0][:2], first[0])
-        self.assertEqual(origins, [(0, 0), (0, 1), (0, 2), (0, 3), (0, 4), (0, 5), (1, 1), (1, 2), (1, 3), (0, 6), (1, 4), (1, 5), (1, 6)])
+        self.assertEqual(origins, [(0, 0), (0, 1), (0, 2), (0, 3), (0, 4), (0, 5), (1, 1), (1, 2), (1, 3), (0, 6),
+                (1, 4), (1, 5), (1, 6)])
         self.hold(first, second)
         self.hold(second, first)
 
     def test_names_that_stand_in_both(self):
-        for first, second in [("x", "x"), ("x", "y"), ("x", "function x() { }"), ("function f(x) { x }", "x"), ("function f(x) { }", "function f(x) { }"), ("function x(f) { }", "function f(x) { }"), ("{ f() } function f() { }", "{ f[1] }"), ("NR FS", "NR FS"),
-                              ("v1 v2", "v1 v3"), ("v1", "v1 v2 v3 v5"), ("v2 v3 x", "x v2 v3 v4"), ("", "x"), ("x", ""), ("", ""), ("function f() { x { y } }".replace("x {", "if (x) {"), "{ f = x } function g() { f; y }")]:
+        for first, second in [("x", "x"), ("x", "y"), ("x", "function x() { }"), ("function f(x) { x }", "x"),
+                ("function f(x) { }", "function f(x) { }"), ("function x(f) { }", "function f(x) { }"),
+                ("{ f() } function f() { }", "{ f[1] }"), ("NR FS", "NR FS"),
+                              ("v1 v2", "v1 v3"), ("v1", "v1 v2 v3 v5"), ("v2 v3 x", "x v2 v3 v4"), ("", "x"),
+                              ("x", ""), ("", ""), ("function f() { x { y } }".replace("x {", "if (x) {"),
+                              "{ f = x } function g() { f; y }")]:
             self.hold(program_of(first), program_of(second))
 
     def test_not_quiet_and_not_sound(self):

@@ -16,20 +16,29 @@ ALL = [calls, reached, rings, deepest, without_unreached]
 def functions_of(**bodies):
     """A program in which each function of a name calls those in a string; `rule` is the rule."""
     rows = ["{ %s }" % "; ".join(name + "()" for name in bodies.pop("rule", ""))]
-    rows += ["function %s() { %s }" % (name, "; ".join(called + "()" for called in body)) for name, body in bodies.items()]
+    rows += ["function %s() { %s }" % (name, "; ".join(called + "()" for called in body)) for name,
+            body in bodies.items()]
     return program_of("\n".join(rows))
 
 
 class TestCalls(Case):
 
     def test_each_place(self):
-        for source in ["f()", "1, f()", "f() { }", "{ f() }", "{ x = f() }", "{ x[f()] }", "{ $f() }", "{ $f() = 1 }", "{ x[f()]++ }", "{ print f() }", "{ print > f() }", "{ printf 1 | f() }", "{ if (f()) ; }", "{ if (1) f() }", "{ if (1) ; else f() }",
-                       "{ while (f()) ; }", "{ while (1) f() }", "{ do f(); while (1) }", "{ do ; while (f()) }", "{ for (f(); ; ) ; }", "{ for (; f(); ) ; }", "{ for (; ; f()) ; }", "{ for (;;) f() }", "{ for (x in y) f() }", "{ exit f() }", "{ delete x[f()] }",
-                       "{ getline < f() }", "{ f() | getline }", "{ getline x[f()] }", "{ 1 ? 2 : f() }", "{ f() in x }", "{ (1, f()) in x }", "{ 1 ~ f() }", "{ 1 < f() }", "{ 1 f() }", "{ !f() }", "{ -f() }", "{ int(f()) }", "{ 1 && f() }", "{ 1 || f() }", "BEGIN { f() }", "END { f() }"]:
+        for source in ["f()", "1, f()", "f() { }", "{ f() }", "{ x = f() }", "{ x[f()] }", "{ $f() }", "{ $f() = 1 }",
+                "{ x[f()]++ }", "{ print f() }", "{ print > f() }", "{ printf 1 | f() }", "{ if (f()) ; }",
+                "{ if (1) f() }", "{ if (1) ; else f() }",
+                       "{ while (f()) ; }", "{ while (1) f() }", "{ do f(); while (1) }", "{ do ; while (f()) }",
+                       "{ for (f(); ; ) ; }", "{ for (; f(); ) ; }", "{ for (; ; f()) ; }", "{ for (;;) f() }",
+                       "{ for (x in y) f() }", "{ exit f() }", "{ delete x[f()] }",
+                       "{ getline < f() }", "{ f() | getline }", "{ getline x[f()] }", "{ 1 ? 2 : f() }",
+                       "{ f() in x }", "{ (1, f()) in x }", "{ 1 ~ f() }", "{ 1 < f() }", "{ 1 f() }", "{ !f() }",
+                       "{ -f() }", "{ int(f()) }", "{ 1 && f() }", "{ 1 || f() }", "BEGIN { f() }", "END { f() }"]:
             self.assertEqual(calls(program_of(source + "\nfunction f() { }")), [("", "f")], source)
             if source[0] == "{":
-                self.assertEqual(calls(program_of("function g() " + source + "\nfunction f() { }")), [("g", "f")], source)
-        self.assertEqual(calls(program_of("{ f(f(g())) } function f(a) { return g() } function g() { }")), [("", "f"), ("", "g"), ("f", "g")])
+                self.assertEqual(calls(program_of("function g() " + source + "\nfunction f() { }")), [("g", "f")],
+                        source)
+        self.assertEqual(calls(program_of("{ f(f(g())) } function f(a) { return g() } function g() { }")),
+                [("", "f"), ("", "g"), ("f", "g")])
         self.assertEqual(calls(program_of("{ length; int(1) }")), [])
 
     def test_lists_are_ascending(self):
@@ -39,22 +48,31 @@ class TestCalls(Case):
 
     def test_reached_and_rings(self):
         for bodies, reached_now, rings_now, deepest_now in [
-                ({}, [], [], 0), (dict(f=""), [], [], 0), (dict(rule="f", f=""), ["f"], [], 1), (dict(rule="f", f="f"), ["f"], ["f"], None), (dict(f="f"), [], ["f"], 0), (dict(f="g", g="f"), [], ["f", "g"], 0),
-                (dict(rule="f", f="g", g="h", h=""), ["f", "g", "h"], [], 3), (dict(rule="f", f="g", g="h", h="g"), ["f", "g", "h"], ["g", "h"], None), (dict(rule="f", f="", g="g"), ["f"], ["g"], 1),
-                (dict(rule="fg", f="g", g="h", h="", i="f"), ["f", "g", "h"], [], 3), (dict(rule="h", f="g", g="f", h=""), ["h"], ["f", "g"], 1), (dict(rule="f", f="gh", g="i", h="", i="j", j=""), list("fghij"), [], 4),
+                ({}, [], [], 0), (dict(f=""), [], [], 0), (dict(rule="f", f=""), ["f"], [], 1),
+                (dict(rule="f", f="f"), ["f"], ["f"], None), (dict(f="f"), [], ["f"], 0),
+                (dict(f="g", g="f"), [], ["f", "g"], 0),
+                (dict(rule="f", f="g", g="h", h=""), ["f", "g", "h"], [], 3),
+                (dict(rule="f", f="g", g="h", h="g"), ["f", "g", "h"], ["g", "h"], None),
+                (dict(rule="f", f="", g="g"), ["f"], ["g"], 1),
+                (dict(rule="fg", f="g", g="h", h="", i="f"), ["f", "g", "h"], [], 3),
+                (dict(rule="h", f="g", g="f", h=""), ["h"], ["f", "g"], 1),
+                (dict(rule="f", f="gh", g="i", h="", i="j", j=""), list("fghij"), [], 4),
                 (dict(rule="a", a="bc", b="d", c="d", d="ef", e="f", f="", g="a"), list("abcdef"), [], 5)]:
             program = functions_of(**bodies)
-            self.assertEqual([reached(program), rings(program), deepest(program)], [reached_now, rings_now, deepest_now], bodies)
+            self.assertEqual([reached(program), rings(program), deepest(program)],
+                    [reached_now, rings_now, deepest_now], bodies)
 
     def test_way_to(self):
         program = functions_of(rule="ab", a="c", b="d", c="e", d="f", e="f", f="", g="f", h="h")
-        for name, way in [("a", ["a"]), ("b", ["b"]), ("c", ["a", "c"]), ("d", ["b", "d"]), ("e", ["a", "c", "e"]), ("f", ["b", "d", "f"]), ("g", None), ("h", None)]:
+        for name, way in [("a", ["a"]), ("b", ["b"]), ("c", ["a", "c"]), ("d", ["b", "d"]), ("e", ["a", "c", "e"]),
+                ("f", ["b", "d", "f"]), ("g", None), ("h", None)]:
             self.assertEqual(way_to(program, name), way)
             self.assertEqual(way_to(program=program, function=name), way)
         self.assertEqual(way_to(functions_of(rule="a", a="ab", b="a"), "b"), ["a", "b"])
 
     def test_without_unreached(self):
-        program = program_of("function f() { a; b } { g(); if (x) y } function g() { c; h() } function i() { while (d) e } function h() { k } BEGIN { z } function j() { l }")
+        program = program_of("function f() { a; b } { g(); if (x) y } function g() { c; h() } function i() { "
+                             "while (d) e } function h() { k } BEGIN { z } function j() { l }")
         smaller, moved = without_unreached(program)
         self.assertEqual([function[0] for function in smaller[1]], ["g", "h"])
         self.assertEqual(smaller[0], program[0])

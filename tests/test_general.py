@@ -11,21 +11,30 @@ from making import Faultless
 from helper import random_of
 
 INTERFACE = {
-    "words": {"words_of": ["source"], "spots_of": ["source"], "are_words": ["value"], "too_large": ["words"], "source_of": ["words"], "shortest_source": ["words"]},
+    "words": {"words_of": ["source"], "spots_of": ["source"], "are_words": ["value"], "too_large": ["words"],
+    "source_of": ["words"], "shortest_source": ["words"]},
     "trees": {"is_program": ["value"], "is_expression": ["value"], "places": ["program"], "depth": ["program"]},
     "printer": {"program_text": ["program"], "expression_text": ["expression"]},
     "parser": {"program_of": ["source"], "expression_of": ["source"]},
     "names": {"faults": ["program"]},
-    "kinds": {"is_sound": ["program"], "uses": ["program"], "links": ["program"], "clash_chain": ["program"], "is_clash_chain": ["program", "value"], "tied": ["program"], "slot_kinds": ["program"], "scalars": ["program"], "arrays": ["program"],
+    "kinds": {"is_sound": ["program"], "uses": ["program"], "links": ["program"], "clash_chain": ["program"],
+    "is_clash_chain": ["program", "value"], "tied": ["program"], "slot_kinds": ["program"], "scalars": ["program"],
+    "arrays": ["program"],
               "parameter_kinds": ["program", "function"]},
-    "calls": {"calls": ["program"], "reached": ["program"], "way_to": ["program", "function"], "rings": ["program"], "deepest": ["program"], "without_unreached": ["program"]},
-    "renaming": {"renamed": ["program", "pairs"], "renamed_head": ["program", "function", "names"], "plain": ["program"], "likeness": ["program", "other_program"]},
+    "calls": {"calls": ["program"], "reached": ["program"], "way_to": ["program", "function"], "rings": ["program"],
+    "deepest": ["program"], "without_unreached": ["program"]},
+    "renaming": {"renamed": ["program", "pairs"], "renamed_head": ["program", "function", "names"],
+    "plain": ["program"], "likeness": ["program", "other_program"]},
     "beside": {"is_quiet": ["program"], "beside": ["program", "other_program"]},
 }
-INVALID = {"source": errors.InvalidSource, "words": errors.InvalidWords, "program": errors.InvalidProgram, "other_program": errors.InvalidProgram, "expression": errors.InvalidExpression, "function": errors.InvalidFunction, "pairs": errors.InvalidNames,
+INVALID = {"source": errors.InvalidSource, "words": errors.InvalidWords, "program": errors.InvalidProgram,
+        "other_program": errors.InvalidProgram, "expression": errors.InvalidExpression,
+        "function": errors.InvalidFunction, "pairs": errors.InvalidNames,
            "names": errors.InvalidNames}
-GOOD = {"source": "x", "words": [("name", "x")], "program": ((), (("f", ("a",), ()),)), "other_program": ((), ()), "expression": ("name", "x"), "function": "f", "pairs": [("f", "g")], "names": ("b",), "value": None}
-BAD = {"source": "x%", "words": [("call", "x")], "program": ((), ()) + ((),), "other_program": None, "expression": ("name", "in"), "function": "in", "pairs": [("f", "NR")], "names": ["b"]}
+GOOD = {"source": "x", "words": [("name", "x")], "program": ((), (("f", ("a",), ()),)), "other_program": ((), ()),
+        "expression": ("name", "x"), "function": "f", "pairs": [("f", "g")], "names": ("b",), "value": None}
+BAD = {"source": "x%", "words": [("call", "x")], "program": ((), ()) + ((),), "other_program": None,
+        "expression": ("name", "in"), "function": "in", "pairs": [("f", "NR")], "names": ["b"]}
 
 
 def functions():
@@ -81,7 +90,8 @@ class TestInterface(Case):
 
     def test_truths_are_truths(self):
         for value in VALUES:
-            for test in [words.are_words, trees.is_program, trees.is_expression, lambda one: kinds.is_clash_chain(((), ()), one)]:
+            for test in [words.are_words, trees.is_program, trees.is_expression,
+                    lambda one: kinds.is_clash_chain(((), ()), one)]:
                 self.assertIn(test(value), (True, False))
                 self.assertIs(type(test(value)), bool)
         for program in [GOOD["program"], ((), ())]:
@@ -117,10 +127,13 @@ class TestLimits(Case):
 
     def test_large_programs(self):
         """All functions answer for programs of sources at the limit."""
-        sources = ["function f%d(a, b) { f%d(b, a); a[1] }\n" % (at, at + 1) for at in range(250)] + ["function f250(a, b) { length(b) }\n{ f0(x, y) }\n"]
-        chain = ["function f%d(a) { f%d(a) }\n" % (at, at + 1) for at in range(280)] + ["function f280(a) { a[1] }\n{ f0(x); x = 1 }\n"]
+        sources = ["function f%d(a, b) { f%d(b, a); a[1] }\n" % (at,
+                at + 1) for at in range(250)] + ["function f250(a, b) { length(b) }\n{ f0(x, y) }\n"]
+        chain = ["function f%d(a) { f%d(a) }\n" % (at,
+                at + 1) for at in range(280)] + ["function f280(a) { a[1] }\n{ f0(x); x = 1 }\n"]
         wide = ["{ x%d = y%d[%d] }\n" % (at, at, at) for at in range(500)]
-        for source in ["".join(sources), "".join(chain), "".join(wide), "x\n" * 5900, "{" * 28 + "x = 1\n" * 1500 + "}" * 28]:
+        for source in ["".join(sources), "".join(chain), "".join(wide), "x\n" * 5900,
+                "{" * 28 + "x = 1\n" * 1500 + "}" * 28]:
             self.assertLess(len(source), 12000)
             program = parser.program_of(source)
             self.assertEqual(parser.program_of(printer.program_text(program)), program)
@@ -143,15 +156,19 @@ class TestLimits(Case):
         for levels in (12, 25, 38, 60):
             statement, tree = ("next",), ("name", "x")
             for at in range(levels):
-                statement = [("while", ("name", "x"), (statement,)), ("if", tree, (), (statement,)), ("do", (statement,), tree), ("for", (("expr", tree),), tree, (), (statement,))][at % 4]
-                tree = [("minus", tree), ("call", "f", (tree,)), ("element", "y", (tree,)), ("getline", "<", tree, ("field", ("name", "x"))), ("set", ("field", tree), tree if at < 12 else ("name", "x"))][at % 5]
+                statement = [("while", ("name", "x"), (statement,)), ("if", tree, (), (statement,)),
+                        ("do", (statement,), tree), ("for", (("expr", tree),), tree, (), (statement,))][at % 4]
+                tree = [("minus", tree), ("call", "f", (tree,)), ("element", "y", (tree,)),
+                        ("getline", "<", tree, ("field", ("name", "x"))),
+                        ("set", ("field", tree), tree if at < 12 else ("name", "x"))][at % 5]
             program = ((("always", (statement,)), ("when", tree, None)), (("f", ("a",), ()),))
             self.assertTrue(trees.is_program(program))
             self.assertGreater(trees.depth(program), levels)
             self.assertEqual(names.faults(program), [])
             self.assertIs(kinds.is_sound(program), True)
             self.assertEqual(calls.calls(program), [("", "f")])
-            self.assertEqual(renaming.plain(renaming.renamed(program, [("x", "y"), ("y", "x"), ("f", "g")])), renaming.plain(program))
+            self.assertEqual(renaming.plain(renaming.renamed(program, [("x", "y"), ("y", "x"), ("f", "g")])),
+                    renaming.plain(program))
             self.assertIs(beside.is_quiet(program), False)
             if levels < 25:
                 self.assertEqual(parser.program_of(printer.program_text(program)), program)

@@ -105,7 +105,8 @@ class TestKinds(Case):
             self.assertEqual(words_of(text), [("number", text)])
             self.assertEqual(words_of(text + " x"), [("number", text), name("x")])
             self.assertEqual(words_of("x" + text if text[0] == "." else "+" + text)[-1], ("number", text))
-        for text in ["0" * 61, "9" * 61, "9" * 30 + "." + "9" * 31, "." + "1" * 61, "1" * 61 + ".", "1x", "1_", "1.x", ".1_",
+        for text in ["0" * 61, "9" * 61, "9" * 30 + "." + "9" * 31, "." + "1" * 61, "1" * 61 + ".", "1x", "1_", "1.x",
+                ".1_",
                      "1..", "1.2.", "1.2.3", ".1.", "1e5", "..1", "1" * 61 + "x"]:
             self.raises_with(InvalidWord, "index", 0, words_of, text)
             self.raises_with(InvalidWord, "index", 2, words_of, "+ " + text + " 1")
@@ -126,13 +127,15 @@ class TestKinds(Case):
             self.assertEqual(words_of(closing + "/ 2 /")[-3:], [symbol("/"), ("number", "2"), symbol("/")])
             self.assertEqual(words_of(closing + "/= 2")[-2:], [symbol("/="), ("number", "2")])
             self.assertEqual(words_of(closing + "//a/")[-2:], [symbol("/"), ("pattern", "a")])
-        for other in ["", "x\n", "x #\n", "(", "[", "{", "}", ";", ",", "+", "-", "!", "~", "print", "in", "=", "$", "?", ":", "<",
+        for other in ["", "x\n", "x #\n", "(", "[", "{", "}", ";", ",", "+", "-", "!", "~", "print", "in", "=", "$",
+                "?", ":", "<",
                       "x/", "x/=", "function", "return", "+=", "&&"]:
             self.assertEqual(words_of(other + "/ 2 /")[-1], ("pattern", " 2 "))
             self.assertEqual(words_of(other + "/= 2/")[-1], ("pattern", "= 2"))
             self.assertEqual(words_of(other + "//")[-1], ("pattern", ""))
         self.assertEqual(words_of("/a//2"), [("pattern", "a"), symbol("/"), ("number", "2")])
-        self.assertEqual(words_of("f(/a/)/b"), [("call", "f"), symbol("("), ("pattern", "a"), symbol(")"), symbol("/"), name("b")])
+        self.assertEqual(words_of("f(/a/)/b"), [("call", "f"), symbol("("), ("pattern", "a"), symbol(")"), symbol("/"),
+                name("b")])
 
     def test_patterns(self):
         for source, text in [("//", ""), ("/a/", "a"), ("/\\//", "/"), ("/\\./", "\\."), ("/\\\\/", "\\\\"),
@@ -170,16 +173,22 @@ class TestAreWords(Case):
         good = [("key", one) for one in KEYS] + [("built", one) for one in BUILTS]
         good += [symbol(one) for one in DOUBLES + SINGLES if one not in ("/", "/=")]
         good += [name("x"), name("_"), ("number", "1"), ("number", "9" * 60), ("number", "." + "9" * 60), ("text", ""),
-                 ("text", SIGNS), ("pattern", ""), ("pattern", "/"), ("pattern", "\\\\"), ("pattern", "\\\\/"), ("line", "\n")]
+                 ("text", SIGNS), ("pattern", ""), ("pattern", "/"), ("pattern", "\\\\"), ("pattern", "\\\\/"),
+                 ("line", "\n")]
         for word in good:
             self.assertIs(are_words([word]), True, word)
-        bad = [("key", "x"), ("key", ""), ("key", "length"), ("built", "x"), ("built", "in"), ("name", "in"), ("name", "sub"),
-               ("name", ""), ("name", "1x"), ("name", "x y"), ("name", "\u00e9"), ("name", "x\u00e9"), ("name", "x\u0661"), ("call", "f"), ("number", ""), ("number", "."),
+        bad = [("key", "x"), ("key", ""), ("key", "length"), ("built", "x"), ("built", "in"), ("name", "in"),
+                ("name", "sub"),
+               ("name", ""), ("name", "1x"), ("name", "x y"), ("name", "\u00e9"), ("name", "x\u00e9"),
+               ("name", "x\u0661"), ("call", "f"), ("number", ""), ("number", "."),
                ("number", "1.2.3"), ("number", "9" * 61), ("number", "-1"), ("number", "1e5"), ("number", "\u0661"),
-               ("number", "\u00b2"), ("text", "%"), ("text", "\r"), ("pattern", "\n"), ("pattern", "\\"), ("pattern", "\\/"), ("pattern", "\\\\\\"),
-               ("pattern", "%"), ("pattern", "\\\\\\/"), ("symbol", "&"), ("symbol", ""), ("symbol", "/"), ("symbol", "/="),
+               ("number", "\u00b2"), ("text", "%"), ("text", "\r"), ("pattern", "\n"), ("pattern", "\\"),
+               ("pattern", "\\/"), ("pattern", "\\\\\\"),
+               ("pattern", "%"), ("pattern", "\\\\\\/"), ("symbol", "&"), ("symbol", ""), ("symbol", "/"),
+               ("symbol", "/="),
                ("symbol", "=>"), ("line", ""), ("line", "\n\n"), ("line", "x"), ("word", "x"), ("", ""), ["name", "x"],
-               ("name", "x", "y"), ("name",), (), Row(("name", "x")), ("name", Text("x")), (Text("name"), "x"), ("name", None),
+               ("name", "x", "y"), ("name",), (), Row(("name", "x")), ("name", Text("x")), (Text("name"), "x"),
+               ("name", None),
                (None, "x"), (["name"], "x"), ("name", ["x"]), "name", None, 1]
         for word in bad:
             self.assertIs(are_words([word]), False, word)
@@ -187,7 +196,8 @@ class TestAreWords(Case):
                                     else [symbol("+"), word]), False, word)
 
     def test_kinds_of_values_are_exact(self):
-        for kind, text in [("key", "in"), ("built", "int"), ("name", "x"), ("call", "x"), ("number", "1"), ("text", "x"), ("pattern", "x"), ("symbol", "+"), ("line", "\n"), ("other", "x")]:
+        for kind, text in [("key", "in"), ("built", "int"), ("name", "x"), ("call", "x"), ("number", "1"),
+                ("text", "x"), ("pattern", "x"), ("symbol", "+"), ("line", "\n"), ("other", "x")]:
             for other in [None, 1, True, [], [text], (text,), {}, Text(text), text.encode()]:
                 self.assertIs(are_words([(kind, other)]), False, (kind, other))
                 self.assertIs(are_words([(other, text)]), False, (other, text))
@@ -306,18 +316,23 @@ class TestWriting(Case):
         for source, short in [
                 ("x y", "x y"), ("x 1", "x 1"), ("x .5", "x.5"), ("x _", "x _"), ("x (", "x ("), ("f(", "f("),
                 ("x \"\"", "x\"\""), ("in x", "in x"), ("in (", "in("), ("in .5", "in.5"), ("length (", "length("),
-                ("length x", "length x"), ("int 5", "int 5"), ("1 x", "1 x"), ("1 2", "1 2"), ("1 .", None), ("1 .5", "1 .5"),
-                ("1. 5", "1. 5"), ("1 in", "1 in"), ("1 (", "1("), ("1 \"\"", "1\"\""), ("\"\" x", "\"\"x"), ("+ +", "+ +"),
+                ("length x", "length x"), ("int 5", "int 5"), ("1 x", "1 x"), ("1 2", "1 2"), ("1 .", None),
+                ("1 .5", "1 .5"),
+                ("1. 5", "1. 5"), ("1 in", "1 in"), ("1 (", "1("), ("1 \"\"", "1\"\""), ("\"\" x", "\"\"x"),
+                ("+ +", "+ +"),
                 ("+ ++", "+ ++"), ("++ +", "+++"), ("+ =", "+ ="), ("+ == ", "+ =="), ("++ =", "++="), ("- -1", "- -1"),
                 ("< =", "< ="), ("! ~", "! ~"), ("! ==", "! =="), ("| |", "| |"), ("> >>", "> >>"), (">> >", ">>>"),
-                ("x / = 1", "x/ =1"), ("x / /=/", "x//=/"), ("x = /a/", "x=/a/"), (") x", ")x"), ("] (", "]("), ("x \n y", "x\ny"),
+                ("x / = 1", "x/ =1"), ("x / /=/", "x//=/"), ("x = /a/", "x=/a/"), (") x", ")x"), ("] (", "]("),
+                ("x \n y", "x\ny"),
                 ("= =", "= ="), ("& &", None), ("> = x", "> =x"), ("^ =", "^ ="), ("@ =", "@ ="), ("* =", "* =")]:
             if short is not None:
                 self.assertEqual(shortest_source(words_of(source)), short)
 
     def test_blanks_that_are_not_needed(self):
-        for words, short in [([("text", "+"), symbol("=")], "\"+\"="), ([("pattern", "="), symbol("=")], "/=/="), ([symbol("++"), symbol("=")], "++="), ([symbol("=="), symbol("=")], "==="),
-                             ([symbol("<="), symbol("=")], "<=="), ([("text", "x"), name("x")], "\"x\"x"), ([symbol(")"), ("number", "1")], ")1"), ([symbol("$"), name("x")], "$x")]:
+        for words, short in [([("text", "+"), symbol("=")], "\"+\"="), ([("pattern", "="), symbol("=")], "/=/="),
+                ([symbol("++"), symbol("=")], "++="), ([symbol("=="), symbol("=")], "==="),
+                             ([symbol("<="), symbol("=")], "<=="), ([("text", "x"), name("x")], "\"x\"x"),
+                             ([symbol(")"), ("number", "1")], ")1"), ([symbol("$"), name("x")], "$x")]:
             self.assertEqual(shortest_source(words), short)
             self.assertEqual(words_of(short), words)
 
@@ -335,8 +350,10 @@ class TestWriting(Case):
                     self.assertNotEqual(read(short[:end] + short[start:]), words)
 
     def test_pairs_of_words(self):
-        words = [("key", "in"), ("key", "getline"), ("built", "length"), name("x"), name("E5"), ("number", "1"), ("number", "2."),
-                 ("number", ".3"), ("text", "a"), ("pattern", "="), ("line", "\n")] + [symbol(one) for one in DOUBLES + SINGLES]
+        words = [("key", "in"), ("key", "getline"), ("built", "length"), name("x"), name("E5"), ("number", "1"),
+                ("number", "2."),
+                 ("number", ".3"), ("text", "a"), ("pattern", "="), ("line",
+                 "\n")] + [symbol(one) for one in DOUBLES + SINGLES]
         for first in words:
             for second in words:
                 for row in [[first, second], [symbol("("), first, second], [name("x"), first, second]]:
