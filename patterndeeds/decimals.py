@@ -2,6 +2,7 @@
 
 from math import gcd
 
+from patterndeeds.digits import power_of_ten
 from patterndeeds.signs import MOST_DIGITS
 
 
@@ -21,11 +22,6 @@ def places_of(bottom):
     if rest != 1:
         return None
     return max(twos, fives)
-
-
-def power_of_ten(places):
-    """10 to the power of a number of places."""
-    return int("1" + "".zfill(places))
 
 
 def is_decimal(top, bottom):

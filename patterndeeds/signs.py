@@ -25,20 +25,14 @@ SPECIALS = {
 }
 
 
-def is_sign(char):
-    """Whether a character is one of the 96 signs."""
-    code = ord(char)
-    return 32 <= code <= 126 and code != 37 or code == 9 or code == 10
-
-
 def is_text(value):
     """Whether any value is a text: a string of signs."""
-    if type(value) is not str:
+    if type(value) is not str or not value.isascii():
         return False
-    for char in value:
-        if not is_sign(char):
-            return False
-    return True
+    # 37 is the code of the percent sign, which is the one printable character that is no sign.
+    if len(value.translate({37: None})) < len(value):
+        return False
+    return value.replace("\t", "").replace("\n", "").isprintable()
 
 
 def begins_name(char):
@@ -58,11 +52,8 @@ def is_digit(char):
 
 def is_name(value):
     """Whether any value is a name: no key and no built-in word."""
-    if type(value) is not str or value == "" or not begins_name(value[0]):
+    if type(value) is not str or not value.isascii() or not value.isidentifier():
         return False
-    for char in value:
-        if not goes_on(char):
-            return False
     return value not in KEYS and value not in BUILTS
 
 
@@ -75,6 +66,8 @@ def is_pattern_text(value):
     """Whether any value is the text that a pattern word can have."""
     if not is_text(value) or "\n" in value:
         return False
+    if "\\" not in value:
+        return True
     at = 0
     while at < len(value):
         if value[at] == "\\":

@@ -23,7 +23,7 @@ METHODS = set("""append clear copy count endswith extend find get index insert i
 isupper items join keys ljust lower lstrip partition pop remove replace reverse rfind rjust rpartition rsplit rstrip
 setdefault split splitlines startswith strip update upper values zfill bit_length title capitalize swapcase casefold
 center expandtabs removeprefix removesuffix rindex isascii isdecimal isnumeric istitle isidentifier isprintable
-sort add discard __init__""".split())
+sort add discard translate __init__""".split())
 BARRED_ATTRIBUTES = set("""items keys values pop update append clear extend insert remove reverse setdefault sort args
 encode decode hex fromhex format format_map mro register elements open input law version_info with_traceback
 add_note""".split())
@@ -33,6 +33,9 @@ methodcaller os quit super vars sys""".split())
 BARRED_WORDS = ["typing", "typing_extensions", "enum", "Enum", "IntEnum", "StrEnum", "Flag", "IntFlag", "Generic",
                 "Protocol", "ABC", "ABCMeta", "namedtuple", "NamedTuple", "TypedDict", "TYPE_CHECKING",
                 "abstractmethod"]
+CHANGING = set("append extend pop insert remove clear update setdefault sort reverse add discard".split())
+# What may be done with a list or dict of the module level besides an index, a loop, in and a comparison.
+ASKING = set("len sorted list tuple dict set sum min max any all enumerate zip".split())
 STATEMENTS = (ast.Assign, ast.AugAssign, ast.If, ast.While, ast.For, ast.Return, ast.Break, ast.Continue, ast.Pass,
               ast.Raise, ast.Delete, ast.Expr, ast.Try, ast.FunctionDef, ast.Assert, ast.ClassDef, ast.ImportFrom)
 OWN_DOUBLES = {"__init__"}
@@ -41,10 +44,12 @@ OWN_DOUBLES = {"__init__"}
 class Checker:
     """The findings about one file."""
 
-    def __init__(self, path, package, methods):
+    def __init__(self, path, package, methods, tables, classes):
         self.path = path
         self.package = package
         self.methods = methods
+        self.all_tables = tables
+        self.all_classes = classes
         self.found = []
         with open(path, encoding="utf-8") as handle:
             self.text = handle.read()
@@ -58,6 +63,10 @@ class Checker:
         self.check_lines()
         self.check_strings()
         self.check_module()
+        imports = [node for node in self.tree.body if isinstance(node, ast.ImportFrom)]
+        self.tables = tables_in(self.tree) | {alias.name for node in imports for alias in node.names
+                                              if alias.name in self.all_tables.get(node.module.partition(".")[2], ())}
+        self.above = {child: node for node in ast.walk(self.tree) for child in ast.iter_child_nodes(node)}
         for node in ast.walk(self.tree):
             self.check_node(node)
         return self.found
@@ -135,6 +144,13 @@ class Checker:
         for node in ast.walk(value):
             if isinstance(node, (ast.Call, ast.ListComp, ast.Set, ast.Lambda)):
                 self.note("L3", node, "a value that is not plain")
+            if isinstance(node, ast.Name) and node.id not in self.names_above(value.lineno):
+                self.note("L3", node, "a name that is not defined above")
+
+    def names_above(self, line):
+        """The names of the functions and values that the file defines above a line."""
+        rows = [node.targets[0].id for node in self.tree.body if isinstance(node, ast.Assign) and node.lineno < line]
+        return rows + [node.name for node in self.tree.body if isinstance(node, ast.FunctionDef) and node.lineno < line]
 
     def check_import(self, node):
         if node.level or any(alias.asname or alias.name == "*" for alias in node.names):
@@ -164,8 +180,6 @@ class Checker:
             self.note("L7", node, "an expression of a kind that is not used here")
         if isinstance(node, ast.Constant) and isinstance(node.value, (float, complex)) or isinstance(node, ast.Div):
             self.note("L7", node, "a float")
-        if isinstance(node, ast.Mod):
-            self.note("L27", node, "the sign of remainders is not used here")
         if isinstance(node, ast.Compare):
             self.check_compare(node)
         if isinstance(node, ast.Attribute):
@@ -174,8 +188,41 @@ class Checker:
             self.check_call(node)
         if isinstance(node, ast.FunctionDef):
             self.check_function(node)
-        if isinstance(node, ast.ExceptHandler):
-            self.note("L19", node, "a handler; none is used here")
+        if isinstance(node, ast.ExceptHandler) and getattr(node.type, "id", "") not in self.all_classes:
+            self.note("L19", node, "a handler of an error that is not an own one")
+        if isinstance(node, ast.Name) and node.id in self.tables and isinstance(node.ctx, ast.Load):
+            self.check_table(node)
+        if isinstance(node, ast.For):
+            self.check_loop(node)
+        if isinstance(node, ast.BinOp) and isinstance(node.op, ast.Pow):
+            if not isinstance(node.right, ast.Constant) or not 0 <= node.right.value <= 64:
+                self.note("L27", node, "an exponent that is no literal")
+
+    def check_table(self, node):
+        """A list or dict of the module level is only read."""
+        above = self.above[node]
+        asked = isinstance(above, ast.Call) and getattr(above.func, "id", "") in ASKING
+        method = isinstance(above, ast.Attribute) and above.attr in ("get", "items", "keys", "values", "index", "count")
+        read = isinstance(above, ast.Subscript) and above.value is node and isinstance(above.ctx, ast.Load)
+        looped = isinstance(above, (ast.For, ast.comprehension)) and above.iter is node
+        if not (asked or method or read or looped or isinstance(above, ast.Compare)):
+            self.note("L15", node, "a table of the module level that is more than read: " + node.id)
+
+    def check_loop(self, loop):
+        """What a loop goes over is not changed in it."""
+        over = ast.dump(loop.iter)
+        if isinstance(loop.iter, ast.Call) and getattr(loop.iter.func, "id", "") in ("enumerate", "zip", "reversed"):
+            over = [ast.dump(one) for one in loop.iter.args]
+        else:
+            over = [over]
+        for node in [one for statement in loop.body for one in ast.walk(statement)]:
+            changed = None
+            if isinstance(node, ast.Call) and isinstance(node.func, ast.Attribute) and node.func.attr in CHANGING:
+                changed = node.func.value
+            if isinstance(node, ast.Subscript) and isinstance(node.ctx, (ast.Store, ast.Del)):
+                changed = node.value
+            if changed is not None and ast.dump(changed).replace("Store()", "Load()") in over:
+                self.note("L23", node, "what the loop goes over is changed in it")
 
     def check_compare(self, node):
         for operator, right in zip(node.ops, node.comparators):
@@ -196,8 +243,8 @@ class Checker:
             name = node.func.attr
             if name not in METHODS and name not in self.methods:
                 self.note("L25", node, "a method that may not be called: " + name)
-            if name == "join" and not isinstance(node.func.value, ast.Constant):
-                self.note("L25", node, "a join of no literal")
+            if name == "translate" and not (node.args and isinstance(node.args[0], ast.Dict) and node.args[0].keys):
+                self.note("L25", node, "a translate without a literal table")
         elif not isinstance(node.func, ast.Name):
             self.note("L15", node, "a call of something that has no name")
         for keyword in node.keywords:
@@ -208,9 +255,13 @@ class Checker:
         if node.decorator_list:
             self.note("L4", node, "a decorator")
         local = {one.arg for one in node.args.args}
+        if node.args.vararg:
+            local.add(node.args.vararg.arg)
         for one in ast.walk(node):
             if isinstance(one, ast.Name) and isinstance(one.ctx, (ast.Store, ast.Del)):
                 local.add(one.id)
+            if isinstance(one, ast.ExceptHandler) and one.name:
+                local.add(one.name)
             if isinstance(one, ast.FunctionDef) and one is not node:
                 self.note("L4", one, "a nested function; none is used here")
         for name in sorted(local):
@@ -222,8 +273,12 @@ class Checker:
             if isinstance(one, ast.Name) and isinstance(one.ctx, ast.Load):
                 if one.id not in local and one.id not in self.bound and one.id not in BUILTINS:
                     self.note("L8", one, "a name that nothing binds: " + one.id)
-        if node.args.defaults or node.args.kwonlyargs or node.args.vararg or node.args.kwarg:
+        if node.args.kwonlyargs or node.args.kwarg or node.args.posonlyargs:
             self.note("L4", node, "parameters of a kind that is not used here")
+        if any(not isinstance(one, ast.Constant) for one in node.args.defaults):
+            self.note("L4", node, "a default value that is not plain")
+        if node.name == "__init__" and any(isinstance(one, ast.Return) for one in ast.walk(node)):
+            self.note("L28", node, "an __init__ that returns")
 
 
 def names_bound(tree):
@@ -234,6 +289,12 @@ def names_bound(tree):
         elif isinstance(node, ast.Assign):
             names.update(target.id for target in node.targets if isinstance(target, ast.Name))
     return names
+
+
+def tables_in(tree):
+    """The names of the lists and dicts at module level."""
+    rows = [node for node in tree.body if isinstance(node, ast.Assign) and isinstance(node.value, (ast.Dict, ast.List))]
+    return {target.id for node in rows for target in node.targets if isinstance(target, ast.Name)}
 
 
 def rings(graph):
@@ -259,6 +320,8 @@ def check_package(folder):
     methods = set()
     graph = {}
     attributes = {}
+    tables = {}
+    classes = set()
     for name in sorted(os.listdir(folder)):
         if name == "__pycache__":
             continue
@@ -268,6 +331,8 @@ def check_package(folder):
         with open(os.path.join(folder, name), encoding="utf-8") as handle:
             tree = ast.parse(handle.read())
         package[name[:-3]] = names_bound(tree)
+        tables[name[:-3]] = tables_in(tree)
+        classes |= {node.name for node in tree.body if isinstance(node, ast.ClassDef)}
         graph[name[:-3]] = [node.module.partition(".")[2] for node in tree.body
                             if isinstance(node, ast.ImportFrom) and node.module not in LIBRARY]
         for node in ast.walk(tree):
@@ -281,7 +346,8 @@ def check_package(folder):
         found.append("L18 %s is a method and an attribute" % name)
     found.extend(rings(graph))
     for name in sorted(package):
-        found.extend(Checker(os.path.join(folder, name + ".py"), package, methods).run())
+        found.extend(Checker(os.path.join(folder, name + ".py"), package, methods, tables,
+                             classes).run())
     return found
 
 
