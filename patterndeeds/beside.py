@@ -1,9 +1,9 @@
 """Two programs beside each other in one run."""
 
-from patterndeeds.names import check_program, check_sound
+from patterndeeds.names import check_program, surveyed
 from patterndeeds.renaming import program_with_names
 from patterndeeds.signs import is_special
-from patterndeeds.standing import all_names, places_in, standings
+from patterndeeds.standing import all_expressions, all_names, all_statements, places_in
 
 LOUD = {"getline": True, "next": True, "exit": True}
 LOUD_WORDS = {"match": True, "close": True}
@@ -13,9 +13,9 @@ SETTING = {"set": 1, "change": 2, "step": 1}
 def is_quiet(program):
     """Whether nothing in a program touches what another one beside it would see."""
     check_program(program)
-    check_sound(program)
-    for standing in standings(program):
-        if is_loud(standing.tree):
+    surveyed(program)
+    for tree in all_statements(program) + all_expressions(program):
+        if is_loud(tree):
             return False
     return True
 
@@ -46,8 +46,8 @@ def beside(program, other_program):
     """Both programs in one, the pairs that rename the other one, and where its places come from."""
     check_program(program)
     check_program(other_program)
-    check_sound(program)
-    check_sound(other_program)
+    surveyed(program)
+    surveyed(other_program)
     pairs = parting_pairs(all_names(program), all_names(other_program))
     rules, functions = program_with_names(other_program, dict(pairs))
     both = (program[0] + rules, program[1] + functions)

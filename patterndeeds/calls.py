@@ -1,36 +1,24 @@
 """Calls: which functions call which, and which a run can reach."""
 
 from patterndeeds.errors import InvalidFunction, UnknownFunction
-from patterndeeds.names import check_program, check_sound
+from patterndeeds.names import check_program, surveyed
 from patterndeeds.signs import is_name
-from patterndeeds.standing import places_in, standings
+from patterndeeds.standing import places_in
 
 
 def calls(program):
     """The ascending list of the tuples (caller, called)."""
     check_program(program)
-    check_sound(program)
-    return found_calls(program)
+    return sorted(set(surveyed(program).calls))
 
 
-def found_calls(program):
-    """The ascending list of the calls of a program without a fault."""
-    rows = []
-    for standing in standings(program):
-        if standing.tree[0] == "call":
-            caller = ""
-            if standing.function is not None:
-                caller = standing.function[0]
-            rows.append((caller, standing.tree[1]))
-    return sorted(set(rows))
-
-
-def called_table(program):
-    """A dict of the ascending lists of what each caller calls."""
+def checked_table(program):
+    """A dict of the ascending lists of what each caller calls, if a program has no fault."""
+    check_program(program)
     table = {"": []}
     for function in program[1]:
         table[function[0]] = []
-    for caller, called in found_calls(program):
+    for caller, called in sorted(set(surveyed(program).calls)):
         table[caller].append(called)
     return table
 
@@ -48,13 +36,6 @@ def led_to(table, caller):
                 before[called] = one
                 queue.append(called)
     return before
-
-
-def checked_table(program):
-    """What each caller calls, if a program has no fault."""
-    check_program(program)
-    check_sound(program)
-    return called_table(program)
 
 
 def reached(program):

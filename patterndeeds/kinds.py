@@ -1,131 +1,99 @@
 """Kinds: which names are arrays and which are values."""
 
 from patterndeeds.errors import InvalidFunction, KindClash, UnknownFunction
-from patterndeeds.names import check_program, check_sound, found_faults
+from patterndeeds.names import check_program, found_faults, surveyed
 from patterndeeds.signs import SPECIALS, is_name
-from patterndeeds.standing import function_table, names_at, slot_of, standings
+from patterndeeds.survey import Survey
 
 
 class Slots:
-    """The uses and links of a program without a fault."""
+    """The slots of a program without a fault, by a survey of it.
 
-    def __init__(self, program):
-        self.uses = []
-        self.links = []
-        self.functions = function_table(program)
-        for name in SPECIALS:
-            self.uses.append((0, ("", name), "value"))
-        for standing in standings(program):
-            self.take_names(standing)
-            if standing.tree[0] == "call":
-                self.take_call(standing)
-        self.slots = {}
-        for function in program[1]:
-            for param in function[1]:
-                self.slots[(function[0], param)] = True
-        for _, slot, _ in self.uses + self.links:
-            self.slots[slot] = True
+    as_array and as_value have True by the slots with such a use, linked the list of the slots that a
+    link joins to each slot that is linked.
+    """
 
-    def take_names(self, standing):
-        """The uses of the names in a tree itself."""
-        for role, name in names_at(standing.tree):
-            how = how_used(role, standing)
-            if how != "":
-                self.uses.append((standing.place, slot_of(standing.function, name), how))
+    def __init__(self, survey):
+        self.survey = survey
+        self.as_array = {}
+        self.as_value = {("", name): True for name in SPECIALS}
+        self.linked = {}
+        for _, slot, how in survey.uses + survey.handed:
+            if how == "array":
+                self.as_array[slot] = True
+            elif how == "value":
+                self.as_value[slot] = True
+        for _, slot, other in survey.links:
+            self.linked.setdefault(slot, []).append(other)
+            self.linked.setdefault(other, []).append(slot)
 
-    def take_call(self, standing):
-        """The uses and links that hand arguments to a function."""
-        _, name, trees = standing.tree
-        for param, tree in zip(self.functions[name][1], trees):
-            slot = (name, param)
-            if tree[0] == "name":
-                self.links.append((standing.place, slot_of(standing.function, tree[1]), slot))
-            else:
-                self.uses.append((standing.place, slot, "value"))
+    def all_slots(self):
+        """The ascending list of all slots."""
+        found = [("", name) for name in SPECIALS] + list(self.linked)
+        found.extend([use[1] for use in self.survey.uses])
+        for name, params, _ in self.survey.functions.values():
+            found.extend([(name, param) for param in params])
+        return sorted(set(found))
 
-    def neighbours(self):
-        """A dict of the ascending lists of the slots that a link joins to each slot."""
-        table = {slot: [] for slot in self.slots}
-        for _, slot, other in self.links:
-            table[slot].append(other)
-            table[other].append(slot)
-        return {slot: sorted(set(table[slot])) for slot in table}
+    def clash_chain(self):
+        """A shortest row of linked slots from a use as an array to one as a value, or None."""
+        queue = sorted(self.as_array)
+        before = {slot: None for slot in queue}
+        done = 0
+        while done < len(queue):
+            slot = queue[done]
+            done += 1
+            if slot in self.as_value:
+                return way_back(before, slot)
+            for other in sorted(self.linked.get(slot, ())):
+                if other not in before:
+                    before[other] = slot
+                    queue.append(other)
+        return None
 
-    def used(self, how):
-        """A dict of True by the slots with such a use."""
-        return {use[1]: True for use in self.uses if use[2] == how}
+    def tied(self):
+        """The ascending list of the ascending lists of slots that are tied."""
+        seen = {}
+        rows = []
+        for slot in self.all_slots():
+            if slot not in self.linked:
+                rows.append([slot])
+            elif slot not in seen:
+                rows.append(self.tied_to(slot, seen))
+        return rows
 
+    def tied_to(self, slot, seen):
+        """The ascending list of the slots that are tied to one; notes them as seen."""
+        seen[slot] = True
+        row = []
+        waiting = [slot]
+        while waiting:
+            one = waiting.pop()
+            row.append(one)
+            for other in self.linked[one]:
+                if other not in seen:
+                    seen[other] = True
+                    waiting.append(other)
+        return sorted(row)
 
-def how_used(role, standing):
-    """How a name in a tree itself is used; empty if it is handed to a function or is called."""
-    if role == "array":
-        return "array"
-    if role == "called":
-        return ""
-    above = standing.above
-    if above is None:
-        return "value"
-    if above[0] == "call":
-        return ""
-    if above[0] == "built":
-        return how_taken(above, standing.at)
-    return "value"
+    def kind_table(self):
+        """A dict of the kinds of all slots, if there is no clash chain."""
+        table = {}
+        for row in self.tied():
+            kind = self.kind_of(row)
+            for slot in row:
+                table[slot] = kind
+        return table
 
-
-def how_taken(tree, at):
-    """How a built-in word uses a name that is its argument at an index."""
-    if tree[1] == "length":
+    def kind_of(self, row):
+        """The kind of slots that are tied."""
+        for slot in row:
+            if slot in self.as_array:
+                return "array"
+        for slot in row:
+            if slot in self.as_value:
+                return "value"
         return "open"
-    if tree[1] == "split" and at == 1:
-        return "array"
-    return "value"
-
-
-def checked_slots(program):
-    """The uses and links of any value, if it is a program without a fault."""
-    check_program(program)
-    check_sound(program)
-    return Slots(program)
-
-
-def uses(program):
-    """The ascending list of all uses."""
-    return sorted(set(checked_slots(program).uses))
-
-
-def links(program):
-    """The ascending list of all links."""
-    return sorted(set(checked_slots(program).links))
-
-
-def is_sound(program):
-    """Whether a program has neither a fault nor a clash chain."""
-    check_program(program)
-    return found_faults(program) == [] and chain_of(Slots(program)) is None
-
-
-def clash_chain(program):
-    """A clash chain with the fewest slots; None if there is none."""
-    return chain_of(checked_slots(program))
-
-
-def chain_of(slots):
-    """A shortest row of linked slots from a use as an array to one as a value, or None."""
-    ends = slots.used("value")
-    neighbours = slots.neighbours()
-    queue = sorted(slots.used("array"))
-    before = {slot: None for slot in queue}
-    done = 0
-    while done < len(queue):
-        slot = queue[done]
-        done += 1
-        if slot in ends:
-            return way_back(before, slot)
-        for other in neighbours[slot]:
-            if other not in before:
-                before[other] = slot
-                queue.append(other)
-    return None
 
 
 def way_back(before, slot):
@@ -137,19 +105,49 @@ def way_back(before, slot):
     return row[::-1]
 
 
+def checked_survey(program):
+    """The survey of any value, if it is a program without a fault."""
+    check_program(program)
+    return surveyed(program)
+
+
+def uses(program):
+    """The ascending list of all uses."""
+    survey = checked_survey(program)
+    special = [(0, ("", name), "value") for name in SPECIALS]
+    return sorted(set(special + survey.uses + survey.handed))
+
+
+def links(program):
+    """The ascending list of all links."""
+    return sorted(set(checked_survey(program).links))
+
+
+def is_sound(program):
+    """Whether a program has neither a fault nor a clash chain."""
+    check_program(program)
+    survey = Survey(program)
+    return found_faults(program, survey) == [] and Slots(survey).clash_chain() is None
+
+
+def clash_chain(program):
+    """A clash chain with the fewest slots; None if there is none."""
+    return Slots(checked_survey(program)).clash_chain()
+
+
 def is_clash_chain(program, value):
     """Whether any value is a clash chain of a program."""
-    slots = checked_slots(program)
+    survey = checked_survey(program)
     if type(value) is not list or value == []:
         return False
     for slot in value:
         if not is_slot(slot):
             return False
-    if value[0] not in slots.used("array") or value[-1] not in slots.used("value"):
+    slots = Slots(survey)
+    if value[0] not in slots.as_array or value[-1] not in slots.as_value:
         return False
-    neighbours = slots.neighbours()
     for slot, other in zip(value, value[1:]):
-        if other not in neighbours[slot]:
+        if other not in slots.linked.get(slot, ()):
             return False
     return True
 
@@ -161,75 +159,44 @@ def is_slot(value):
 
 def tied(program):
     """The ascending list of the ascending lists of slots that are tied."""
-    return tied_slots(checked_slots(program))
+    return Slots(checked_survey(program)).tied()
 
 
-def tied_slots(slots):
-    """The slots in ascending lists of those that are tied."""
-    neighbours = slots.neighbours()
-    seen = {}
-    rows = []
-    for slot in sorted(neighbours):
-        if slot not in seen:
-            rows.append(tied_to(slot, neighbours, seen))
-    return rows
-
-
-def tied_to(slot, neighbours, seen):
-    """The ascending list of the slots that are tied to one; notes them as seen."""
-    seen[slot] = True
-    row = []
-    waiting = [slot]
-    while waiting:
-        one = waiting.pop()
-        row.append(one)
-        for other in neighbours[one]:
-            if other not in seen:
-                seen[other] = True
-                waiting.append(other)
-    return sorted(row)
-
-
-def checked_kinds(program):
-    """A dict of the kinds of all slots; raises KindClash if there is a clash chain."""
-    slots = checked_slots(program)
-    chain = chain_of(slots)
+def sound_kinds(program):
+    """A dict of the kinds of all slots of what surely is a program; raises UnsoundProgram, KindClash."""
+    slots = Slots(surveyed(program))
+    chain = slots.clash_chain()
     if chain is not None:
         raise KindClash(chain)
-    table = {}
-    for row in tied_slots(slots):
-        kind = kind_of(row, slots.used("array"), slots.used("value"))
-        for slot in row:
-            table[slot] = kind
-    return table
-
-
-def kind_of(row, arrays_used, values_used):
-    """The kind of slots that are tied."""
-    for slot in row:
-        if slot in arrays_used:
-            return "array"
-    for slot in row:
-        if slot in values_used:
-            return "value"
-    return "open"
+    return slots.kind_table()
 
 
 def slot_kinds(program):
     """The ascending list of the tuples (slot, kind) of all slots."""
-    table = checked_kinds(program)
+    check_program(program)
+    table = sound_kinds(program)
     return [(slot, table[slot]) for slot in sorted(table)]
 
 
 def scalars(program):
     """The ascending tuple of the names outside of parameters that are no arrays."""
-    table = checked_kinds(program)
-    return tuple([slot[1] for slot in sorted(table) if slot[0] == "" and table[slot] != "array"])
+    check_program(program)
+    return scalars_of(sound_kinds(program))
 
 
 def arrays(program):
     """The ascending tuple of the names outside of parameters that are arrays."""
-    table = checked_kinds(program)
+    check_program(program)
+    return arrays_of(sound_kinds(program))
+
+
+def scalars_of(table):
+    """The ascending tuple of the names outside of parameters that are no arrays, by the kinds of slots."""
+    return tuple([slot[1] for slot in sorted(table) if slot[0] == "" and table[slot] != "array"])
+
+
+def arrays_of(table):
+    """The ascending tuple of the names outside of parameters that are arrays, by the kinds of slots."""
     return tuple([slot[1] for slot in sorted(table) if slot[0] == "" and table[slot] == "array"])
 
 
@@ -238,14 +205,19 @@ def parameter_kinds(program, function):
     check_program(program)
     if not is_name(function):
         raise InvalidFunction("the value is no name")
-    table = checked_kinds(program)
-    functions = function_table(program)
-    if function not in functions:
-        raise UnknownFunction("no function has this name")
+    table = sound_kinds(program)
+    for head in program[1]:
+        if head[0] == function:
+            return head_kinds(table, head)
+    raise UnknownFunction("no function has this name")
+
+
+def head_kinds(table, function):
+    """The tuple with "array" or "value" for each parameter of a function, by the kinds of slots."""
     kinds = []
-    for param in functions[function][1]:
-        kind = table[(function, param)]
-        if kind == "open":
-            kind = "value"
-        kinds.append(kind)
+    for param in function[1]:
+        if table[(function[0], param)] == "array":
+            kinds.append("array")
+        else:
+            kinds.append("value")
     return tuple(kinds)

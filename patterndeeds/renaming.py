@@ -2,10 +2,10 @@
 
 from patterndeeds.errors import InvalidFunction, InvalidNames, NotFitting, UnknownFunction
 from patterndeeds.kinds import Slots
-from patterndeeds.names import check_program, check_sound
-from patterndeeds.shapes import with_names
+from patterndeeds.names import check_program, surveyed
+from patterndeeds.shapes import names_in, with_names
 from patterndeeds.signs import is_name, is_special
-from patterndeeds.standing import all_names, function_table, printed_names
+from patterndeeds.standing import all_names
 from patterndeeds.trees import are_names
 
 
@@ -28,7 +28,7 @@ def renamed(program, pairs):
     check_program(program)
     if not are_pairs(pairs):
         raise InvalidNames("the value is no list of pairs")
-    check_sound(program)
+    surveyed(program)
     table = dict(pairs)
     if not are_fitting_names(program, table):
         raise NotFitting("the pairs do not fit the program")
@@ -46,15 +46,14 @@ def are_fitting_names(program, table):
 
 def program_with_names(program, table):
     """A program in which each name that a dict has is replaced everywhere."""
-    rules = tuple([with_names(rule, table) for rule in program[0]])
-    return rules, tuple([function_with_names(function, table) for function in program[1]])
+    return with_names(program[0], table), tuple([function_with_names(function, table) for function in program[1]])
 
 
 def function_with_names(function, table):
     """A function in which each name that a dict has is replaced everywhere."""
     name, params, body = function
     renewed = tuple([table.get(param, param) for param in params])
-    return table.get(name, name), renewed, tuple([with_names(statement, table) for statement in body])
+    return table.get(name, name), renewed, with_names(body, table)
 
 
 def renamed_head(program, function, names):
@@ -64,8 +63,7 @@ def renamed_head(program, function, names):
         raise InvalidFunction("the value is no name")
     if not are_names(names):
         raise InvalidNames("the value is no tuple of names")
-    check_sound(program)
-    functions = function_table(program)
+    functions = surveyed(program).functions
     if function not in functions:
         raise UnknownFunction("no function has this name")
     if not are_fitting_head(functions[function], names, functions):
@@ -85,7 +83,8 @@ def are_fitting_head(function, names, functions):
     _, params, body = function
     if len(names) != len(params):
         return False
-    standing = {name: True for _, name in printed_names(list(body))}
+    standing = []
+    names_in(body, standing)
     for name in names:
         if names.count(name) > 1 or is_special(name) or name in functions:
             return False
@@ -97,7 +96,7 @@ def are_fitting_head(function, names, functions):
 def plain(program):
     """The program with the plain names f1, p1, v1 and so on."""
     check_program(program)
-    check_sound(program)
+    surveyed(program)
     return plain_of(program, plain_table(program))
 
 
@@ -116,9 +115,12 @@ def plain_table(program):
 
 def printed_outside(program):
     """The names that stand as something else than a parameter, in printed sequence."""
-    names = [name for _, name in printed_names(list(program[0]))]
+    names = []
+    names_in(program[0], names)
     for _, params, body in program[1]:
-        names.extend([name for _, name in printed_names(list(body)) if name not in params])
+        inside = []
+        names_in(body, inside)
+        names.extend([name for name in inside if name not in params])
     return names
 
 
@@ -129,36 +131,35 @@ def head_table(params):
 
 def plain_of(program, table):
     """The plain program of a program, by the plain names of its functions and other names."""
-    rules = tuple([with_names(rule, table) for rule in program[0]])
     functions = []
     for function in program[1]:
         names = dict(table)
         names.update(head_table(function[1]))
         functions.append(function_with_names(function, names))
-    return rules, tuple(functions)
+    return with_names(program[0], table), tuple(functions)
 
 
 def likeness(program, other_program):
     """The pairs of slots and functions that have one plain name; None for unlike programs."""
     check_program(program)
     check_program(other_program)
-    check_sound(program)
-    check_sound(other_program)
+    survey = surveyed(program)
+    other_survey = surveyed(other_program)
     table = plain_table(program)
     other_table = plain_table(other_program)
     if plain_of(program, table) != plain_of(other_program, other_table):
         return None
     others = {}
-    for slot, plain_slot in plain_slots(other_program, other_table):
+    for slot, plain_slot in plain_slots(other_survey, other_table):
         others[plain_slot] = slot
-    return sorted([(slot, others[plain_slot]) for slot, plain_slot in plain_slots(program, table)])
+    return sorted([(slot, others[plain_slot]) for slot, plain_slot in plain_slots(survey, table)])
 
 
-def plain_slots(program, table):
+def plain_slots(survey, table):
     """The list of tuples (slot, slot in the plain program), also for the functions."""
-    heads = {function[0]: head_table(function[1]) for function in program[1]}
+    heads = {name: head_table(survey.functions[name][1]) for name in survey.functions}
     rows = [(("", name), ("", table[name])) for name in heads]
-    for slot in Slots(program).slots:
+    for slot in Slots(survey).all_slots():
         name = slot[1]
         if slot[0] != "":
             rows.append((slot, (table[slot[0]], heads[slot[0]][name])))

@@ -1,135 +1,121 @@
-"""The shapes of trees: which parts each kind of tree has, and what each part is.
+"""The shapes of trees: which parts each kind of tree has, by their indexes."""
 
-The roles of parts that are no trees: top, bottom, text, pattern, name (a variable), walked (the
-variable of a walk), array, called, built, operator, comparer, by, truth, source. Those of parts
-that are trees or have trees in them: e (an expression), t (a target), e? and t? (perhaps None), es
-(any number of expressions), es1 (at least one), es1? (perhaps None), body, body? (perhaps None),
-part (the first and the third part of a for), out (where a print writes to).
-"""
-
-EXPRESSIONS = {
-    "number": ("top", "bottom"),
-    "text": ("text",),
-    "pattern": ("pattern",),
-    "name": ("name",),
-    "element": ("array", "es1"),
-    "field": ("e",),
-    "set": ("t", "e"),
-    "change": ("operator", "t", "e"),
-    "step": ("t", "by", "truth"),
-    "choose": ("e", "e", "e"),
-    "or": ("e", "e"),
-    "and": ("e", "e"),
-    "in": ("es1", "array"),
-    "match": ("e", "e", "truth"),
-    "compare": ("comparer", "e", "e"),
-    "join": ("e", "e"),
-    "op": ("operator", "e", "e"),
-    "not": ("e",),
-    "minus": ("e",),
-    "plus": ("e",),
-    "call": ("called", "es"),
-    "built": ("built", "es"),
-    "getline": ("source", "e?", "t?"),
+LENGTHS = {
+    "number": 3, "text": 2, "pattern": 2, "name": 2, "element": 3, "field": 2, "set": 3, "change": 4, "step": 4,
+    "choose": 4, "or": 3, "and": 3, "in": 3, "match": 4, "compare": 4, "join": 3, "op": 4, "not": 2, "minus": 2,
+    "plus": 2, "call": 3, "built": 3, "getline": 4,
 }
-STATEMENTS = {
-    "expr": ("e",),
-    "print": ("es", "out"),
-    "printf": ("es1", "out"),
-    "if": ("e", "body", "body"),
-    "while": ("e", "body"),
-    "do": ("body", "e"),
-    "for": ("part", "e?", "part", "body"),
-    "walk": ("walked", "array", "body"),
-    "break": (),
-    "continue": (),
-    "next": (),
-    "exit": ("e?",),
-    "return": ("e?",),
-    "delete": ("array", "es1?"),
+# The parts of an expression that are expressions, but those that may be None.
+SINGLES = {
+    "number": (), "text": (), "pattern": (), "name": (), "element": (), "field": (1,), "set": (1, 2),
+    "change": (2, 3), "step": (1,), "choose": (1, 2, 3), "or": (1, 2), "and": (1, 2), "in": (), "match": (1, 2),
+    "compare": (2, 3), "join": (1, 2), "op": (2, 3), "not": (1,), "minus": (1,), "plus": (1,), "call": (),
+    "built": (), "getline": (),
 }
-RULES = {
-    "begin": ("body",),
-    "end": ("body",),
-    "always": ("body",),
-    "when": ("e", "body?"),
-    "range": ("e", "e", "body?"),
+# The part of an expression that is a row of expressions.
+ROWS = {"element": 2, "in": 1, "call": 2, "built": 2}
+STATEMENT_LENGTHS = {
+    "expr": 2, "print": 3, "printf": 3, "if": 4, "while": 3, "do": 3, "for": 5, "walk": 4, "break": 1, "continue": 1,
+    "next": 1, "exit": 2, "return": 2, "delete": 3,
 }
-TARGETS = {"name": True, "element": True, "field": True}
-NAME_ROLES = {"name": True, "walked": True, "array": True, "called": True}
-SINGLE_ROLES = {"e": True, "t": True, "e?": True, "t?": True}
-ROW_ROLES = {"es": True, "es1": True, "es1?": True, "body": True, "body?": True, "part": True}
+RULE_LENGTHS = {"begin": 2, "end": 2, "always": 2, "when": 3, "range": 4}
+# The parts of a statement or a rule that are an expression, perhaps None.
+TESTS = {
+    "expr": (1,), "if": (1,), "while": (1,), "do": (2,), "for": (2,), "exit": (1,), "return": (1,), "when": (1,),
+    "range": (1, 2),
+}
+# The parts of a statement or a rule that are bodies, perhaps None.
+BODIES = {
+    "if": (2, 3), "while": (2,), "do": (1,), "for": (1, 3, 4), "walk": (3,), "begin": (1,), "end": (1,), "always": (1,),
+    "when": (2,), "range": (3,),
+}
+TARGETS = ("name", "element", "field")
+# Where in a tree a name stands.
+NAMES = {"name": (1,), "element": (1,), "in": (2,), "call": (1,), "walk": (1, 2), "delete": (1,)}
 
 
-def roles_of(tree):
-    """The roles of the parts of an expression, a statement or a rule behind its tag."""
-    tag = tree[0]
-    if tag in EXPRESSIONS:
-        return EXPRESSIONS[tag]
-    if tag in STATEMENTS:
-        return STATEMENTS[tag]
-    return RULES[tag]
-
-
-def trees_in(role, value):
-    """The list of the trees in one part of a tree."""
-    if value is None:
+def bodies_of(tree):
+    """The list of the bodies in a statement or a rule itself."""
+    if tree[0] not in BODIES:
         return []
-    if role in SINGLE_ROLES:
-        return [value]
-    if role in ROW_ROLES:
-        return list(value)
-    if role == "out":
-        return [value[1]]
-    return []
+    return [tree[at] for at in BODIES[tree[0]] if tree[at] is not None]
+
+
+def expressions_in(tree):
+    """The list of the expressions that are the parts of a statement or a rule."""
+    tag = tree[0]
+    if tag == "print" or tag == "printf":
+        trees = list(tree[1])
+        if tree[2] is not None:
+            trees.append(tree[2][1])
+        return trees
+    if tag == "delete":
+        return list(tree[2] or ())
+    if tag not in TESTS:
+        return []
+    return [tree[at] for at in TESTS[tag] if tree[at] is not None]
 
 
 def parts_of(tree):
-    """The list of the expressions and statements that are the parts of a tree."""
-    parts = []
-    for role, value in zip(roles_of(tree), tree[1:]):
-        parts.extend(trees_in(role, value))
-    return parts
+    """The list of the expressions that are the parts of an expression."""
+    tag = tree[0]
+    if tag in ROWS:
+        return list(tree[ROWS[tag]])
+    if tag == "getline":
+        return [part for part in tree[2:] if part is not None]
+    return [tree[at] for at in SINGLES[tag]]
 
 
-def with_parts(tree, parts, names):
-    """A tree with other parts, a list as of parts_of, and with other names by a dict."""
-    row = [tree[0]]
-    done = 0
-    for role, value in zip(roles_of(tree), tree[1:]):
-        many = len(trees_in(role, value))
-        row.append(with_part(role, value, tuple(parts[done:done + many]), names))
-        done += many
-    return tuple(row)
-
-
-def with_part(role, value, trees, names):
-    """One part of a tree, with other trees in it or another name."""
-    if role in NAME_ROLES:
-        return names.get(value, value)
-    if value is None:
-        return None
-    if role in SINGLE_ROLES:
-        return trees[0]
-    if role in ROW_ROLES:
-        return trees
-    if role == "out":
-        return (value[0], trees[0])
-    return value
+def statements_of(bodies):
+    """The list of all statements in some bodies, in the sequence of their places."""
+    found = []
+    waiting = []
+    for body in bodies[::-1]:
+        waiting.extend(body[::-1])
+    while waiting:
+        statement = waiting.pop()
+        found.append(statement)
+        for body in bodies_of(statement)[::-1]:
+            waiting.extend(body[::-1])
+    return found
 
 
 def with_names(tree, names):
-    """A tree in which each name that a dict has is replaced everywhere at once."""
-    order = []
-    waiting = [tree]
-    while waiting:
-        node = waiting.pop()
-        order.append(node)
-        waiting.extend(parts_of(node))
-    made = []
-    for node in order[::-1]:
-        first = len(made) - len(parts_of(node))
-        parts = made[first:]
-        del made[first:]
-        made.append(with_parts(node, parts, names))
-    return made[0]
+    """A tree, or a tuple of trees, in which each name that a dict has is replaced everywhere."""
+    if tree == ():
+        return tree
+    tag = tree[0]
+    if type(tag) is str and tag in NAMES:
+        spots = NAMES[tag]
+        row = [renamed_part(part, names, at in spots) for at, part in enumerate(tree)]
+        return tuple(row)
+    return tuple([with_names(part, names) if type(part) is tuple else part for part in tree])
+
+
+def renamed_part(part, names, is_name):
+    """A part of a tree with other names; perhaps the part is a name itself."""
+    if is_name:
+        return names.get(part, part)
+    if type(part) is tuple:
+        return with_names(part, names)
+    return part
+
+
+def names_in(tree, found):
+    """Puts the names of a tree, or of a tuple of trees, behind others, as the printed text has them."""
+    if tree == ():
+        return
+    tag = tree[0]
+    spots = ()
+    if type(tag) is str:
+        spots = NAMES.get(tag, ())
+        if tag == "getline" and tree[1] == "<" and tree[3] is not None:
+            # The name of the input is printed last.
+            names_in(tree[3], found)
+            names_in(tree[2], found)
+            return
+    for at, part in enumerate(tree):
+        if at in spots:
+            found.append(part)
+        elif type(part) is tuple:
+            names_in(part, found)
