@@ -34,13 +34,19 @@ class Edges:
 
 
 class Automaton:
-    """The positions of a pattern, and which ones come behind which."""
+    """The positions of a pattern, and which ones come behind which.
+
+    sets has the signs that each position takes, follow the mask of those that come behind each one,
+    inside of a text. masks, behind and leading keep what was worked out once: the positions that take
+    a sign, those that come behind some, and those from which a way leads to the end.
+    """
 
     def __init__(self, pattern):
         self.sets = []
         self.follow = []
         self.masks = {}
         self.behind = {0: 0}
+        self.leading = None
         whole = self.built_part(pattern)
         self.null = whole.null
         self.first = whole.first
@@ -142,6 +148,12 @@ class Automaton:
 
     def leading_on(self):
         """The mask of the positions from which some signs lead to the end of a stretch that is taken."""
+        if self.leading is None:
+            self.leading = self.all_leading_on()
+        return self.leading
+
+    def all_leading_on(self):
+        """What leading_on tells, worked out for the first time."""
         mask = 0
         wider = self.ended
         while wider != mask:

@@ -116,8 +116,13 @@ def without_like_blocks(blocks, rows):
         column = tuple([row[at] for row in rows])
         table.setdefault(column, []).append(at)
     found = list(table.values())
-    merged = ["".join(sorted("".join([blocks[at] for at in columns]))) for columns in found]
-    return merged, [[row[columns[0]] for columns in found] for row in rows]
+    merged = [signs_together(blocks, some) for some in found]
+    return merged, [[row[some[0]] for some in found] for row in rows]
+
+
+def signs_together(blocks, some):
+    """The ascending string of the signs of some blocks, told by their indexes."""
+    return "".join(sorted("".join([blocks[at] for at in some])))
 
 
 def come_to(rows, state):

@@ -138,6 +138,6 @@ class ClassReader:
         """What completes a class at whose end the text ends, none of its entries half told."""
         if self.stage == NOTHING:
             return "a]"
-        if self.stage == DASH and not self.may_have(bit_of("-")):
+        if self.stage == DASH:
             return (quoted(self.single) or self.single) + "]"
         return "]"

@@ -166,7 +166,7 @@ def are_bodies(value):
             return False
         names[body[0]] = True
         if body[0] == "":
-            if len(names) > 1 or body[1] != ():
+            if body[1] != ():
                 return False
         elif len(names) == 1 or not is_name(body[0]):
             return False

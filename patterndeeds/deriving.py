@@ -141,16 +141,18 @@ class Chart:
                     return ("or", at, part.derivation(start, end))
         return DONE
 
+    def first_start(self, mask, end):
+        """The first index of a mask at which a stretch starts that is taken and ends here."""
+        return [at for at in bits_of(mask) if self.ends_from(at) >> end & 1][0]
+
     def row_parts(self, start, end):
         """The derivations of the parts of a row."""
         found = []
         masks = self.row_masks(start)
         for part, mask in zip(self.parts[::-1], masks[-2::-1]):
-            for at in bits_of(mask):
-                if part.ends_from(at) >> end & 1:
-                    found.append(part.derivation(at, end))
-                    end = at
-                    break
+            at = part.first_start(mask, end)
+            found.append(part.derivation(at, end))
+            end = at
         return found[::-1]
 
     def copies(self, start, end):
@@ -167,17 +169,11 @@ class Chart:
                 number += 1
         found = []
         for step in range(number - 1, -1, -1):
-            at = self.start_of_copy(steps[step], end, step >= self.pattern[2])
+            # If a copy that is not empty ends here, it starts ahead of an empty one.
+            at = self.parts[0].first_start(steps[step], end)
             found.append(self.parts[0].derivation(at, end))
             end = at
         return found[::-1] + behind
-
-    def start_of_copy(self, mask, end, longer):
-        """An index of a mask at which a copy starts that ends here, perhaps one that is not empty."""
-        for at in bits_of(mask):
-            if self.parts[0].ends_from(at) >> end & 1 and not (longer and at == end):
-                return at
-        return end
 
     def longer_copies(self, start, end):
         """The derivations of copies that are not empty and lead from a start to an end."""

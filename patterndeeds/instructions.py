@@ -15,8 +15,8 @@ from patterndeeds.runs import Frame
 from patterndeeds.searching import is_held
 from patterndeeds.texts import built, places_in
 from patterndeeds.values import (
-    MINUS_ONE, ONE, UNSET, ZERO, as_number, compared, compared_numbers, is_true, minus, operated, order_of,
-    put_together, text_of, truth_value, whole,
+    MINUS_ONE, ONE, UNSET, ZERO, as_number, compared, is_true, minus, operated, put_together, text_of, truth_value,
+    whole,
 )
 
 MOST_OPEN = 16
@@ -125,15 +125,6 @@ def do_op(run, row):
 def do_compare(run, row):
     order = compared(run.stack[-2], run.stack[-1])
     give_for_two(run, truth_value(order in HOLDING[row[1]]))
-
-
-def do_compare_as(run, row):
-    one, other = run.stack[-2:]
-    if row[1] == "number":
-        order = compared_numbers(one, other)
-    else:
-        order = order_of(text_of(one), text_of(other))
-    give_for_two(run, truth_value(order in HOLDING[row[2]]))
 
 
 def do_join(run, _):
@@ -349,8 +340,8 @@ ACTIONS = {
     "element": do_element, "is_in": do_is_in, "minus": do_minus, "plus": do_plus, "not": do_not,
     "close": do_close, "key": do_key, "size": do_size, "array": do_array, "set_name": do_set_name,
     "set_local": do_set_local, "set_field": do_set_field, "set_element": do_set_element, "drop": do_drop,
-    "copy": do_copy, "turn": do_turn, "op": do_op, "compare": do_compare, "compare_as": do_compare_as,
-    "join": do_join, "match": do_match, "built": do_built, "split": do_split, "substitute": do_substitute,
+    "copy": do_copy, "turn": do_turn, "op": do_op, "compare": do_compare, "join": do_join,
+    "match": do_match, "built": do_built, "split": do_split, "substitute": do_substitute,
     "print": do_print, "printf": do_printf, "read": do_read, "set_range": do_set_range, "clear": do_clear,
     "delete": do_delete, "jump": do_jump, "jump_if": do_jump_if, "walk": do_walk, "next_key": do_next_key,
     "call": do_call, "return": do_return, "exit": do_exit, "record": do_record, "next": do_next,

@@ -19,7 +19,7 @@ class Parter:
         elif self.kind == "pattern":
             pattern = separator[1]
             if paragraphs:
-                pattern = with_newline(pattern)
+                pattern = ("or", (pattern, ("sign", "\n")))
             self.automaton = Automaton(pattern)
 
     def fields(self, text):
@@ -52,13 +52,6 @@ class Parter:
         if self.kind == "blanks":
             return sign in BLANKS
         return sign == self.sign or self.paragraphs and sign == "\n"
-
-
-def with_newline(pattern):
-    """The or of a pattern and the newline."""
-    if pattern[0] == "or":
-        return ("or", pattern[1] + (("sign", "\n"),))
-    return ("or", (pattern, ("sign", "\n")))
 
 
 def left_by(text, gaps):
@@ -149,7 +142,7 @@ class Taker:
                 return "", "a"
             return None
         search = Search(self.automaton, text, 0, True)
-        if search.stretch is not None and search.waiting() > 0:
+        if search.waiting() > 0:
             return "", self.automaton.shortest_way(search.waiting())
         if search.stretch is None or not self.is_settled(search, text):
             return "", "a"

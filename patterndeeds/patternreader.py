@@ -2,7 +2,6 @@
 
 from patterndeeds.classreader import ClassReader
 from patterndeeds.patternsigns import meant_by
-from patterndeeds.signs import is_digit
 
 MOST_NESTED = 12
 MOST_TIMES = 30
@@ -159,18 +158,16 @@ class PatternReader:
         if digits == "" and sign == "}":
             self.at += 1
             return least, None
-        if digits == "":
-            return self.stop_at(sign, "}")
-        if sign == "}" and int(digits) >= least:
+        if digits != "" and sign == "}" and int(digits) >= least:
             self.at += 1
             return least, int(digits)
         fitting = [str(most) for most in range(least, MOST_TIMES + 1) if str(most).startswith(digits)]
         return self.stop_at(sign, fitting[0][len(digits):] + "}")
 
     def take_number(self, least):
-        """Takes the digits with which a number, from least on, begins; as many as there are."""
+        """Takes the signs with which a number, from least on, begins; as many as there are."""
         digits = ""
-        while is_digit_at(self.text, self.at):
+        while self.at < len(self.text):
             longer = digits + self.text[self.at]
             if not [most for most in range(least, MOST_TIMES + 1) if str(most).startswith(longer)]:
                 return digits
@@ -184,8 +181,3 @@ class PatternReader:
             self.ending = ending
         else:
             self.dead = True
-
-
-def is_digit_at(text, at):
-    """Whether a digit has this index."""
-    return at < len(text) and is_digit(text[at])

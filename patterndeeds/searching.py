@@ -72,8 +72,7 @@ class Search:
     """The first stretch that is not empty, from an index of a text on, and of those the longest one.
 
     If goes_on is True the text may go on: its end is no end. threads has tuples (start, mask) of the
-    stretches that were begun and may still be taken, ascending; the positions of a mask come next,
-    and none of them is in an earlier mask, which would be taken first.
+    stretches that were begun and may still be taken, ascending; a position of the mask comes next.
     """
 
     def __init__(self, automaton, text, begin, goes_on):
@@ -109,7 +108,7 @@ class Search:
         for start, following in self.threads:
             taken = following & mask
             if taken:
-                # What stands for an earlier start needs no second standing.
+                # A position that goes on from here leads a later start to nothing but the same end.
                 mask ^= taken
                 behind = self.automaton.behind.get(taken)
                 if behind is None:

@@ -47,7 +47,7 @@ def has_number_form(text):
     if body[:1] == "-" or body[:1] == "+":
         body = body[1:]
     body = body.replace(".", "", 1)
-    return body.isdigit() and body.isascii()
+    return body.isdigit()
 
 
 def truth_value(truth):

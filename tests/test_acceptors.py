@@ -145,7 +145,14 @@ class TestLeast(Case):
                 ([ALL], [(0,), (1,)], [True, False]), ([ALL], [(1,), (1,)], [True, True]),
                 ([others("a"), "a"], [(0, 0)], [True]), (blocks, [(2, 0, 1), (2, 2, 2), (2, 2, 2)],
                 [False, True, False]),
-                ([others("a"), "a"], [(1, 2), (0, 0), (0, 0)], [True, False, False])]:
+                ([others("a"), "a"], [(1, 2), (0, 0), (0, 0)], [True, False, False]),
+                # The blocks: in another order, without a sign, with a sign twice or none, not ascending; no state.
+                (["a", others("a")], [(1, 2), (2, 2), (2, 2)], [False, True, False]),
+                ([others("aq"), "a"], [(1, 2), (1, 1), (1, 1)], [False, False, True]),
+                ([ALL, "a"], [(1, 2), (1, 1), (1, 1)], [False, False, True]),
+                (["", ALL], [(0, 1), (0, 0)], [True, False]),
+                ([others("ab"), "ba"], [(1, 2), (1, 1), (1, 1)], [False, False, True]), ([ALL], [], []),
+                ([], [()], [True])]:
             self.assertIs(is_least(value), False, value)
         self.assertIs(is_least(([ALL], [(0,)], [False])), True)
         self.assertIs(is_least(([ALL], [(1,), (0,)], [True, False])), True)
@@ -195,7 +202,9 @@ class TestAlike(Case):
                 ("^$", "^", 0), ("a*", "a+", 0), ("ab", "ac", 2), ("a{3}", "a{4}", 3), ("^*a", "a", None),
                 ("(^|a)b", "^b|ab", None),
                 ("a^", "$a", None), ("(^a)*", "(^a)?", None), ("(^a|a)*", "a*", None), ("[^a]", "[^ab]", 1),
-                ("(a$)*", "(a$)?", None)]:
+                ("(a$)*", "(a$)?", None), ("^a$", "$a", 1), ("^a", "^a$", 1), ("a$", "^a$", 1), ("a", "^a|a$", 1),
+                ("^|$", "", 0), ("b", "^b|b$|^aaa$", 1), ("aa$|bbb", "^aa$|^bbb|bbb$", 2), ("^$", "$a", 0),
+                ("^", "^$", 0), ("$", "^$", 0)]:
             one, other = read_pattern(one), read_pattern(other)
             value = parting(one, other)
             self.assertIs(alike(one, other), many is None)

@@ -101,7 +101,9 @@ BAD = [("constant", ("seen", "a")), ("constant", ("number", 2, 2)), ("constant",
        ("next", 99), ("next", -1), ("next",), ("phase", "begin"), ("phase", "over"), ("phase", None), ("phase",),
        ("halt", 0), (), ("unknown",),
        ("",), (None,), (1,), ["drop"], "drop", None, Row(("drop",)), (Text("drop"),), ("key", Number(1)),
-       ("name", Text("x"))]
+       ("name", Text("x")), ("op", Text("+")),
+       ("phase", Text("main")), ("read", Text("main"), "record"), ("element", ("own", 1)), ("element", ("Local", 1)),
+       ("element", (None, 1)), ("element", (("global",), "a"))]
 
 
 class TestIsCode(Case):
@@ -120,6 +122,18 @@ class TestIsCode(Case):
         for row in BAD:
             self.assertIs(is_code(code_with([row])), False, row)
             self.assertIs(is_code(code_with([], [row])), False, row)
+
+    def test_named_rows(self):
+        """A row that is named is one of the same body."""
+        for row, named in [(("jump", 0), 1), (("jump_if", True, 0), 2), (("next_key", 0), 1), (("record", 0), 1),
+                           (("next", 0), 1)]:
+            for number in range(6):
+                made = row[:named] + (number,)
+                barred = row[0] == "next_key"
+                self.assertIs(is_code(code_with([made])), number < 3 and not (barred and number == 1), made)
+                if row[0] not in ("record", "next"):
+                    other = code_with([], [("not",), made])
+                    self.assertIs(is_code(other), number < 4 and not (barred and number == 2), made)
 
     def test_main(self):
         self.assertIs(is_code(code_with([END])), False)

@@ -21,7 +21,8 @@ FORMS = ["", "a", ".", "^", "$", "^$", "[ab]", "[^a]", "ab", "a|b", "a|ab", "b|a
          "(a|b)*b", "(ab|a)(b|)",
          "(|a){2}", "(^){2}a", "a^b", "a$b", "(a|^)(b|$)", "((a|b){2})*", "a.b", ".*a.", "(a|aa)(a|aab)", "(^a*){2}",
          "(^|b)*", "()", "()*a",
-         "(ab){0,}", "(a*b*){2}", "($)|a", "(a|$){2}", ".{2,3}$", "^.{2}", "(a?b?){2,}", "(b*a){1,2}$"]
+         "(ab){0,}", "(a*b*){2}", "($)|a", "(a|$){2}", ".{2,3}$", "^.{2}", "(a?b?){2,}", "(b*a){1,2}$",
+         "(a|ab)*", "(a|ab){1,}b", "(ab|a|bb)*b", "(a|ab|bab){2,}", "(aa|a)*", "(b|bb|a)*a"]
 
 
 def empty_copies(pattern, text, start, value):
@@ -172,6 +173,11 @@ class TestDerivations(Case):
         self.assertIs(is_derivation(read_pattern("^|a"), "ba", 1, 1, ("or", 0, ("one",))), False)
         self.assertIs(is_derivation(read_pattern("$|a"), "ba", 1, 1, ("or", 0, ("one",))), False)
         self.assertIs(is_derivation(read_pattern("a"), "a", 1, 1, ("one",)), False)
+        for form, text, start, holds in [("^", "a", 0, True), ("^", "a", 1, False), ("$", "a", 0, False),
+                ("$", "a", 1, True),
+                                         ("^", "", 0, True), ("$", "", 0, True), ("^", "ab", 1, False),
+                                         ("$", "ab", 1, False)]:
+            self.assertIs(is_derivation(read_pattern(form), text, start, start, ("one",)), holds)
 
     def test_one_part_exchanged(self):
         maker = Patterns(random_of("exchanged derivations"))

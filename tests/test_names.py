@@ -27,7 +27,7 @@ class TestFaults(Case):
                        "{ length; length(x); length(x y); index(a, b); match(a, b); substr(a, b); substr(a, b, c) }",
                        "{ split(a, b); split(a, b, c); sub(a, b); gsub(a, b); sub(a, b, c); gsub(a, b, c[1]); "
                        "sub(a, b, $1) }", "{ tolower(a); toupper(a); int(a); close(a); sprintf(a); "
-                                          "sprintf(a, b, c, d) }",
+                                          "sprintf(a, b, c, d); sprintf(1, 2, 3); substr(1, 2, 3); split(1, b, 3) }",
                        "function f(x) { x } function g(x) { x } { x = f(g(1)) }", "{ f() } function f(a, b, c) { }",
                        "{ NR = FNR = FS; for (NF in a) ; split(x, RS) }",
                        "function f(a) { if (a) return a; f(a - 1) }"]:

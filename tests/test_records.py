@@ -205,6 +205,14 @@ class TestKept(Case):
                 ("aa", "bab", pattern("bab|aab"), False), ("(ab)+", "c", pattern("c|abab"), False),
                 ("ab", "c", pattern("c|abab"), True),
                 ("a{3}", "b", pattern("b|a{4}"), True), ("a{3}", "b", pattern("b|a{3}$"), False),
+                ("ab", "cd", pattern("cd|bcda"), False), ("ab", "cd", pattern("cd|bcdb"), True),
+                ("ab", "cd", pattern("cd|bcdabc"), False), ("a", "bcd", pattern("bcd|abcda$"), False),
+                ("a", "bcd", pattern("bcd|abcdaa"), True), ("a", "bcd", pattern("bcd(a|ab.)?"), False),
+                ("a", "bcd", pattern("bcd(abce|abcc)?"), True), ("ab", "cd", pattern("cd|bc$"), True),
+                ("ab", "cd", pattern("cd|a$"), True), ("ab", "cd", pattern("cd|b$"), False),
+                ("abcd", "e", pattern("e|d"), False), ("abcd", "e", pattern("e|dc"), True),
+                ("abcd", "e", pattern("e|cd$"), False), ("abcd", "e", pattern("e|cdea"), False),
+                ("a|bcde", "f", pattern("f|de"), False),
                 ("a$", "b", pattern("b.*"), False)]:
             self.check(read_pattern(form), joint, separator, kept)
 
@@ -317,6 +325,31 @@ class TestTakings(Case):
                 ("ab", 0, True, pattern("()"), ("record", "ab", 2)),
                 ("xa", 0, False, pattern("a|xa$"), MORE), ("xa", 0, True, pattern("a|xa$"), ("record", "", 2))]:
             self.assertEqual(next_record(text, at, whole, separator), result, (text, at, whole, separator))
+            if not whole:
+                self.check_unsettled(text[at:], separator, result == MORE)
+
+    def check_unsettled(self, rest, separator, holds):
+        value = unsettled(rest, separator)
+        self.assertEqual(value is not None, holds, (rest, separator))
+        if holds:
+            one, other = [slowrecords.taking(rest + more, separator) for more in value]
+            self.assertNotEqual(one, other, (rest, separator, value))
+
+    def test_long_ways_on(self):
+        """Only one way on leads to another cut."""
+        for form, rest, holds in [(";|;abcd", "x;", True), (";|;abcd", "x;a", True), (";|;abcd", "x;abc", True),
+                (";|;abcd", "x;b", False), ("b|abcde", "ab", True), ("b|abcde", "abcd", True),
+                ("b|abcde", "abd", False),
+                (";+(a[b-d]e)?", "x;", True), (";+(a[b-d]e)?", "x;ac", True), (";(ab)*c?", "x;abab", True),
+                (";(ab)*c?", "x;abc", False), (";(ab)*c?", "x;aa", False), (";|;a$b", "x;a", False),
+                ("(bc)+", "xbc", True),
+                (";|;a$b", "x;", False), (";|;ca^b", "x;", False), (";|;(a$b|c)", "x;", True),
+                (";|;(ad$b|cd)", "x;a", False), (";|;(ad$b|cd)", "x;c", True), ("b(aa$a)*", "b", False),
+                ("b(a^)*", "b", False), ("b(ac|a$b)*", "ba", True),
+                (";|;^a", "x;", False),
+                ("x(yz)*w|y", "xyz", True), ("x(yz)*w|y", "xyzy", True), ("x(yz)*w|y", "xyy", False),
+                ("c|a(b|cd)e$", "ac", True), ("c|a(b|cd)e$", "acde", True), ("c|a(b|cd)e$", "acdef", False)]:
+            self.check_unsettled(rest, pattern(form), holds)
 
     def random_separator(self, maker):
         return maker.random.choice([sign(maker.random.choice("ab\n")),

@@ -301,6 +301,8 @@ class TestDeeds(WalkerCase):
             self.assertEqual((outcome.readers, outcome.scalars["NR"], outcome.record),
                     ((-1, 0, ()), number(0), ("", ())))
         self.assertEqual(Outcome("BEGIN { FS = \"((\"; getline x }", "a\n").end, ("over", 0))
+        asides = (("<", "g", "a\n", True),)
+        self.assertEqual(Outcome("BEGIN { FS = \"((\"; getline x < \"g\" }", asides=asides).end, ("over", 0))
         self.assertEqual(Outcome("BEGIN { RS = \"((\"; getline < \"h\" }", "a\n").end, ("over", 0))
         self.assertEqual(Outcome("BEGIN { FS = \"((\"; getline }").end, ("over", 0))
         self.fails("BEGIN { RS = \"((\" } { 1 }", "pattern", 0)
@@ -592,6 +594,8 @@ class TestExpressions(WalkerCase):
             self.assertEqual(outcome.end[:2], ("error", word))
             self.assertEqual(outcome.scalars["order"][1].count(";"), source.count("t(") - source.count("split("),
                     source)
+        for form in [")(", "a)(b", "*", "("]:
+            self.fails("{ split(\"x\", a, /%s/) }" % form, "pattern", 2, "r\n")
         outcome = Outcome("{ a[1]; split(\"x\", a, \"((\") }", "r\n")
         self.assertEqual(outcome.arrays["a"], {"1": ("unset",)})
         outcome = Outcome("{ x = 7; match(\"x\", \"((\") }", "r\n")
