@@ -28,6 +28,8 @@ def is_decimal(top, bottom):
     """Whether any two values are a fraction that a decimal of at most 60 digits writes."""
     if type(top) is not int or type(bottom) is not int or top < 0 or bottom < 1:
         return False
+    if bottom == 1:
+        return top < power_of_ten(MOST_DIGITS)
     if gcd(top, bottom) != 1:
         return False
     places = places_of(bottom)

@@ -199,7 +199,9 @@ def function_rows(writer, body):
 
 def main_rows(writer, rules):
     """The rows of the main: the BEGIN rules, the main loop with the other rules, the END rules."""
-    places = [places_in(rules[:at]) for at in range(len(rules))]
+    places = [0]
+    for rule in rules:
+        places.append(places[-1] + places_in((rule,)))
     for place, rule in zip(places, rules):
         if rule[0] == "begin":
             write_simple_rule(writer, place, rule)
