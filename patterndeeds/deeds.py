@@ -58,7 +58,7 @@ def write_out(run, kind, name, text):
         if kind != ">>":
             output.parts = []
     output.parts.append(text)
-    run.events.append(("write", kind, name, text))
+    run.happened.append(("write", kind, name, text))
 
 
 def take_main(run, into_record):
@@ -91,7 +91,7 @@ def take_main(run, into_record):
     run.scalars["NR"] = total
     if into_record:
         set_record(run, record)
-    run.events.append(("read", "main", run.mains[index][0], text))
+    run.happened.append(("read", "main", run.mains[index][0], text))
     return text
 
 
@@ -124,7 +124,7 @@ def take_aside(run, kind, name, into_record):
     run.readers[key] = taking[2]
     if into_record:
         set_record(run, record)
-    run.events.append(("read", kind, name, text))
+    run.happened.append(("read", kind, name, text))
     return text
 
 
@@ -140,5 +140,5 @@ def close_name(run, name):
         if output is not None and output.is_open:
             output.is_open = False
             closed = True
-    run.events.append(("close", name))
+    run.happened.append(("close", name))
     return closed

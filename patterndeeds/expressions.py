@@ -27,7 +27,7 @@ class Frame:
         self.kind = kind
         self.want = want
         self.result = result
-        self.held = held
+        self.kept = held
         self.printing = printing
 
 
@@ -137,7 +137,7 @@ class Expressions:
         elif symbol == "(":
             outer = self.frames[-1]
             self.admit(ATOM)
-            leading = outer.kind == "base" and outer.held
+            leading = outer.kind == "base" and outer.kept
             self.push_bracket("group", (outer.want <= INSIDE, leading, []))
         else:
             raise NoProgram(self.reader.at)
@@ -243,24 +243,24 @@ class Expressions:
         kind = frame.kind
         tree = self.tree
         if kind == "target":
-            self.end_getline(frame.held, tree)
+            self.end_getline(frame.kept, tree)
             return
         if kind == "infix":
-            tree = infix_tree(frame.held[0], frame.held[1], tree)
+            tree = infix_tree(frame.kept[0], frame.kept[1], tree)
         elif kind == "set":
-            tree = set_tree(frame.held[0], frame.held[1], tree)
+            tree = set_tree(frame.kept[0], frame.kept[1], tree)
         elif kind == "join":
-            tree = ("join", frame.held, tree)
+            tree = ("join", frame.kept, tree)
         elif kind == "unary":
-            tree = (frame.held, tree)
+            tree = (frame.kept, tree)
         elif kind == "step":
-            tree = ("step", tree, frame.held, True)
+            tree = ("step", tree, frame.kept, True)
         elif kind == "field":
             tree = ("field", tree)
         elif kind == "last":
-            tree = ("choose", frame.held[0], frame.held[1], tree)
+            tree = ("choose", frame.kept[0], frame.kept[1], tree)
         else:
-            tree = ("getline", "<", tree, frame.held)
+            tree = ("getline", "<", tree, frame.kept)
         self.settle(tree, frame.result)
 
     def close(self, top):
@@ -270,18 +270,18 @@ class Expressions:
         elif top.kind == "middle":
             self.reader.demand("symbol", ":")
             self.frames.pop()
-            self.push("last", CHOICE, CHOICE, (top.held[1], self.tree))
+            self.push("last", CHOICE, CHOICE, (top.kept[1], self.tree))
         elif self.reader.sees(","):
             self.next_item(top)
         elif top.kind == "keys":
             self.reader.demand("symbol", "]")
             self.frames.pop()
-            name, trees = top.held
+            name, trees = top.kept
             self.settle(("element", name, tuple(trees) + (self.tree,)), TARGET)
         elif top.kind == "arguments":
             self.reader.demand("symbol", ")")
             self.frames.pop()
-            tag, word, trees = top.held
+            tag, word, trees = top.kept
             self.settle((tag, word, tuple(trees) + (self.tree,)), ATOM)
         else:
             self.reader.demand("symbol", ")")
@@ -289,16 +289,16 @@ class Expressions:
 
     def next_item(self, top):
         """Goes on behind a comma within brackets."""
-        if top.kind == "group" and not top.held[0]:
+        if top.kind == "group" and not top.kept[0]:
             raise NoProgram(self.reader.at)
         self.reader.take()
         self.reader.skip_lines()
-        top.held[-1].append(self.tree)
+        top.kept[-1].append(self.tree)
         self.tree = None
 
     def close_group(self, group):
         """What stood in round brackets: one expression, the keys of an in, or all of a print."""
-        _, leading, trees = group.held
+        _, leading, trees = group.kept
         if trees == []:
             self.level = ATOM
             return

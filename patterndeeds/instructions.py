@@ -5,7 +5,7 @@ behind. What fails raises a RunError, and what waits raises Waiting, ahead of al
 """
 
 from patterndeeds.deeds import (
-    Waiting, close_name, key_of, set_field, set_scalar, take_aside, take_main, write_out,
+    close_name, key_of, set_field, set_scalar, take_aside, take_main, write_out,
 )
 from patterndeeds.errors import RunError
 from patterndeeds.formats import formatted
@@ -15,8 +15,8 @@ from patterndeeds.runs import Frame
 from patterndeeds.searching import is_held
 from patterndeeds.texts import built, places_in
 from patterndeeds.values import (
-    MINUS_ONE, ONE, UNSET, ZERO, as_number, compared, is_true, minus, operated, put_together, text_of, truth_value,
-    whole,
+    MINUS_ONE, ONE, UNSET, ZERO, as_number, compared, compared_numbers, is_true, minus, operated, order_of,
+    put_together, text_of, truth_value, whole,
 )
 
 MOST_OPEN = 16
@@ -125,6 +125,16 @@ def do_op(run, row):
 def do_compare(run, row):
     order = compared(run.stack[-2], run.stack[-1])
     give_for_two(run, truth_value(order in HOLDING[row[1]]))
+
+
+def do_compare_as(run, row):
+    _, how, operator = row
+    one, other = run.stack[-2:]
+    if how == "number":
+        order = compared_numbers(one, other)
+    else:
+        order = order_of(text_of(one), text_of(other))
+    give_for_two(run, truth_value(order in HOLDING[operator]))
 
 
 def do_join(run, _):
@@ -241,6 +251,10 @@ def do_delete(run, row):
     run.array_at(row[1]).pop(text_of(run.stack.pop()), None)
 
 
+def do_tick(run, row):
+    run.at_place = row[1]
+
+
 def do_jump(_, row):
     return row[1]
 
@@ -280,7 +294,7 @@ def do_call(run, row):
             cells.append({})
         else:
             cells.append(UNSET)
-    run.frames.append(Frame(name, cells, base, (run.body, run.row + 1, run.place)))
+    run.frames.append(Frame(name, cells, base, (run.body, run.row + 1, run.at_place)))
     run.enter(body)
     return 0
 
@@ -290,7 +304,7 @@ def do_return(run, _):
     frame = run.frames.pop()
     del run.stack[frame.base:]
     run.stack.append(value)
-    body, row, run.place = frame.back
+    body, row, run.at_place = frame.origin
     run.enter(body)
     return row
 
@@ -306,7 +320,7 @@ def do_exit(run, row):
 def leave_all(run):
     """Ends all calls and empties the stack; the row at which the END rules begin."""
     if run.frames:
-        run.place = run.frames[0].back[2]
+        run.at_place = run.frames[0].origin[2]
     run.frames = []
     run.stack = []
     run.enter(0)
@@ -316,7 +330,7 @@ def leave_all(run):
 def do_halt(run, _):
     row = leave_all(run)
     run.phase = "over"
-    run.end = ("over", run.exit_code)
+    run.ending = ("over", run.exit_code)
     return row
 
 
@@ -335,43 +349,16 @@ def do_phase(run, row):
     run.phase = row[1]
 
 
+# What does each instruction.
 ACTIONS = {
     "constant": do_constant, "name": do_name, "local": do_local, "range": do_range, "field": do_field,
     "element": do_element, "is_in": do_is_in, "minus": do_minus, "plus": do_plus, "not": do_not,
     "close": do_close, "key": do_key, "size": do_size, "array": do_array, "set_name": do_set_name,
     "set_local": do_set_local, "set_field": do_set_field, "set_element": do_set_element, "drop": do_drop,
-    "copy": do_copy, "turn": do_turn, "op": do_op, "compare": do_compare, "join": do_join,
-    "match": do_match, "built": do_built, "split": do_split, "substitute": do_substitute,
-    "print": do_print, "printf": do_printf, "read": do_read, "set_range": do_set_range, "clear": do_clear,
-    "delete": do_delete, "jump": do_jump, "jump_if": do_jump_if, "walk": do_walk, "next_key": do_next_key,
-    "call": do_call, "return": do_return, "exit": do_exit, "record": do_record, "next": do_next,
-    "phase": do_phase, "halt": do_halt,
+    "copy": do_copy, "turn": do_turn, "op": do_op, "compare": do_compare, "compare_as": do_compare_as,
+    "join": do_join, "match": do_match, "built": do_built, "split": do_split, "substitute": do_substitute,
+    "print": do_print, "printf": do_printf, "read": do_read, "tick": do_tick, "set_range": do_set_range,
+    "clear": do_clear, "delete": do_delete, "jump": do_jump, "jump_if": do_jump_if, "walk": do_walk,
+    "next_key": do_next_key, "call": do_call, "return": do_return, "exit": do_exit, "record": do_record,
+    "next": do_next, "phase": do_phase, "halt": do_halt,
 }
-
-
-def go_on(run, count):
-    """Goes on until a tick comes next and so many were done, or the run waits or ends; the ticks' places."""
-    places = []
-    while run.end is None:
-        row = run.rows[run.row]
-        word = row[0]
-        if word == "tick":
-            if len(places) == count:
-                run.end = ("tick", row[1])
-                return places
-            run.place = row[1]
-            places.append(row[1])
-            run.row += 1
-        else:
-            action = ACTIONS[word]
-            try:
-                going = action(run, row)
-            except RunError as error:
-                run.end = ("error", error.word, run.place)
-            except Waiting:
-                run.end = ("more", run.place)
-            else:
-                if going is None:
-                    going = run.row + 1
-                run.row = going
-    return places

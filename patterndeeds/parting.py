@@ -81,10 +81,10 @@ class Taker:
 
     def __init__(self, separator):
         self.kind = separator[0]
-        self.mark = "\n\n"
+        self.border = "\n\n"
         self.automaton = None
         if self.kind == "sign":
-            self.mark = separator[1]
+            self.border = separator[1]
         elif self.kind == "pattern":
             self.automaton = Automaton(separator[1])
 
@@ -114,10 +114,10 @@ class Taker:
     def gap(self, text, start, whole):
         """The stretch that ends the record which starts at an index; None if none is told for sure."""
         if self.kind != "pattern":
-            place = text.find(self.mark, start)
+            place = text.find(self.border, start)
             if place < 0:
                 return None
-            return place, place + len(self.mark)
+            return place, place + len(self.border)
         rest = text[start:]
         search = Search(self.automaton, rest, 0, not whole)
         if search.stretch is None or not whole and not self.is_settled(search, rest):

@@ -19,19 +19,23 @@ class Frame:
     """An open call.
 
     cells has what the parameters hold: a value, a dict for an array of its own, or a reference. base
-    is the number of things on the stack beneath its own; back is the body, the row and the place to
+    is the number of things on the stack beneath its own; origin is the body, the row and the place to
     which it returns.
     """
 
-    def __init__(self, name, cells, base, back):
+    def __init__(self, name, cells, base, origin):
         self.name = name
         self.cells = cells
         self.base = base
-        self.back = back
+        self.origin = origin
 
     def told(self):
         """The frame as it is told."""
         return (self.name, tuple([told_cell(cell) for cell in self.cells]))
+
+    def held(self):
+        """The frame as a held state has it."""
+        return self.told() + (self.base, self.origin)
 
 
 class Output:
@@ -51,8 +55,8 @@ class Output:
 class Run:
     """The state of a run: its room, its open calls, its stack, and where it stands.
 
-    end is None as long as the run may go on. What is worked out from texts of separators and
-    patterns is kept, as the same ones come again and again.
+    ending is None as long as the run may go on; happened has its events. What is worked out from texts
+    of separators and patterns is kept, as the same ones come again and again.
     """
 
     def __init__(self, code, world):
@@ -73,11 +77,11 @@ class Run:
         self.frames = []
         self.stack = []
         self.row = 0
-        self.place = 0
+        self.at_place = 0
         self.body = 0
         self.rows = self.bodies[0][2]
-        self.end = None
-        self.events = []
+        self.ending = None
+        self.happened = []
         self.automata = {}
         self.parters = {}
         self.takers = {}
@@ -133,9 +137,14 @@ class Run:
             return ("own", len(self.frames) - 1, where[1])
         return cell
 
+    def held(self):
+        """The held state."""
+        calls = tuple([frame.held() for frame in self.frames])
+        return (self.ending, self.at_place, (self.body, self.row), tuple(self.stack), calls, self.room())
+
     def told(self):
         """The told state."""
-        return (self.place, self.room(), tuple([frame.told() for frame in self.frames]))
+        return (self.at_place, self.room(), tuple([frame.told() for frame in self.frames]))
 
     def room(self):
         """The room."""
@@ -152,6 +161,46 @@ class Run:
             (self.index, self.signs_taken, tuple(asides)),
             tuple([self.outputs[key].told() for key in self.outputs]),
         )
+
+
+def resumed(code, world, held):
+    """The run of a code that is in a held state which fits it."""
+    run = Run(code, world)
+    ending, place, at, stack, calls, room = held
+    run.ending = ending
+    run.at_place = place
+    run.stack = list(stack)
+    for name, cells, base, origin in calls:
+        run.frames.append(Frame(name, [cell_of(told) for told in cells], base, origin))
+    run.enter(at[0])
+    run.row = at[1]
+    furnish(run, room)
+    return run
+
+
+def furnish(run, room):
+    """Lets a run have a room."""
+    phase, exit_code, scalars, arrays, ranges, record, readers, outputs = room
+    run.phase = phase
+    run.exit_code = exit_code
+    run.scalars = dict(scalars)
+    run.arrays = {name: dict(table) for name, table in arrays}
+    run.ranges = list(ranges)
+    run.record = record
+    run.index, run.signs_taken, asides = readers
+    run.readers = {(kind, name): at for kind, name, at in asides}
+    for kind, name, text, is_open in outputs:
+        output = Output(kind, name)
+        output.parts.append(text)
+        output.is_open = is_open
+        run.outputs[(kind, name)] = output
+
+
+def cell_of(told):
+    """What a parameter holds, by what is told of it."""
+    if told[0] == "table":
+        return dict(told[1])
+    return told
 
 
 def told_table(table):

@@ -32,7 +32,7 @@ class Survey:
         self.functions = {}
         for function in program[1]:
             self.functions.setdefault(function[0], function)
-        self.place = 0
+        self.at_place = 0
         self.caller = ""
         self.rule = ""
         self.slots = {}
@@ -46,8 +46,8 @@ class Survey:
     def take_rule(self, rule):
         """Looks at a rule."""
         self.rule = rule[0]
-        self.place += 1
-        self.take(expressions_in(rule), self.place)
+        self.at_place += 1
+        self.take(expressions_in(rule), self.at_place)
         if rule[-1] is not None:
             self.take_body(rule[-1], False)
 
@@ -61,16 +61,16 @@ class Survey:
     def take_body(self, body, looped):
         """Looks at the statements of a body, which perhaps stands in a loop."""
         for statement in body:
-            self.place += 1
+            self.at_place += 1
             tag = statement[0]
-            self.take(expressions_in(statement), self.place)
+            self.take(expressions_in(statement), self.at_place)
             if tag == "if":
                 self.take_body(statement[2], looped)
                 self.take_body(statement[3], looped)
             elif tag in LOOPS:
                 self.take_loop(statement)
             elif tag == "delete":
-                self.uses.append((self.place, self.slot(statement[1]), "array"))
+                self.uses.append((self.at_place, self.slot(statement[1]), "array"))
             elif tag in JUMPS:
                 self.take_jump(tag, looped)
 
@@ -84,20 +84,20 @@ class Survey:
             self.take_body(statement[1], True)
             self.take_body(statement[3], True)
         elif tag == "walk":
-            self.uses.append((self.place, self.slot(statement[1]), "value"))
-            self.uses.append((self.place, self.slot(statement[2]), "array"))
+            self.uses.append((self.at_place, self.slot(statement[1]), "value"))
+            self.uses.append((self.at_place, self.slot(statement[2]), "array"))
         self.take_body(statement[-1], True)
 
     def take_jump(self, tag, looped):
         """Looks at what may stand at certain places only."""
         if tag == "return":
             if self.rule != "function":
-                self.faults.append((self.place, "return", tag))
+                self.faults.append((self.at_place, "return", tag))
         elif tag == "next":
             if self.rule in NEXTLESS:
-                self.faults.append((self.place, "next", tag))
+                self.faults.append((self.at_place, "next", tag))
         elif not looped:
-            self.faults.append((self.place, "loop", tag))
+            self.faults.append((self.at_place, "loop", tag))
 
     def slot(self, name):
         """The slot of a variable."""

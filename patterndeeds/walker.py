@@ -1,10 +1,10 @@
 """The walker: runs of programs, tick by tick."""
 
 from patterndeeds.errors import InvalidCount
-from patterndeeds.instructions import go_on
 from patterndeeds.kinds import sound_kinds
 from patterndeeds.names import check_program
 from patterndeeds.runs import Run
+from patterndeeds.stepping import go_on
 from patterndeeds.worlds import check_world
 from patterndeeds.writingbodies import program_code
 
@@ -12,13 +12,13 @@ from patterndeeds.writingbodies import program_code
 def walk(program, world, count):
     """The outcome of a program in a world behind at most so many ticks."""
     run = begun_run(program, world, count)
-    places = go_on(run, count)
-    return (len(places), run.end, run.told(), run.events)
+    places, end = go_on(run, count)
+    return (len(places), end, run.told(), run.happened)
 
 
 def tick_places(program, world, count):
     """The list of the places of these ticks."""
-    return go_on(begun_run(program, world, count), count)
+    return go_on(begun_run(program, world, count), count)[0]
 
 
 def begun_run(program, world, count):

@@ -19,7 +19,7 @@ class Writer:
         self.arrays = arrays
         self.heads = heads
         self.rows = []
-        self.place = 0
+        self.at_place = 0
         self.loops = []
         self.goal = 0
 
@@ -35,8 +35,8 @@ class Writer:
 
     def put_tick(self):
         """Puts a tick at the next place."""
-        self.place += 1
-        self.put("tick", self.place)
+        self.at_place += 1
+        self.put("tick", self.at_place)
 
     def is_array(self, name):
         """Whether a name is an array here."""

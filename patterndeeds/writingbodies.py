@@ -97,21 +97,21 @@ def write_for(writer, statement):
     """A for. Its place is ahead of those of its first and its third part, these ahead of its body's."""
     _, first, test, third, body = statement
     loop = Loop(False)
-    writer.place += 1
-    place = writer.place
+    writer.at_place += 1
+    place = writer.at_place
     write_body(writer, first)
-    third_place = writer.place
-    writer.place += len(third)
+    third_place = writer.at_place
+    writer.at_place += len(third)
     top = writer.put("tick", place)
     if test is not None:
         write(writer, test)
         loop.leaving.append(writer.put("jump_if", False, 0))
     write_looped(writer, loop, body)
-    last_place = writer.place
+    last_place = writer.at_place
     writer.land(loop.continuing)
-    writer.place = third_place
+    writer.at_place = third_place
     write_body(writer, third)
-    writer.place = last_place
+    writer.at_place = last_place
     writer.put("jump", top)
     writer.land(loop.leaving)
 
@@ -218,7 +218,7 @@ def main_rows(writer, rules):
 
 def write_simple_rule(writer, place, rule):
     """A rule without a pattern."""
-    writer.place = place
+    writer.at_place = place
     writer.put_tick()
     write_body(writer, rule[1])
 
@@ -244,7 +244,7 @@ def write_main_loop(writer, places, rules):
 
 def write_when(writer, place, rule):
     """A rule with a pattern."""
-    writer.place = place
+    writer.at_place = place
     writer.put_tick()
     write(writer, rule[1])
     skip = writer.put("jump_if", False, 0)
@@ -254,7 +254,7 @@ def write_when(writer, place, rule):
 
 def write_range(writer, place, rule, number):
     """A range rule, which has the bit with this number."""
-    writer.place = place
+    writer.at_place = place
     writer.put_tick()
     writer.put("range", number)
     second = writer.put("jump_if", True, 0)
@@ -288,7 +288,7 @@ def program_code(program, table):
     place = places_in(rules)
     for name, params, body in functions:
         writer = Writer(params, heads[name], arrays, heads)
-        writer.place = place
+        writer.at_place = place
         bodies.append((name, heads[name], function_rows(writer, body)))
         place += places_in(body)
     ranges = len([rule for rule in rules if rule[0] == "range"])

@@ -38,7 +38,7 @@ CHANGING = set("append extend pop insert remove clear update setdefault sort rev
 ASKING = set("len sorted list tuple dict set sum min max any all enumerate zip".split())
 STATEMENTS = (ast.Assign, ast.AugAssign, ast.If, ast.While, ast.For, ast.Return, ast.Break, ast.Continue, ast.Pass,
               ast.Raise, ast.Delete, ast.Expr, ast.Try, ast.FunctionDef, ast.Assert, ast.ClassDef, ast.ImportFrom)
-OWN_DOUBLES = {"__init__"}
+OWN_DOUBLES = {"__init__", "__len__", "__eq__", "__iter__"}
 
 
 class Checker:
@@ -252,8 +252,10 @@ class Checker:
                 self.note("L22", node, "a keyword of a builtin")
 
     def check_function(self, node):
-        if node.decorator_list:
+        if any(getattr(one, "id", "") != "property" for one in node.decorator_list):
             self.note("L4", node, "a decorator")
+        if node.decorator_list and len(node.args.args) != 1:
+            self.note("L5", node, "a property with parameters")
         local = {one.arg for one in node.args.args}
         if node.args.vararg:
             local.add(node.args.vararg.arg)
@@ -272,13 +274,28 @@ class Checker:
         for one in ast.walk(node):
             if isinstance(one, ast.Name) and isinstance(one.ctx, ast.Load):
                 if one.id not in local and one.id not in self.bound and one.id not in BUILTINS:
-                    self.note("L8", one, "a name that nothing binds: " + one.id)
+                    if not self.may_stand(one, node):
+                        self.note("L8", one, "a name that nothing binds: " + one.id)
         if node.args.kwonlyargs or node.args.kwarg or node.args.posonlyargs:
             self.note("L4", node, "parameters of a kind that is not used here")
         if any(not isinstance(one, ast.Constant) for one in node.args.defaults):
             self.note("L4", node, "a default value that is not plain")
         if node.name == "__init__" and any(isinstance(one, ast.Return) for one in ast.walk(node)):
             self.note("L28", node, "an __init__ that returns")
+
+
+    def may_stand(self, name, function):
+        """Whether iter, super or property stands where it may."""
+        above = self.above[name]
+        if name.id == "property":
+            return name in function.decorator_list
+        if name.id == "iter":
+            only = ast.unparse(function.body[-1])
+            return function.name == "__iter__" and len(function.body) == 1 and only.startswith("return iter(self.")
+        if name.id != "super" or not isinstance(above, ast.Call) or above.args:
+            return False
+        read = self.above[above]
+        return isinstance(read, ast.Attribute) and isinstance(self.above[read], ast.Call) and read.attr[:2] != "__"
 
 
 def names_bound(tree):

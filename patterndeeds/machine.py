@@ -1,0 +1,85 @@
+"""The machine: runs of codes, instruction by instruction."""
+
+from patterndeeds.checker import check_code, checked_shapes, sound_shapes
+from patterndeeds.holding import check_held, is_fitting
+from patterndeeds.runs import Run, resumed
+from patterndeeds.stepping import do_row, go_on
+from patterndeeds.walker import check_count
+from patterndeeds.worlds import check_world
+
+NO_WORLD = ((), ())
+
+
+def begun(code):
+    """The first held state of a code."""
+    checked_shapes(code)
+    return Run(code, NO_WORLD).held()
+
+
+def step(code, world, held):
+    """The held state behind one instruction, and the event, if there is one."""
+    run = checked_run(code, world, held)
+    if run.ending is not None or not do_row(run, run.rows[run.row]):
+        return held, None
+    event = None
+    if run.happened:
+        event = run.happened[0]
+    return run.held(), event
+
+
+def end_of(code, world, held):
+    """The end of a held state; ("step",) if it may go on with an instruction that is no tick."""
+    run = checked_run(code, world, held)
+    if run.ending is not None:
+        return run.ending
+    row = run.rows[run.row]
+    if row[0] == "tick":
+        return row
+    place = run.at_place
+    if not do_row(run, row):
+        return ("more", place)
+    return ("step",)
+
+
+def go(code, world, held, count):
+    """The number of ticks, the end, the held state and the events behind at most so many ticks more."""
+    shapes = checked_shapes(code)
+    check_world(world)
+    check_held(code, shapes, world, held)
+    check_count(count)
+    run = resumed(code, world, held)
+    places, end = go_on(run, count)
+    return (len(places), end, run.held(), run.happened)
+
+
+def told(code, held):
+    """The told state of a held state."""
+    check_held(code, checked_shapes(code), None, held)
+    _, place, _, _, calls, room = held
+    return (place, room, tuple([call[:2] for call in calls]))
+
+
+def outcome(code, world, count):
+    """The outcome of a code in a world behind at most so many ticks."""
+    checked_shapes(code)
+    check_world(world)
+    check_count(count)
+    run = Run(code, world)
+    places, end = go_on(run, count)
+    return (len(places), end, run.told(), run.happened)
+
+
+def fits(code, world, value):
+    """Whether any value is a held state that fits a code and a world."""
+    check_code(code)
+    shapes = sound_shapes(code)
+    check_world(world)
+    return is_fitting(code, shapes, world, value)
+
+
+def checked_run(code, world, held):
+    """The run of a code in a world that is in a held state; raises the errors of the arguments."""
+    shapes = checked_shapes(code)
+    check_world(world)
+    check_held(code, shapes, world, held)
+    return resumed(code, world, held)
