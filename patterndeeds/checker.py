@@ -60,7 +60,7 @@ def step_bound(code):
     check_code(code)
     greatest = 0
     for following in sound_followings(code):
-        greatest = max([greatest] + [length for length in following.lengths if length is not None])
+        greatest = max([greatest] + [length for length in following.lengths() if length is not None])
     return greatest
 
 

@@ -13,6 +13,8 @@ TAKES = {
 }
 # Where an instruction tells how many things it takes.
 COUNTED = {"key": 1, "turn": 1, "built": 2, "split": 2, "print": 1, "printf": 1, "call": 2}
+# These take a name, too, unless they write to the output without a name.
+WRITING = ("print", "printf")
 # How many values an instruction gives, if not one.
 GIVES = {
     "array": 0, "drop": 0, "copy": 2, "substitute": 2, "print": 0, "printf": 0, "tick": 0, "set_range": 0, "clear": 0,
@@ -30,15 +32,16 @@ PHASE_END = ("phase", "end")
 def many_taken(row):
     """How many things an instruction takes."""
     word = row[0]
-    if word == "print" or word == "printf":
-        return row[1] + (0 if row[2] == "" else 1)
-    if word in COUNTED:
-        return row[COUNTED[word]]
+    if word in TAKES:
+        return TAKES[word]
     if word == "read":
         return 0 if row[1] == "main" else 1
     if word == "exit":
         return 1 if row[1] else 0
-    return TAKES[word]
+    many = row[COUNTED[word]]
+    if word in WRITING and row[2] != "":
+        return many + 1
+    return many
 
 
 def many_given(row):
@@ -54,6 +57,8 @@ def many_given(row):
 def has_taken(stack, row, heads):
     """Whether a stack has on top what an instruction takes; heads has the params of the functions."""
     many = many_taken(row)
+    if many == 0:
+        return True
     if many > len(stack):
         return False
     word = row[0]
@@ -61,10 +66,11 @@ def has_taken(stack, row, heads):
         return stack[-1] == "walk"
     if word == "drop":
         return stack[-1] != "array"
-    top = stack[len(stack) - many:]
     if word == "call":
-        return top == heads[row[1]][:many]
-    return top.count("value") == many
+        return stack[-many:] == heads[row[1]][:many]
+    if many == 1:
+        return stack[-1] == "value"
+    return stack[-many:].count("value") == many
 
 
 def stack_behind(stack, row, goes):
@@ -76,10 +82,12 @@ def stack_behind(stack, row, goes):
         if goes:
             return stack[:-1]
         return stack + ("value",)
-    left = stack[:len(stack) - many_taken(row)]
+    many = many_taken(row)
+    if many > 0:
+        stack = stack[:-many]
     if word == "array" or word == "walk":
-        return left + (word,)
-    return left + ("value",) * many_given(row)
+        return stack + (word,)
+    return stack + ("value",) * many_given(row)
 
 
 def named_row(row):

@@ -7,8 +7,8 @@ class Following:
     """The ways of a body, followed until each row was met once or a second time with another stack.
 
     shapes has the stack of each row that is reached, before the row ahead of it on the first way to it.
-    fault is None, or a tuple of its kind and its ways. lengths has for each row that is reached the
-    greatest number of rows in a list that begins with it and has no tick behind it.
+    fault is None, or a tuple of its kind and its ways. turning tells whether a row that is reached leads
+    to itself or back to a row that is no tick.
     """
 
     def __init__(self, body, heads):
@@ -16,11 +16,11 @@ class Following:
         self.heads = heads
         self.shapes = [None] * len(self.rows)
         self.before = [None] * len(self.rows)
-        self.lengths = [None] * len(self.rows)
         self.fault = None
+        self.turning = False
         self.follow_ways(entries_of(body))
-        if self.fault is None:
-            self.measure()
+        if self.turning and self.fault is None:
+            self.lengths()
 
     def follow_ways(self, entries):
         """Follows the ways from the entries on."""
@@ -31,12 +31,12 @@ class Following:
             behind = []
             for at in waiting:
                 behind.extend(self.rows_behind(at))
+                if self.fault is not None:
+                    return
             waiting = behind
 
     def rows_behind(self, at):
         """The rows that are met for the first time behind a row."""
-        if self.fault is not None:
-            return []
         row = self.rows[at]
         stack = self.shapes[at]
         if not has_taken(stack, row, self.heads):
@@ -55,6 +55,8 @@ class Following:
             elif self.shapes[following] != behind:
                 self.fault = ("unlike", [self.way_to(following), self.way_to(at) + [following]])
                 return []
+            if following <= at and self.rows[following][0] != "tick":
+                self.turning = True
         return found
 
     def way_to(self, at):
@@ -69,13 +71,18 @@ class Following:
         """The followers of a row that are no ticks."""
         return [one for one, _ in followers(self.rows, at) if self.rows[one][0] != "tick"]
 
-    def measure(self):
-        """Works out the lengths, or finds a ring without a tick."""
-        for start, shape in enumerate(self.shapes):
-            if shape is not None and self.lengths[start] is None and self.fault is None:
-                self.measure_from(start)
+    def lengths(self):
+        """For each row that is reached the greatest number of rows in a list that begins with it.
 
-    def measure_from(self, start):
+        Each next one is a follower and no tick. A ring of such rows is a fault.
+        """
+        found = [None] * len(self.rows)
+        for start, shape in enumerate(self.shapes):
+            if shape is not None and found[start] is None and self.fault is None:
+                self.measure_from(start, found)
+        return found
+
+    def measure_from(self, start, found):
         """Works out the lengths of a row and of those behind it, those furthest behind first."""
         path = [start]
         waiting = [self.without_tick(start)]
@@ -88,12 +95,12 @@ class Following:
                     ring = path[path.index(following):] + [following]
                     self.fault = ("tickless", [self.way_to(following) + ring[1:]])
                     return
-                if self.lengths[following] is None:
+                if found[following] is None:
                     path.append(following)
                     waiting.append(self.without_tick(following))
                     standing[following] = True
             else:
-                self.lengths[at] = 1 + max([self.lengths[one] for one in self.without_tick(at)] + [0])
+                found[at] = 1 + max([found[one] for one in self.without_tick(at)] + [0])
                 del standing[at]
                 path.pop()
                 waiting.pop()

@@ -18,10 +18,10 @@ def taken_and_given(row, heads):
     if word in EFFECTS:
         return ["value"] * EFFECTS[word][0], ["value"] * EFFECTS[word][1]
     if word in ("key", "turn", "built", "split"):
-        many = row[2] if word in ("built", "split") else row[1]
+        many = min(row[2] if word in ("built", "split") else row[1], 10 ** 4)
         return ["value"] * many, ["value"] * (many if word == "turn" else 1)
     if word in ("print", "printf"):
-        return ["value"] * (row[1] + (row[2] != "")), []
+        return ["value"] * (min(row[1], 10 ** 4) + (row[2] != "")), []
     if word == "read":
         return ["value"] * (row[1] != "main"), ["value"] * (1 + (row[2] == "value"))
     if word == "array":
