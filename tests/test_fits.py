@@ -61,11 +61,11 @@ class TestFits(Case):
         self.assertEqual(states[-1][0], ("error", "divide", states[-1][1]))
         self.assertEqual(max(len(held[4]) for held in states), 3)
         random = random_of("parts")
-        chosen = [held for held in states if len(held[4]) == 3][:1] + random.sample(states, MANY) + states[-1:]
+        chosen = [held for held in states if len(held[4]) == 3][:1] + random.sample(states, min(MANY, len(states))) + states[-1:]
         seen = set()
         for held in chosen:
             paths = leaf_paths(held)
-            for path in [path for path in paths if len(path) < 3] + random.sample(paths, 120):
+            for path in [path for path in paths if len(path) < 3] + random.sample(paths, min(120, len(paths))):
                 for worth in random.sample(PARTS, 25 if len(path) < 4 else 6):
                     value = exchanged(held, path, worth)
                     wanted = slowholding.fits(code, WORLD, value)

@@ -111,7 +111,7 @@ class TestHeldTexts(Case):
         right = set()
         for held in random.sample(states, 2) + states[-1:]:
             text = held_text(code, held)
-            for at in random.sample(range(len(text)), 40 * MANY) + [0, 1, len(text) - 1, len(text)]:
+            for at in random.sample(range(len(text)), min(40 * MANY, len(text))) + [0, 1, len(text) - 1, len(text)]:
                 sign = random.choice('()",\\ntTFN0019-a \n\t')
                 for made in [text[:at] + sign + text[at:], text[:at] + text[at + 1:], text[:at] + sign + text[at + 1:],
                              text[:at]]:

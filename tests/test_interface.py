@@ -7,7 +7,11 @@ import unittest
 
 from patterndeeds import errors, kinds
 from patterndeeds.acceptors import whole_acceptor
+from patterndeeds.bench import Bench, TiedBench
 from patterndeeds.codes import code_of
+from patterndeeds.console import Console
+from patterndeeds.heldtexts import held_text
+from patterndeeds.machine import begun
 from patterndeeds.parser import program_of
 from patterndeeds.patterns import read_pattern
 from patterndeeds.walker import tick_places, walk
@@ -17,6 +21,10 @@ P, Q = read_pattern("a(b|.)*"), read_pattern("^a|b+")
 ONE, TWO = ("number", 7, 2), ("seen", "12x")
 WORLD = ((("f", "a b\n", False),), (("<", "g", "x", True),))
 PROGRAM = program_of("$1 { n[$1]++; f(n) } function f(a) { a[1] = 2 }")
+CODE = code_of(PROGRAM)
+BAD_CODE = CODE[:3] + ((("", (), (("drop",), ("phase", "end"), ("halt",))),),)
+HELD = begun(CODE)
+ENTRY = ("entry", 0, 5, 0)
 # For each function of each module its parameters, each with an argument.
 INTERFACE = {
     "values": {
@@ -75,6 +83,30 @@ INTERFACE = {
         "walk": {"program": PROGRAM, "world": WORLD, "count": 9},
         "tick_places": {"program": PROGRAM, "world": WORLD, "count": 9}},
     "codes": {"is_code": {"value": None}, "code_of": {"program": PROGRAM}},
+    "checker": {
+        "code_fault": {"code": BAD_CODE}, "is_code_fault": {"code": BAD_CODE, "value": ("lacks", 0, [[0]])},
+        "shapes": {"code": CODE}, "step_bound": {"code": CODE}},
+    "machine": {
+        "begun": {"code": CODE}, "step": {"code": CODE, "world": WORLD, "held": HELD},
+        "end_of": {"code": CODE, "world": WORLD, "held": HELD},
+        "go": {"code": CODE, "world": WORLD, "held": HELD, "count": 9}, "told": {"code": CODE, "held": HELD},
+        "outcome": {"code": CODE, "world": WORLD, "count": 9}, "fits": {"code": CODE, "world": WORLD, "value": HELD}},
+    "heldtexts": {
+        "held_text": {"code": CODE, "held": HELD}, "held_of": {"code": CODE, "text": held_text(CODE, HELD)}},
+    "folding": {"folded": {"code": CODE}, "trimmed": {"code": CODE}, "swept": {"code": CODE}},
+    "likeness": {
+        "go_alike": {"code": CODE, "other_code": CODE}, "code_parting": {"code": CODE, "other_code": CODE},
+        "is_code_parting": {"code": CODE, "other_code": CODE, "value": (0, False, ())}, "least_code": {"code": CODE}},
+    "shortening": {"shortened": {"code": CODE}},
+    "knowing": {
+        "spots": {"code": CODE}, "spot_kinds": {"code": CODE, "spot": ENTRY},
+        "kind_reason": {"code": CODE, "spot": ENTRY, "kind": "number"},
+        "is_kind_reason": {"code": CODE, "spot": ENTRY, "kind": "number", "value": [ENTRY]}, "sharpened": {"code": CODE}},
+    "hanging": {
+        "hangs": {"code": CODE, "spot": ENTRY}, "course_hangs": {"code": CODE},
+        "root_chain": {"code": CODE, "root": ("field", 1), "spot": ("array", "n")},
+        "is_root_chain": {"code": CODE, "root": ("field", 1), "spot": ENTRY, "value": [ENTRY]}},
+    "bench": {"replay": {"program": PROGRAM, "world": WORLD, "deeds": [("go", 3), ("mark", 1)]}},
 }
 DEFAULTS = {("matching", "found"): {"start": 0}, ("records", "parted"): {"paragraphs": False},
             ("records", "gaps"): {"paragraphs": False}}
@@ -85,6 +117,13 @@ def functions():
     for module, table in INTERFACE.items():
         for name, arguments in table.items():
             yield module, name, getattr(importlib.import_module("patterndeeds." + module), name), arguments
+
+
+def told(value):
+    """What tells a value from others, its kinds of parts included."""
+    if isinstance(value, Bench):
+        value = (type(value), value.program, value.world, value.deeds, value.told())
+    return repr(value)
 
 
 def lists_in(value):
@@ -110,8 +149,8 @@ class TestInterface(Case):
     def test_by_position_and_by_name(self):
         for _, _, function, arguments in functions():
             result = function(*arguments.values())
-            self.assertEqual(repr(function(**arguments)), repr(result))
-            self.assertEqual(repr(function(*arguments.values())), repr(result))
+            self.assertEqual(told(function(**arguments)), told(result))
+            self.assertEqual(told(function(*arguments.values())), told(result))
 
     def test_defaults(self):
         for (module, name), defaults in DEFAULTS.items():
@@ -128,14 +167,14 @@ class TestInterface(Case):
             given = [id(one) for worth in arguments.values() for one in lists_in(worth)]
             rows = lists_in(result)
             self.assertEqual([one for one in rows if id(one) in given], [])
-            before = repr(result)
+            before = told(result)
             for one in rows:
                 one.append("more")
-            self.assertEqual(repr(function(*arguments.values())), before)
+            self.assertEqual(told(function(*arguments.values())), before)
 
     def test_truths_are_truths(self):
         for module, name, function, arguments in functions():
-            if name.startswith(("is_", "has_")) or name in ("takes", "holds", "alike", "accepts"):
+            if name.startswith(("is_", "has_")) or name in ("takes", "holds", "alike", "accepts", "fits", "go_alike"):
                 self.assertIs(type(function(*arguments.values())), bool, name)
                 if "value" in arguments:
                     for value in VALUES:
@@ -143,16 +182,33 @@ class TestInterface(Case):
 
     def test_the_first_wrong_argument_counts(self):
         bad = {"world": (errors.InvalidWorld, ((),)), "other_world": (errors.InvalidWorld, None),
-               "count": (errors.InvalidCount, -1), "program": (errors.InvalidProgram, ((),))}
+               "count": (errors.InvalidCount, -1), "program": (errors.InvalidProgram, ((),)),
+               "code": (errors.InvalidCode, ()), "other_code": (errors.InvalidCode, None),
+               "held": (errors.InvalidHeld, ()), "spot": (errors.InvalidSpot, ("scalar", "none")),
+               "kind": (errors.InvalidKind, "none"), "root": (errors.InvalidRoot, ("field", -1))}
         seen = set()
-        for _, name, function, arguments in functions():
-            checked = [one for one in arguments if one in bad]
+        for module, name, function, arguments in functions():
+            checked = [one for one in arguments if one in bad and (one != "kind" or module == "knowing")]
             for at, wrong in enumerate(checked):
                 seen.add((name, wrong))
                 values = [bad[one][1] if one in checked[at:] else worth for one, worth in arguments.items()]
                 self.raises(bad[wrong][0], function, *values)
                 self.raises(bad[wrong][0], function, **{**arguments, wrong: bad[wrong][1]})
-        self.assertEqual(len(seen), 6 + 5 + 1)
+        self.assertEqual(len(seen), 6 + 5 + 1 + 4 + 18 + 3 + 3 + 7 + 1 + 10 + 9 + 2)
+
+    def test_unsound_codes_come_behind_invalid_ones(self):
+        """Behind InvalidCode of both, ahead of the errors of all parameters that follow."""
+        many = 0
+        for module, name, function, arguments in functions():
+            if "code" not in arguments or name in ("code_fault", "is_code_fault"):
+                continue
+            wrong = [BAD_CODE if one in ("code", "other_code") else None for one in arguments]
+            self.raises(errors.UnsoundCode, function, *wrong)
+            many += 1
+            if "other_code" in arguments:
+                self.raises(errors.UnsoundCode, function, *[CODE, BAD_CODE] + wrong[2:])
+                self.raises(errors.InvalidCode, function, *[BAD_CODE, None] + wrong[2:])
+        self.assertEqual(many, 2 + 7 + 2 + 3 + 4 + 1 + 5 + 4)
 
     def test_counts(self):
         for action in [walk, tick_places]:
@@ -176,6 +232,44 @@ class TestInterface(Case):
                 self.raises(errors.InvalidProgram, code_of, value)
         self.raises(errors.UnsoundProgram, code_of, fault)
         self.raises_with(errors.KindClash, "chain", kinds.clash_chain(clash), code_of, clash)
+
+
+METHODS = {
+    Bench: {"go": ["count"], "run": ["count"], "back": ["count"], "mark": ["place"], "unmark": ["place"],
+            "more_main": ["index", "text", "whole"], "more_aside": ["kind", "name", "text", "whole"], "undo": [], "begin": [],
+            "keep": [], "drop": [], "twin": [], "__len__": [], "__iter__": [], "__eq__": ["other"], "end": [], "told": [],
+            "events": [], "held": [], "place": [], "value": ["name"], "entry": ["name", "key"], "output": ["kind", "name"],
+            "watch": ["name"], "parts_from": ["other"], "__init__": ["program", "world"]},
+    TiedBench: {"back": ["count"], "undo": [], "drop": []},
+    Console: {"execute": ["command"], "__init__": []},
+}
+
+
+class TestClasses(Case):
+
+    def test_methods(self):
+        """Each method that is listed for a class is defined in it, with its arguments."""
+        for made, methods in METHODS.items():
+            for name, parameters in methods.items():
+                self.assertEqual(list(inspect.signature(vars(made)[name]).parameters)[1:], parameters, name)
+        for name in ["program", "world", "ticks", "marks", "deeds", "depth"]:
+            self.assertIs(type(vars(Bench)[name]), property)
+
+    def test_where_they_stand(self):
+        for made, module in [(Bench, "bench"), (TiedBench, "bench"), (Console, "console")]:
+            self.assertEqual(made.__module__, "patterndeeds." + module)
+        self.assertEqual(TiedBench.__bases__, (Bench,))
+
+    def test_by_name(self):
+        bench = TiedBench(program=PROGRAM, world=WORLD)
+        bench.go(count=2), bench.run(count=1), bench.back(count=1), bench.mark(place=1), bench.unmark(place=1)
+        bench.more_main(index=0, text="", whole=False)
+        self.assertEqual(bench.value(name="NF"), bench.value("NF"))
+        self.assertEqual(bench.entry(name="n", key="a"), bench.entry("n", "a"))
+        self.assertEqual(bench.output(kind="", name=""), bench.output("", ""))
+        self.assertEqual(bench.watch(name="NR"), bench.watch("NR"))
+        self.assertIsNone(bench.parts_from(other=bench))
+        self.assertEqual(Console().execute(command="program"), "ok")
 
 
 if __name__ == "__main__":
