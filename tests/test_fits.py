@@ -108,6 +108,26 @@ class TestFits(Case):
                     value = exchanged(held, random.choice(paths), random.choice(parts))
                     self.assertIs(fits(code, world, value), slowholding.fits(code, world, value), (code, world, value))
 
+    def test_steps_of_what_fits(self):
+        """[M1], [M2]: whatever fits does its instruction, fails or waits, and what comes of it fits."""
+        random = random_of("steps")
+        maker = Codes(random)
+        ends = set()
+        for _ in range(60 * MANY):
+            code, world = maker.code(random.choice([10, 20, 40])), maker.world()
+            held = random.choice(states_of(code, world, 40))
+            paths = leaf_paths(held)
+            parts = PARTS + [part_at(held, path) for path in random.sample(paths, min(10, len(paths)))]
+            for _ in range(50):
+                value = exchanged(held, random.choice(paths), random.choice(parts))
+                if fits(code, world, value):
+                    new = step(code, world, value)[0]
+                    self.assertIs(fits(code, world, new), True, (code, world, value))
+                    end = end_of(code, world, value)
+                    self.assertEqual(new == value, end[0] in ("more", "over", "error"))
+                    ends.add((new[0] or end)[0])
+        self.assertTrue({"step", "tick", "error", "over"} <= ends)
+
     def test_any_value(self):
         code = code_of(program_of(SOURCE))
         for value in VALUES + [(None,) * 6, (None, 0, (0, 0), (), (), ())]:
