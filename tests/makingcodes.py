@@ -238,7 +238,8 @@ class Codes:
         self.heads = {body[0]: body[1] for body in code[3][1:]}
         rows = list(rows)
         at = self.random.randrange(len(rows))
-        row = self.pick([self.pushing(), self.plain()[0], ("drop",), ("drop",), ("jump", self.random.randrange(len(rows))),
+        row = self.pick([self.pushing(), self.plain()[0], ("drop",), ("drop",), ("jump",
+                self.random.randrange(len(rows))),
                          ("jump_if", True, self.random.randrange(len(rows))), ("walk", self.place()),
                          ("array", self.place())])
         if rows[at] == END:

@@ -15,7 +15,8 @@ KIND = "([<|])"
 FORMS = {
     "program": TEXT, "input": " " + NAME + TEXT, "start": " " + NAME + TEXT, "aside": " " + KIND + " " + NAME + TEXT,
     "more": " " + NUMBER + TEXT, "whole": " " + NUMBER, "feed": " " + KIND + " " + NAME + TEXT,
-    "close": " " + KIND + " " + NAME, "go": " " + NUMBER, "back": " " + NUMBER, "run": " " + NUMBER, "mark": " " + NUMBER,
+    "close": " " + KIND + " " + NAME, "go": " " + NUMBER, "back": " " + NUMBER, "run": " " + NUMBER,
+            "mark": " " + NUMBER,
     "unmark": " " + NUMBER, "begin": "", "keep": "", "drop": "", "undo": "", "where": "", "show": " " + NAME,
     "entry": " " + NAME + TEXT, "field": " " + NUMBER, "record": "", "output": " (?:([>|]) " + NAME + "|-)", "tree": "",
     "code": "", "least": "",
@@ -53,7 +54,8 @@ class SlowConsole:
         if word in ("go", "back", "run"):
             return str(self.bench.do((word, int(parts[0]))))
         deeds = {"mark": lambda: ("mark", int(parts[0])), "unmark": lambda: ("unmark", int(parts[0])),
-                 "more": lambda: ("main", int(parts[0]), parts[1], False), "whole": lambda: ("main", int(parts[0]), "", True),
+                 "more": lambda: ("main", int(parts[0]), parts[1], False), "whole": lambda: ("main", int(parts[0]), "",
+                 True),
                  "feed": lambda: ("aside", parts[0], parts[1], parts[2], False),
                  "close": lambda: ("aside", parts[0], parts[1], "", True)}
         if word in deeds:

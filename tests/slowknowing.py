@@ -4,10 +4,12 @@ import soundness
 
 END = ("phase", "end")
 N, T = ["number"], ["text"]
-SPECIAL_KINDS = {"NF": N, "NR": N, "FNR": N, "RSTART": N, "RLENGTH": N, "FILENAME": T, "FS": T, "OFS": T, "ORS": T, "RS": T,
+SPECIAL_KINDS = {"NF": N, "NR": N, "FNR": N, "RSTART": N, "RLENGTH": N, "FILENAME": T, "FS": T, "OFS": T, "ORS": T,
+        "RS": T,
                  "SUBSEP": T}
 # What instructions give that is no copy: the kinds of each thing.
-KINDS = {"op": [N], "minus": [N], "plus": [N], "not": [N], "compare": [N], "compare_as": [N], "match": [N], "range": [N],
+KINDS = {"op": [N], "minus": [N], "plus": [N], "not": [N], "compare": [N], "compare_as": [N], "match": [N],
+        "range": [N],
          "is_in": [N], "size": [N], "close": [N], "split": [N], "key": [T], "join": [T], "substitute": [T, N],
          "field": [["seen", "unset"]]}
 BUILT = {"length": N, "index": N, "int": N, "match": N, "substr": T, "tolower": T, "toupper": T, "sprintf": T}
@@ -60,7 +62,8 @@ class Flow:
                 self.spots.add(("result", body))
             self.spots |= {("local", body, at) for at in range(len(self.code[3][body][1]))}
         for body, at in self.rows:
-            self.spots |= {("entry", body, at, height) for height, word in enumerate(self.shapes[body][at]) if word == "value"}
+            self.spots |= {("entry", body, at, height) for height,
+                    word in enumerate(self.shapes[body][at]) if word == "value"}
 
     def place(self, body, where):
         return ("array", where[1]) if where[0] == "global" else ("local", body, where[1])

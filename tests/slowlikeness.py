@@ -41,7 +41,8 @@ def relation(code, number, other, other_number):
     shrinks = True
     while shrinks:
         left = {(at, other_at) for at, other_at in pairs
-                if all(one is None or (one, two) in pairs for one, two in zip(ahead(rows, at), ahead(other_rows, other_at)))}
+                if all(one is None or (one, two) in pairs for one, two in zip(ahead(rows, at), ahead(other_rows,
+                        other_at)))}
         shrinks = left != pairs
         pairs = left
     return pairs

@@ -82,7 +82,8 @@ def left_to_do(code, name):
                             or two == (("turn", 2), ("turn", 2)) or two[0] == ("not",) and two[1][0] == "jump_if"):
                     found.append((number, at))
                 row = rows[at]
-                if row == ("jump", at + 1) or row[0] in NUMBER_OF_NAMED and rows[row[NUMBER_OF_NAMED[row[0]]]][0] == "jump":
+                if row == ("jump",
+                        at + 1) or row[0] in NUMBER_OF_NAMED and rows[row[NUMBER_OF_NAMED[row[0]]]][0] == "jump":
                     found.append((number, at))
     return found
 

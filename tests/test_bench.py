@@ -7,7 +7,8 @@ from patterndeeds import errors
 from patterndeeds.bench import Bench, TiedBench, replay
 from patterndeeds.codes import code_of
 from patterndeeds.errors import (
-    InvalidCount, InvalidDeeds, InvalidIndex, InvalidPlace, InvalidProgram, InvalidWorld, KindClash, NoBlock, NothingToUndo,
+    InvalidCount, InvalidDeeds, InvalidIndex, InvalidPlace, InvalidProgram, InvalidWorld, KindClash, NoBlock,
+            NothingToUndo,
     Refused, UnknownName, UnsoundProgram, Whole, Written,
 )
 from patterndeeds.kinds import arrays, scalars
@@ -25,7 +26,8 @@ COUNTS = [0, -1, True, False, None, "1", 1.0, (), Number(1), -10 ** 80]
 
 def told_by(bench):
     """All that a bench tells."""
-    return (bench.ticks, bench.world, bench.marks, bench.deeds, bench.depth, len(bench), list(bench), bench.end(), bench.told(),
+    return (bench.ticks, bench.world, bench.marks, bench.deeds, bench.depth, len(bench), list(bench), bench.end(),
+            bench.told(),
             bench.events(), bench.held(), bench.place())
 
 
@@ -43,12 +45,14 @@ class TestDeeds(Case):
         self.assertEqual((bench.program, bench.world, bench.ticks, bench.marks, bench.deeds, bench.depth, len(bench)),
                 (PROGRAM, WORLD, 0, [], [], 0, 0))
         code = code_of(PROGRAM)
-        self.assertEqual((bench.end(), bench.place(), bench.held()), (("tick", 0), 0, go(code, WORLD, begun(code), 0)[2]))
+        self.assertEqual((bench.end(), bench.place(), bench.held()), (("tick", 0), 0, go(code, WORLD, begun(code),
+                0)[2]))
         self.assertEqual((0, bench.end(), bench.told(), bench.events()), walk(PROGRAM, WORLD, 0))
 
     def test_going(self):
         bench = Bench(program=PROGRAM, world=WORLD)
-        self.assertEqual([bench.go(3), bench.go(count=4), bench.back(2), bench.go(100), bench.go(1), bench.back(count=1)],
+        self.assertEqual([bench.go(3), bench.go(count=4), bench.back(2), bench.go(100), bench.go(1),
+                bench.back(count=1)],
                 [3, 4, 2, 7, 0, 1])
         self.assertEqual(bench.deeds, [("go", 3), ("go", 4), ("back", 2), ("go", 100), ("go", 1), ("back", 1)])
         self.assertEqual((bench.ticks, bench.end()), walk(PROGRAM, WORLD, 11)[:2])
@@ -73,7 +77,8 @@ class TestDeeds(Case):
         bench = Bench(program, ((), ()))
         bench.mark(place=2)
         bench.mark(5)
-        self.assertEqual([bench.run(9), bench.end(), bench.run(9), bench.end(), bench.run(9), bench.end(), bench.run(9)],
+        self.assertEqual([bench.run(9), bench.end(), bench.run(9), bench.end(), bench.run(9), bench.end(),
+                bench.run(9)],
                 [1, ("tick", 2), 3, ("tick", 5), 2, ("over", 0), 0])
         bench.back(6)
         self.assertEqual([bench.run(1), bench.run(2), bench.ticks], [1, 2, 3])
@@ -125,7 +130,8 @@ class TestDeeds(Case):
     def test_undo(self):
         bench = Bench(PROGRAM, WORLD)
         states = [told_by(bench)[:5]]
-        for method, values in [("go", (5,)), ("mark", (2,)), ("back", (2,)), ("more_main", (0, "x", True)), ("run", (9,)),
+        for method, values in [("go", (5,)), ("mark", (2,)), ("back", (2,)), ("more_main", (0, "x", True)), ("run",
+                (9,)),
                 ("unmark", (2,)), ("go", (50,)), ("more_aside", ("<", "f", "\n", False))]:
             getattr(bench, method)(*values)
             states.append(told_by(bench)[:5])
@@ -236,17 +242,21 @@ class TestDeeds(Case):
         bench = Bench(PROGRAM, WORLD)
         self.assertEqual(bench.watch("s"), [(0, ("unset",))])
         bench.go(15)
-        self.assertEqual((bench.value("s"), bench.value(name="NR"), bench.value("RLENGTH")), (("number", 3, 1), ("number", 2, 1),
+        self.assertEqual((bench.value("s"), bench.value(name="NR"), bench.value("RLENGTH")), (("number", 3, 1),
+                ("number", 2, 1),
                 ("number", -1, 1)))
         self.assertEqual((bench.entry("n", "a"), bench.entry(name="n", key="b"), bench.entry("n", "c")),
                 (("number", 1, 1), ("number", 1, 1), None))
-        self.assertEqual((bench.output("", ""), bench.output(">", "o"), bench.output(kind=">>", name="o")), (None, None, None))
+        self.assertEqual((bench.output("", ""), bench.output(">", "o"), bench.output(kind=">>", name="o")), (None,
+                None, None))
         bench.more_main(0, "", True)
         bench.more_aside("<", "f", "", True)
         bench.go(99)
-        self.assertEqual((bench.output("", ""), bench.output(">", "o"), bench.output(">>", "o"), bench.output("|", "o")),
+        self.assertEqual((bench.output("", ""), bench.output(">", "o"), bench.output(">>", "o"), bench.output("|",
+                "o")),
                 ("6\n", "6\n", None, None))
-        self.assertEqual(bench.watch("s"), [(0, ("unset",)), (3, ("number", 1, 1)), (9, ("number", 3, 1)), (15, ("number", 6, 1))])
+        self.assertEqual(bench.watch("s"), [(0, ("unset",)), (3, ("number", 1, 1)), (9, ("number", 3, 1)), (15,
+                ("number", 6, 1))])
         self.assertEqual(bench.watch(name="z")[-1][1], ("seen", "y"))
         for name in ["n", "none", "", "f"]:
             self.raises(UnknownName, bench.value, name)
@@ -338,8 +348,10 @@ class TestTied(Case):
         self.assertEqual(bench.undo(), ("go", 1))
 
     def test_methods_stand_in_the_classes(self):
-        for name in ["go", "run", "back", "mark", "unmark", "more_main", "more_aside", "undo", "begin", "keep", "drop", "twin",
-                "__len__", "__iter__", "__eq__", "end", "told", "events", "held", "place", "value", "entry", "output", "watch",
+        for name in ["go", "run", "back", "mark", "unmark", "more_main", "more_aside", "undo", "begin", "keep", "drop",
+                "twin",
+                "__len__", "__iter__", "__eq__", "end", "told", "events", "held", "place", "value", "entry", "output",
+                "watch",
                 "parts_from", "program", "world", "ticks", "marks", "deeds", "depth"]:
             self.assertIn(name, vars(Bench))
         for name in ["back", "undo", "drop"]:
@@ -350,11 +362,13 @@ class TestTied(Case):
 class TestReplay(Case):
 
     def test_deeds(self):
-        deeds = [("go", 4), ("mark", 3), ("back", 1), ("main", 0, "4 c", True), ("aside", "<", "f", "", False), ("run", 99),
+        deeds = [("go", 4), ("mark", 3), ("back", 1), ("main", 0, "4 c", True), ("aside", "<", "f", "", False), ("run",
+                99),
                  ("unmark", 3), ("go", 10 ** 80)]
         bench = replay(PROGRAM, WORLD, deeds)
         other = Bench(PROGRAM, WORLD)
-        other.go(4), other.mark(3), other.back(1), other.more_main(0, "4 c", True), other.more_aside("<", "f", "", False)
+        other.go(4), other.mark(3), other.back(1), other.more_main(0, "4 c", True), other.more_aside("<", "f", "",
+                False)
         other.run(99), other.unmark(3), other.go(10 ** 80)
         self.assertTrue(bench == other)
         self.assertEqual(told_by(bench), told_by(other))
@@ -366,19 +380,26 @@ class TestReplay(Case):
 
     def test_wrong_deeds(self):
         good = [("go", 4), ("mark", 3)]
-        for deed in [("go", 0), ("go", True), ("go", Number(1)), ("go", "1"), ("go",), ("go", 1, 1), ("back", 5), ("back", 0),
-                ("back", None), ("run", 0), ("run", -1), ("run", 1.0), ("mark", 3), ("mark", True), ("mark", 99), ("mark", -1),
-                ("mark", None), ("unmark", 1), ("unmark", Number(3)), ("unmark", "3"), ("main", 1, "", True), ("main", -1, "", True),
-                ("main", False, "", True), ("main", 0, "\r", True), ("main", 0, None, True), ("main", 0, "", 1), ("main", 0, ""),
+        for deed in [("go", 0), ("go", True), ("go", Number(1)), ("go", "1"), ("go",), ("go", 1, 1), ("back", 5),
+                ("back", 0),
+                ("back", None), ("run", 0), ("run", -1), ("run", 1.0), ("mark", 3), ("mark", True), ("mark", 99),
+                ("mark", -1),
+                ("mark", None), ("unmark", 1), ("unmark", Number(3)), ("unmark", "3"), ("main", 1, "", True), ("main",
+                -1, "", True),
+                ("main", False, "", True), ("main", 0, "\r", True), ("main", 0, None, True), ("main", 0, "", 1),
+                ("main", 0, ""),
                 ("main", 0, Text(""), True), ("main", 0, "", True, True), ("aside", "|", "f", "", True),
-                ("aside", "<", "g", "", True), ("aside", "<", "f", "", None), ("aside", "<", "f", 1, True), ("aside", None, "f", "", True),
-                ("aside", "<", ["f"], "", True), ("aside", "<", "f", "%", True), ("undo",), ("begin",), ("Go", 1), (Text("go"), 1),
+                ("aside", "<", "g", "", True), ("aside", "<", "f", "", None), ("aside", "<", "f", 1, True), ("aside",
+                None, "f", "", True),
+                ("aside", "<", ["f"], "", True), ("aside", "<", "f", "%", True), ("undo",), ("begin",), ("Go", 1),
+                (Text("go"), 1),
                 ["go", 1], Row(("go", 1)), "go", None, (), ("",), (("go", 1),)] + VALUES:
             for ahead, behind in [([], []), (good, []), (good, [("go", 1)]), (good, [None])]:
                 if ahead == [] and deed in [("back", 5), ("mark", 3)]:
                     continue
                 self.raises_with(InvalidDeeds, "index", len(ahead), replay, PROGRAM, WORLD, ahead + [deed] + behind)
-        self.raises_with(InvalidDeeds, "index", 1, replay, PROGRAM, WORLD, [("main", 0, "", True), ("main", 0, "", True)])
+        self.raises_with(InvalidDeeds, "index", 1, replay, PROGRAM, WORLD, [("main", 0, "", True), ("main", 0, "",
+                True)])
         for value in [(), tuple(good), Rows(good), {}, "go", None, 1]:
             self.raises_with(InvalidDeeds, "index", 0, replay, PROGRAM, WORLD, value)
 
@@ -423,7 +444,8 @@ class TestSessions(Case):
         elif what < 11:
             self.both(bench, slow, "more_main", random.randrange(-1, 3), maker.line(5), random.random() < 0.3)
         elif what < 12:
-            self.both(bench, slow, "more_aside", random.choice("<|"), random.choice(["f", "p"]), maker.line(5), random.random() < 0.3)
+            self.both(bench, slow, "more_aside", random.choice("<|"), random.choice(["f", "p"]), maker.line(5),
+                    random.random() < 0.3)
         elif what < 15:
             self.both(bench, slow, "undo")
         elif what < 18:

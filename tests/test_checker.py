@@ -174,9 +174,11 @@ class TestIsCodeFault(Case):
                     (kind, number, [tuple(way) for way in ways]), (kind, number, ways + [ways[0]]),
                     (kind, number, []), (kind, number, ways[0]), (kind, number, [Rows(way) for way in ways]),
                     (kind, number, [ways[0] + [True]] + ways[1:]), (kind, number, [ways[0] + [None]] + ways[1:]),
-                    (kind, number, [ways[0][:-1] + [float(ways[0][-1])]] + ways[1:]), (kind, number, [None] * len(ways)),
+                    (kind, number, [ways[0][:-1] + [float(ways[0][-1])]] + ways[1:]), (kind, number,
+                    [None] * len(ways)),
                     (kind, number, [[]] * len(ways)), (kind, number, [["0"]] * len(ways)),
-                    (kind, number, [ways[0][:-1] + [-1]] + ways[1:]), (kind, number, [ways[0][:-1] + [10 ** 80]] + ways[1:])]
+                    (kind, number, [ways[0][:-1] + [-1]] + ways[1:]), (kind, number,
+                    [ways[0][:-1] + [10 ** 80]] + ways[1:])]
             if kind == "unlike":
                 wrong += [(kind, number, ways[:1]), (kind, number, [ways[0], ways[0]])]
                 self.assertIs(is_code_fault(code, (kind, number, ways[::-1])), True)
@@ -188,7 +190,8 @@ class TestIsCodeFault(Case):
     def test_rows_behind_a_lack(self):
         """No row of a way but the last lacks anything."""
         code = main_code(("drop",), ("drop",), ("jump", 0), *TAIL)
-        for kind, ways, wanted in [("lacks", [[0]], True), ("lacks", [[0, 1]], False), ("tickless", [[0, 1, 2, 0]], False),
+        for kind, ways, wanted in [("lacks", [[0]], True), ("lacks", [[0, 1]], False), ("tickless", [[0, 1, 2, 0]],
+                False),
                 ("lacks", [[0, 0]], False), ("lacks", [[1]], False)]:
             self.assertIs(is_code_fault(code, (kind, 0, ways)), wanted, ways)
         code = main_code(ONE, ("jump_if", True, 3), ONE, ("op", "+"), ("halt",), *TAIL)
@@ -197,7 +200,8 @@ class TestIsCodeFault(Case):
 
     def test_more_than_one_round(self):
         code = main_code(("tick", 0), ONE, ("jump_if", True, 1), ("jump_if", True, 0), *TAIL)
-        for way, wanted in [([0, 1, 2, 1], True), ([0, 1, 2, 1, 2], True), ([0, 1, 2, 1, 2, 1], True), ([0, 1, 2], False),
+        for way, wanted in [([0, 1, 2, 1], True), ([0, 1, 2, 1, 2], True), ([0, 1, 2, 1, 2, 1], True), ([0, 1, 2],
+                False),
                 ([0, 1, 2, 1, 2, 3, 4], False), ([1, 2, 1], False)]:
             self.assertIs(is_code_fault(code, ("tickless", 0, [way])), wanted, way)
         code = main_code(("tick", 0), ("jump", 0), *TAIL)

@@ -79,7 +79,8 @@ TRIMS = [
     ([txt("k"), ("element", ("global", "a")), ("drop",), ("tick", 1)], None),
     ([("name", "x"), ("minus",), ("drop",)], None),
     ([("walk", ("global", "a")), ("drop",)], None),
-    ([con(1), con(2), ("turn", 2), ("turn", 2), ("op", "-"), X, ("drop",)], [con(1), con(2), ("op", "-"), X, ("drop",)]),
+    ([con(1), con(2), ("turn", 2), ("turn", 2), ("op", "-"), X, ("drop",)], [con(1), con(2), ("op", "-"), X,
+            ("drop",)]),
     ([con(1), con(2), ("turn", 2), ("turn", 2), ("turn", 2), ("op", "-"), X, ("drop",)],
      [con(1), con(2), ("turn", 2), ("op", "-"), X, ("drop",)]),
     ([con(1), con(2), con(3), ("turn", 3), ("turn", 3), ("op", "-"), ("op", "-"), X, ("drop",)], None),
@@ -90,16 +91,19 @@ TRIMS = [
      [("name", "x"), ("jump_if", False, 3), ("tick", 1), ("tick", 2)]),
     ([("name", "x"), ("jump_if", True, 3), ("jump", 4), ("jump", 5), ("tick", 1), ("tick", 2)],
      [("name", "x"), ("jump_if", True, 3), ("tick", 1), ("tick", 2)]),
-    ([("tick", 0), ("record", 3), ("jump", 0), ("jump", 4), ("tick", 1)], [("tick", 0), ("record", 3), ("jump", 0), ("tick", 1)]),
+    ([("tick", 0), ("record", 3), ("jump", 0), ("jump", 4), ("tick", 1)], [("tick", 0), ("record", 3), ("jump", 0),
+            ("tick", 1)]),
     ([("tick", 0), con(1), ("next", 3), ("jump", 4), ("tick", 1)], [("tick", 0), con(1), ("next", 3), ("tick", 1)]),
     ([("walk", ("global", "a")), ("tick", 0), ("next_key", 5), ("drop",), ("jump", 1), ("jump", 6), ("tick", 1)],
      [("walk", ("global", "a")), ("tick", 0), ("next_key", 5), ("drop",), ("jump", 1), ("tick", 1)]),
     ([("jump", 2), ("tick", 1), ("jump", 4), ("tick", 2), ("tick", 3)], [("tick", 3)]),
     # A row between is named.
     ([con(1), ("name", "x"), ("jump_if", True, 3), ("drop",), ("tick", 1)], None),
-    ([con(1), con(2), ("turn", 2), ("name", "x"), ("jump_if", True, 6), ("tick", 1), ("turn", 2), ("op", "-"), X, ("drop",)],
+    ([con(1), con(2), ("turn", 2), ("name", "x"), ("jump_if", True, 6), ("tick", 1), ("turn", 2), ("op", "-"), X,
+            ("drop",)],
      None),
-    ([("name", "x"), ("not",), ("name", "y"), ("jump_if", True, 4), ("jump_if", True, 6), ("tick", 1), ("tick", 2)], None),
+    ([("name", "x"), ("not",), ("name", "y"), ("jump_if", True, 4), ("jump_if", True, 6), ("tick", 1), ("tick", 2)],
+            None),
     # What is named and left out hands its name on.
     ([("tick", 0), ("name", "x"), ("jump_if", True, 4), ("tick", 1), con(1), ("drop",), ("tick", 2)],
      [("tick", 0), ("name", "x"), ("jump_if", True, 4), ("tick", 1), ("tick", 2)]),
@@ -125,7 +129,8 @@ class TestPasses(Case):
     def test_locals(self):
         code = code_with([("tick", 0)], [("local", 0), ("drop",), ("jump", 3), ("local", 0), ("return",), ("tick", 4)])
         self.assertEqual(trimmed(code), code_with([("tick", 0)], [("local", 0), ("return",)]))
-        code = code_with([("tick", 0)], [con(1), ("jump_if", True, 3), ("tick", 1), con(2), con(3), ("op", "+"), ("return",)])
+        code = code_with([("tick", 0)], [con(1), ("jump_if", True, 3), ("tick", 1), con(2), con(3), ("op", "+"),
+                ("return",)])
         self.assertEqual(folded(code), code_with([("tick", 0)], [("jump", 1), con(5), ("return",)]))
         self.assertEqual(trimmed(folded(code)), code_with([("tick", 0)], [con(5), ("return",)]))
 
@@ -134,13 +139,15 @@ class TestPasses(Case):
         code = (SCALARS, ARRAYS, 0, (("", (), (con(1), ("drop",), END, con(2), ("drop",), ("halt",))),))
         self.assertEqual(trimmed(code)[3][0][2], (END, ("halt",)))
         code = (SCALARS, ARRAYS, 0, (("", (), (("halt",), ("tick", 1), END, ("jump", 4), ("halt",))),))
-        for action, rows in [(swept, (("halt",), END, ("jump", 3), ("halt",))), (folded, (("halt",), END, ("jump", 3), ("halt",))),
+        for action, rows in [(swept, (("halt",), END, ("jump", 3), ("halt",))), (folded, (("halt",), END, ("jump", 3),
+                ("halt",))),
                 (trimmed, (("halt",), END, ("halt",)))]:
             self.assertEqual(action(code)[3][0][2], rows)
 
     def test_sweeps(self):
         for rows, wanted in [([("jump", 2), ("drop",), ("tick", 1)], [("jump", 1), ("tick", 1)]),
-                ([con(1), con(2), ("op", "+"), ("drop",)], None), ([con(1), ("jump_if", True, 3), ("jump", 3), ("tick", 1)], None),
+                ([con(1), con(2), ("op", "+"), ("drop",)], None), ([con(1), ("jump_if", True, 3), ("jump", 3), ("tick",
+                1)], None),
                 ([("tick", 0), ("jump", 0), ("tick", 2), ("jump", 2)], [("tick", 0), ("jump", 0)])]:
             self.check(swept, rows, wanted, "swept")
 
@@ -176,8 +183,8 @@ class TestPasses(Case):
 
     def test_by_turns(self):
         """Each pass of what another one made."""
-        source = "BEGIN { if (!(1 < 2) || x) y = 1 + 2 * 3; else { 1; y } while (1) { if (y) break; x = !x } exit -(1) }"
-        code = code_of(program_of(source))
+        source = "BEGIN { if (!(1 < 2) || x) y = 1 + 2 * 3; else { 1; y } while (1) { if (y) break; x = !x } "
+        code = code_of(program_of(source + "exit -(1) }"))
         for first in [folded, trimmed, swept]:
             for second in [folded, trimmed, swept]:
                 self.check_pass(second, first(code), ((), ()))

@@ -47,8 +47,10 @@ class TestFeeds(Case):
         for rows, spot in [
                 ([y, X, DROP], ("scalar", "x")), ([y, num(1), ("op", "+"), X, DROP], ("scalar", "x")),
                 ([num(1), y, ("compare", "<"), X, DROP], ("scalar", "x")), ([y, ("not",), X, DROP], ("scalar", "x")),
-                ([y, ("copy",), X, DROP, DROP], ("scalar", "x")), ([num(1), y, ("turn", 2), X, DROP, DROP], ("scalar", "x")),
-                ([y, num(1), ("set_element", A), DROP], ("array", "a")), ([num(1), y, ("set_element", A), DROP], ("array", "a")),
+                ([y, ("copy",), X, DROP, DROP], ("scalar", "x")), ([num(1), y, ("turn", 2), X, DROP, DROP], ("scalar",
+                "x")),
+                ([y, num(1), ("set_element", A), DROP], ("array", "a")), ([num(1), y, ("set_element", A), DROP],
+                ("array", "a")),
                 ([y, ("element", A), DROP], ("array", "a")), ([y, ("delete", A)], ("array", "a")),
                 ([y, ("element", A), DROP, ("size", A), X, DROP], ("scalar", "x")),
                 ([y, ("element", A), DROP, num(1), ("is_in", A), X, DROP], ("scalar", "x")),
@@ -64,7 +66,8 @@ class TestFeeds(Case):
                 ([txt("q"), y, ("split", A, 2), DROP], ("array", "a")),
                 ([y, ("set_name", "FS"), DROP, txt("q"), ("split", A, 1), DROP], ("array", "a")),
                 ([y, ("set_name", "FS"), DROP, txt("q"), txt(","), ("split", A, 2), X, DROP], ("scalar", "x")),
-                ([y, ("close",), X, DROP], ("scalar", "x")), ([txt("q"), y, ("print", 1, ">"), num(1), ("close",), X, DROP],
+                ([y, ("close",), X, DROP], ("scalar", "x")), ([txt("q"), y, ("print", 1, ">"), num(1), ("close",), X,
+                DROP],
                  ("scalar", "x")), ([txt("q"), y, ("printf", 1, "|"), num(1), ("close",), X, DROP], ("scalar", "x")),
                 ([y, ("read", "|", "value"), DROP, DROP, num(1), ("close",), X, DROP], ("scalar", "x")),
                 ([y, ("close",), DROP, txt("q"), ("read", "|", "record"), X, DROP], ("scalar", "x")),
@@ -83,17 +86,20 @@ class TestFeeds(Case):
                 ([y, ("is_in", A), DROP], ("array", "a")), ([y, ("key", 1), X, DROP], ("array", "a")),
                 ([y, ("set_name", "SUBSEP"), DROP, num(2), ("key", 1), X, DROP], ("scalar", "x")),
                 ([y, ("set_name", "ORS"), DROP], ("record",)), ([y, ("set_name", "NR"), DROP], ("scalar", "FNR")),
-                ([txt("q"), y, ("built", "index", 2), DROP], ("scalar", "RSTART")), ([y, ("print", 1, ""), num(1), ("close",), X, DROP],
+                ([txt("q"), y, ("built", "index", 2), DROP], ("scalar", "RSTART")), ([y, ("print", 1, ""), num(1),
+                ("close",), X, DROP],
                  ("scalar", "x")), ([y, ("element", A), DROP, num(1), ("element", B), DROP], ("array", "b")),
                 ([y, ("close",), DROP, txt("q"), ("read", "|", "value"), DROP, DROP], ("record",)),
                 ([y, ("close",), DROP, ("read", "main", "record"), X, DROP], ("scalar", "x"))]:
             self.check(KEPT + rows, spot, False)
 
     def test_walks(self):
-        rows = KEPT + [("name", "y"), ("element", A), DROP, ("walk", A), ("tick", 0), ("next_key", 14), X, DROP, ("jump", 9)]
+        rows = KEPT + [("name", "y"), ("element", A), DROP, ("walk", A), ("tick", 0), ("next_key", 14), X, DROP,
+                ("jump", 9)]
         self.check(rows, ("scalar", "x"))
         self.assertIn(ROOT, course_hangs(code_with(rows)))
-        other = KEPT + [("name", "y"), ("element", A), DROP, ("walk", B), ("tick", 0), ("next_key", 14), X, DROP, ("jump", 9)]
+        other = KEPT + [("name", "y"), ("element", A), DROP, ("walk", B), ("tick", 0), ("next_key", 14), X, DROP,
+                ("jump", 9)]
         self.check(other, ("scalar", "x"), False)
         self.assertNotIn(ROOT, course_hangs(code_with(other)))
 
@@ -123,14 +129,16 @@ class TestFeeds(Case):
             self.assertEqual(hangs(code_with(rows), spot), roots, (rows, spot))
             for root in roots:
                 self.assertEqual(root_chain(code_with(rows), root, spot), [spot])
-        code = code_with([num(1), ("call", "f", 1), DROP], ("f", ("value",), (("read", "main", "value"), DROP, DROP, txt("p"),
+        code = code_with([num(1), ("call", "f", 1), DROP], ("f", ("value",), (("read", "main", "value"), DROP, DROP,
+                txt("p"),
                 ("read", "<", "value"), DROP, ("return",))))
         self.assertEqual(hangs(code, ("result", 1)), [("<", "p")])
 
     def test_fieldwise(self):
         """One row that sets what fields are makes all fields hang on the whole record; of reached live rows alone."""
         field = [num(3), ("field",), DROP]
-        for rows, number in [([], 3), ([num(1), num(1), ("set_field",), DROP], 0), ([num(1), ("set_name", "NF"), DROP], 0),
+        for rows, number in [([], 3), ([num(1), num(1), ("set_field",), DROP], 0), ([num(1), ("set_name", "NF"), DROP],
+                0),
                 ([num(1), ("set_name", "FS"), DROP], 0), ([num(1), ("set_name", "RS"), DROP], 0),
                 ([num(1), ("set_name", "OFS"), DROP], 3), ([num(1), ("set_name", "NR"), DROP], 3),
                 ([num(1), ("read", "<", "record"), DROP], 0), ([num(1), ("read", "|", "record"), DROP], 0),
@@ -166,7 +174,8 @@ class TestFeeds(Case):
         chain = [("entry", 0, 2, 0), ("entry", 0, 3, 0), ("scalar", "y"), ("entry", 0, 6, 0), ("scalar", "x")]
         spot = ("scalar", "x")
         self.assertEqual(root_chain(code, ROOT, spot), chain)
-        for value, wanted in [(chain, True), (chain[1:], False), (chain[:-1], False), (chain[::-1], False), (tuple(chain), False),
+        for value, wanted in [(chain, True), (chain[1:], False), (chain[:-1], False), (chain[::-1], False),
+                (tuple(chain), False),
                 ([], False), (Rows(chain), False), ([Row(one) for one in chain], False), (chain + [spot], False),
                 (chain[:1] + chain[2:], False), ([("entry", 0, 2, 1)] + chain[1:], False), ([None], False),
                 (chain[:1] + [("entry", False, 3, 0)] + chain[2:], False), ([spot], False),
@@ -180,8 +189,10 @@ class TestFeeds(Case):
 
     def test_errors(self):
         code, bad = code_with(KEPT), code_with([DROP])
-        wrong = [(">", "p"), ("<",), ("<", "p", 1), ["<", "p"], ("<", 1), ("<", "\r"), ("field", -1), ("field", True), ("field", "1"),
-                 ("field",), ("field", Number(1)), (Text("<"), "p"), ("<", Text("p")), Row(ROOT), (None, "p"), ("", "p")]
+        wrong = [(">", "p"), ("<",), ("<", "p", 1), ["<", "p"], ("<", 1), ("<", "\r"), ("field", -1), ("field", True),
+                ("field", "1"),
+                 ("field",), ("field", Number(1)), (Text("<"), "p"), ("<", Text("p")), Row(ROOT), (None, "p"), ("",
+                 "p")]
         for root in wrong + VALUES:
             self.raises(InvalidRoot, root_chain, code, root, None)
             self.raises(InvalidRoot, is_root_chain, code, root, None, None)
@@ -189,7 +200,8 @@ class TestFeeds(Case):
             self.raises(InvalidSpot, hangs, code, spot)
             self.raises(InvalidSpot, root_chain, code, ROOT, spot)
             self.raises(InvalidSpot, is_root_chain, code, ("field", 0), spot, None)
-        for action, more in [(hangs, (None,)), (course_hangs, ()), (root_chain, (None, None)), (is_root_chain, (None,) * 3)]:
+        for action, more in [(hangs, (None,)), (course_hangs, ()), (root_chain, (None, None)), (is_root_chain,
+                (None,) * 3)]:
             self.raises(UnsoundCode, action, bad, *more)
             for value in VALUES[:20]:
                 self.raises(InvalidCode, action, value, *more)
@@ -198,7 +210,8 @@ class TestFeeds(Case):
         random = random_of("hanging")
         maker, codes = Runs(random), Codes(random)
         for at in range(60 * MANY):
-            code = codes.code(random.choice([10, 20, 40])) if at % 2 else code_of(maker.program(random.choice([2, 3, 4])))
+            code = codes.code(random.choice([10, 20, 40])) if at % 2 else code_of(maker.program(random.choice([2, 3,
+                    4])))
             flow = Flow(code)
             table = flow.hanging()
             course = set().union(*[table[spot] for spot in flow.course])
@@ -229,7 +242,7 @@ SOURCES = ["""{ x = $2; y = $1 x; n[NR] = $3 } END { print y; for (k in n) z = n
 class TestFacts(Case):
 
     def compare(self, code, world, other, roots, record):
-        """Goes step by step in two worlds, as long as neither run ends with an error; what hangs on no root stays the same."""
+        """Goes step by step in two worlds, until a run ends with an error; what hangs on no root stays the same."""
         shapes = soundness.shapes(code)
         numbers = {body[0]: at for at, body in enumerate(code[3])}
         flow = Flow(code)
@@ -302,10 +315,12 @@ class TestFacts(Case):
                 if roots & set(course_hangs(code)):
                     continue
                 tried += 1
-                lines = [[random.choice(["a", "b", "12", "f", "xyz"]) for _ in range(random.randrange(5))] for _ in range(3)]
+                lines = [[random.choice(["a", "b", "12", "f",
+                        "xyz"]) for _ in range(random.randrange(5))] for _ in range(3)]
                 others = [[random.choice(["b", "7", "cc"]) if at == number - 1 else one for at, one in enumerate(line)]
                           for line in lines]
-                one, two = [((("m", "".join(" ".join(line) + "\n" for line in rows), True),), asides) for rows in (lines, others)]
+                one, two = [((("m", "".join(" ".join(line) + "\n" for line in rows), True),),
+                        asides) for rows in (lines, others)]
                 self.compare(code, one, two, roots, False)
         self.assertGreater(tried, 40)
 

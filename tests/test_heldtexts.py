@@ -105,7 +105,8 @@ class TestHeldTexts(Case):
 
     def test_signs_put_in_left_out_and_exchanged(self):
         random = random_of("signs")
-        code = code_of(program_of('BEGIN { f(a) } function f(p, q) { p["k"] = "a\\"\\n"; for (q in p) print q; getline; f(p) }'))
+        code = code_of(program_of('BEGIN { f(a) } function f(p, q) { p["k"] = "a\\"\\n"; for (q in p) print q; '
+                                  'getline; f(p) }'))
         world = ((("m", "x\n" * 9, True),), ())
         states = states_of(code, world, 60)
         right = set()
@@ -121,9 +122,12 @@ class TestHeldTexts(Case):
     def test_short_texts(self):
         random = random_of("short")
         code = code_of(program_of(""))
-        for text in ["", "(", ")", "()", "(()", "(())", "(N", "(N,", "(N,)", "(,)", "(N)", "(N))", "N", "1", '""', "(-", "(-0",
-                "(-0)", "(-1)", "(0", "(00)", "(01)", "(1 )", "( 1)", '("', '("\\', '("\\n', '("\\a")', '("\n")', '("\t")',
-                '("a")', '("a"', '("a"b', "(T", "(TF)", "(T,F,N)", "(t)", "()()", "(()())", "((),())", "(1,-1,0)", "(--1)",
+        for text in ["", "(", ")", "()", "(()", "(())", "(N", "(N,", "(N,)", "(,)", "(N)", "(N))", "N", "1", '""',
+                "(-", "(-0",
+                "(-0)", "(-1)", "(0", "(00)", "(01)", "(1 )", "( 1)", '("', '("\\', '("\\n', '("\\a")', '("\n")',
+                '("\t")',
+                '("a")', '("a"', '("a"b', "(T", "(TF)", "(T,F,N)", "(t)", "()()", "(()())", "((),())", "(1,-1,0)",
+                "(--1)",
                 "(1-)", "x(", " ()", "() "]:
             self.assertIs(self.check(code, text), False)
         for _ in range(300 * MANY):
@@ -153,7 +157,8 @@ class TestHeldTexts(Case):
         code, other = code_of(program_of("{ x = 1 }")), code_of(program_of("{ a[1] }"))
         text = held_text(code, begun(code))
         self.raises_with(InvalidText, "index", len(text), held_of, other, text)
-        for old, new in [("(-1,0,())", "(0,5,())"), ("(-1,0,())", "(7,9,((\"<\",\"f\",3)))"), ("\"begin\"", "\"main\"")]:
+        for old, new in [("(-1,0,())", "(0,5,())"), ("(-1,0,())", "(7,9,((\"<\",\"f\",3)))"), ("\"begin\"",
+                "\"main\"")]:
             self.assertEqual(held_of(code, text.replace(old, new)), slow_read(text.replace(old, new)))
         for old, new in [("(-1,0,())", "(-1,5,())"), ("(-1,0,())", "(-2,0,())"), ("\"begin\"", "\"over\""), ("N", "T"),
                 ("(0,0)", "(0,99)"), ("N,0", "N,-1")]:

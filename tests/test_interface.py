@@ -101,7 +101,8 @@ INTERFACE = {
     "knowing": {
         "spots": {"code": CODE}, "spot_kinds": {"code": CODE, "spot": ENTRY},
         "kind_reason": {"code": CODE, "spot": ENTRY, "kind": "number"},
-        "is_kind_reason": {"code": CODE, "spot": ENTRY, "kind": "number", "value": [ENTRY]}, "sharpened": {"code": CODE}},
+        "is_kind_reason": {"code": CODE, "spot": ENTRY, "kind": "number", "value": [ENTRY]},
+                "sharpened": {"code": CODE}},
     "hanging": {
         "hangs": {"code": CODE, "spot": ENTRY}, "course_hangs": {"code": CODE},
         "root_chain": {"code": CODE, "root": ("field", 1), "spot": ("array", "n")},
@@ -236,9 +237,12 @@ class TestInterface(Case):
 
 METHODS = {
     Bench: {"go": ["count"], "run": ["count"], "back": ["count"], "mark": ["place"], "unmark": ["place"],
-            "more_main": ["index", "text", "whole"], "more_aside": ["kind", "name", "text", "whole"], "undo": [], "begin": [],
-            "keep": [], "drop": [], "twin": [], "__len__": [], "__iter__": [], "__eq__": ["other"], "end": [], "told": [],
-            "events": [], "held": [], "place": [], "value": ["name"], "entry": ["name", "key"], "output": ["kind", "name"],
+            "more_main": ["index", "text", "whole"], "more_aside": ["kind", "name", "text", "whole"], "undo": [],
+            "begin": [],
+            "keep": [], "drop": [], "twin": [], "__len__": [], "__iter__": [], "__eq__": ["other"], "end": [],
+            "told": [],
+            "events": [], "held": [], "place": [], "value": ["name"], "entry": ["name", "key"], "output": ["kind",
+            "name"],
             "watch": ["name"], "parts_from": ["other"], "__init__": ["program", "world"]},
     TiedBench: {"back": ["count"], "undo": [], "drop": []},
     Console: {"execute": ["command"], "__init__": []},

@@ -31,7 +31,8 @@ class TestLikeness(Case):
         code = code_with((("tick", 0), ("name", "x"), ("jump_if", True, 0), ("tick", 1)) + TAIL)
         for rows, way in [
                 ((("tick", 0), ("name", "x"), ("jump_if", True, 0), ("tick", 1)) + TAIL, None),
-                ((("jump", 1), ("tick", 0), ("name", "x"), ("jump_if", True, 1), ("jump", 6), ("halt",), ("tick", 1)) + TAIL,
+                ((("jump", 1), ("tick", 0), ("name", "x"), ("jump_if", True, 1), ("jump", 6), ("halt",), ("tick",
+                1)) + TAIL,
                  None),
                 ((("tick", 0), ("name", "x"), ("jump_if", True, 4), ("jump", 7), ("tick", 0), ("name", "x"),
                   ("jump_if", True, 0), ("tick", 1)) + TAIL, None),
@@ -39,9 +40,12 @@ class TestLikeness(Case):
                 ((("tick", 0), ("name", "x"), ("jump_if", False, 0), ("tick", 1)) + TAIL, (0, False, (False, False))),
                 ((("tick", 0), ("name", "x"), ("jump_if", True, 4), ("tick", 1), ("tick", 0), ("name", "x"),
                   ("jump_if", True, 0), ("tick", 1)) + TAIL, (0, False, (False, False, False, False))),
-                ((("tick", 0), ("name", "x"), ("jump_if", True, 3), ("tick", 1)) + TAIL, (0, False, (False, False, True))),
-                ((("tick", 0), ("name", "x"), ("jump_if", True, 0), ("tick", 1), END, ("exit", False)), (0, True, (False,))),
-                ((("tick", 0), ("name", "x"), ("jump_if", True, 0), ("halt",)) + TAIL, (0, False, (False, False, False)))]:
+                ((("tick", 0), ("name", "x"), ("jump_if", True, 3), ("tick", 1)) + TAIL, (0, False, (False, False,
+                True))),
+                ((("tick", 0), ("name", "x"), ("jump_if", True, 0), ("tick", 1), END, ("exit", False)), (0, True,
+                (False,))),
+                ((("tick", 0), ("name", "x"), ("jump_if", True, 0), ("halt",)) + TAIL, (0, False, (False, False,
+                False)))]:
             other = code_with(rows)
             self.assertEqual(go_alike(code, other), way is None, rows)
             self.assertEqual(code_parting(code, other), way, rows)
@@ -120,17 +124,20 @@ class TestLikeness(Case):
                 way = tuple(random.random() < 0.3 for _ in range(random.randrange(7)))
                 number, entry = random.randrange(len(code[3]) + 1), random.random() < 0.4
                 self.assertIs(is_code_parting(code, other, (number, entry, way)),
-                              slowlikeness.is_parting(code, other, number, entry, way), (code, other, number, entry, way))
+                              slowlikeness.is_parting(code, other, number, entry, way), (code, other, number, entry,
+                              way))
 
     def test_any_parting(self):
         code = code_with((("tick", 0), ("record", 3), ("tick", 1), ("tick", 2), ("halt",)) + TAIL)
         other = code_with((("tick", 0), ("record", 3), ("tick", 7), ("tick", 8), ("halt",)) + TAIL)
-        for value, wanted in [((0, False, (False, False)), True), ((0, False, (False, True)), True), ((0, False, (False,)), False),
+        for value, wanted in [((0, False, (False, False)), True), ((0, False, (False, True)), True), ((0, False,
+                (False,)), False),
                 ((0, False, (False, False, False)), True), ((0, False, (False, False, False, False)), False),
                 ((0, False, (True,)), False), ((0, True, ()), False), ((1, False, ()), False), ((2, False, ()), False),
                 ((-1, False, ()), False), ((False, False, (False, False)), False), ((0, 0, (False, False)), False),
                 ((0, None, (False, False)), False), ((0, False, [False, False]), False), ((0, False, (0, 0)), False),
-                ((0, False, (False, 0)), False), ((0, False, (False, None)), False), ([0, False, (False, False)], False),
+                ((0, False, (False, 0)), False), ((0, False, (False, None)), False), ([0, False, (False, False)],
+                False),
                 (Row((0, False, (False, False))), False), ((0, False), False), ((0, False, (False, False), 1), False),
                 ((0, False, Row((False, False))), False), ((10 ** 80, False, ()), False), (("0", False, ()), False)]:
             self.assertIs(is_code_parting(code, other, value), wanted, value)
@@ -169,14 +176,17 @@ class TestLeast(Case):
                 ((("jump", 2), ("tick", 9), ("tick", 0), ("jump", 4), ("halt",)) + TAIL,
                  (("tick", 0), ("halt",), END, ("jump", 1))),
                 (TAIL, TAIL),
-                ((END, ("jump", 3), ("tick", 1), ("tick", 2), ("jump", 2)), (END, ("tick", 2), ("tick", 1), ("jump", 1))),
-                ((("tick", 0), ("name", "x"), ("jump_if", True, 6), ("name", "y"), ("set_name", "x"), ("halt",), ("name", "y"),
+                ((END, ("jump", 3), ("tick", 1), ("tick", 2), ("jump", 2)), (END, ("tick", 2), ("tick", 1), ("jump",
+                1))),
+                ((("tick", 0), ("name", "x"), ("jump_if", True, 6), ("name", "y"), ("set_name", "x"), ("halt",),
+                ("name", "y"),
                   ("set_name", "x"), ("exit", False), END, ("exit", False)),
                  (("tick", 0), ("name", "x"), ("jump_if", True, 8), ("name", "y"), ("set_name", "x"), ("halt",), END,
                   ("exit", False), ("name", "y"), ("set_name", "x"), ("exit", False))),
                 ((("tick", 0), ("name", "x"), ("jump_if", True, 6), ("name", "y"), ("drop",), ("halt",), ("name", "y"),
                   ("drop",), ("jump", 10), END, ("halt",)),
-                 (("tick", 0), ("name", "x"), ("jump_if", True, 3), ("name", "y"), ("drop",), ("halt",), END, ("jump", 5))),
+                 (("tick", 0), ("name", "x"), ("jump_if", True, 3), ("name", "y"), ("drop",), ("halt",), END, ("jump",
+                 5))),
                 # What goes alike on unlike stacks stays apart.
                 ((("tick", 0), ("name", "x"), ("jump_if", True, 4), ("halt",), ONE, ("halt",)) + TAIL,
                  (("tick", 0), ("name", "x"), ("jump_if", True, 6), ("halt",), END, ("jump", 3), ONE, ("halt",)))]:
@@ -256,7 +266,8 @@ class TestShortened(Case):
         program = program_of("BEGIN { if (1 < 2) y = 2 * 3; else y = 4; while (!0) { z; break } if (!x) y = 6 }")
         made = shortened(code_of(program))
         six = ("constant", ("number", 6, 1))
-        self.assertEqual(made[3][0][2], (("tick", 1), ("tick", 2), ("tick", 3), six, ("set_name", "y"), ("drop",), ("tick", 5),
+        self.assertEqual(made[3][0][2], (("tick", 1), ("tick", 2), ("tick", 3), six, ("set_name", "y"), ("drop",),
+                ("tick", 5),
                 ("tick", 6), ("tick", 7), ("tick", 8), ("name", "x"), ("jump_if", True, 16), ("tick", 9), six,
                 ("set_name", "y"), ("drop",), END, ("halt",)))
 

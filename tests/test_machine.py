@@ -212,7 +212,8 @@ class TestSteps(Case):
         self.assertEqual((held[3], held[2]), ((), (0, 13)))
 
     def test_going(self):
-        for row, truth, going in [(("jump", 4), None, 4), (("jump_if", True, 4), num(1), 4), (("jump_if", True, 4), num(0), 3),
+        for row, truth, going in [(("jump", 4), None, 4), (("jump_if", True, 4), num(1), 4), (("jump_if", True, 4),
+                num(0), 3),
                 (("jump_if", False, 4), num(0), 4), (("jump_if", False, 4), text("a"), 3),
                 (("jump_if", True, 4), text("0"), 4), (("jump_if", False, 4), ("unset",), 4)]:
             ahead = put(truth) if truth else [("tick", 0)]
@@ -225,11 +226,14 @@ class TestSteps(Case):
 
     def test_calls(self):
         """Calls with fewer arguments, arrays handed on, own tables, and what a return takes away."""
-        inner = ("h", ("array", "value", "array"), (("tick", 6), ("walk", ("local", 0)), ("local", 1), ("array", ("local", 2)),
+        inner = ("h", ("array", "value", "array"), (("tick", 6), ("walk", ("local", 0)), ("local", 1), ("array",
+                ("local", 2)),
                 ("constant", num(5)), ("return",)))
-        outer = ("k", ("array", "array"), (("tick", 4), ("constant", num(9)), ("array", ("local", 1)), ("constant", num(8)),
+        outer = ("k", ("array", "array"), (("tick", 4), ("constant", num(9)), ("array", ("local", 1)), ("constant",
+                num(8)),
                 ("array", ("local", 0)), ("call", "h", 3), ("return",)))
-        code = code_with([("tick", 2)] + put(text("below")) + [("array", A), ("call", "k", 1), ("exit", False)], inner, outer)
+        code = code_with([("tick", 2)] + put(text("below")) + [("array", A), ("call", "k", 1), ("exit", False)], inner,
+                outer)
         held = stepped(code, WORLD, begun(code), 4)[0]
         self.assertEqual(held[1:5], (2, (4, 0), (text("below"),), (("k", (A, ("table", ())), 1, (0, 4, 2)),)))
         self.assertEqual(told(code, held)[2], (("k", (A, ("table", ()))),))
@@ -264,7 +268,8 @@ class TestSteps(Case):
         self.assertEqual(held[:5], (("over", -3), 1, (0, end), (), ()))
         self.assertEqual((held[5][0], end_of(code, WORLD, held)), ("over", ("over", -3)))
         self.assertEqual(step(code, WORLD, held), (held, None))
-        code = (SCALARS, ARRAYS, 2, (("", (), (END, ("tick", 1)) + tuple(put(num(1))) + (("call", "h", 0), ("exit", False))),
+        code = (SCALARS, ARRAYS, 2, (("", (), (END, ("tick", 1)) + tuple(put(num(1))) + (("call", "h", 0), ("exit",
+                False))),
                 function))
         held = stepped(code, WORLD, begun(code), 8)[0]
         self.assertEqual(held[:5], (("over", -3), 1, (0, 0), (), ()))
@@ -308,7 +313,8 @@ class TestRuns(Case):
         for _ in range(150 * MANY):
             code, world = maker.code(random.choice([10, 20, 40])), maker.world()
             for count in [0, 1, 2, random.randrange(3, 30)]:
-                self.assertEqual(outcome(code, world, count), smallmachine.outcome(code, world, count)[0], (code, world))
+                self.assertEqual(outcome(code, world, count), smallmachine.outcome(code, world, count)[0], (code,
+                        world))
 
     def test_walk(self):
         """[M4], whole and step by step."""
@@ -401,7 +407,8 @@ class TestRuns(Case):
             if value != ((), ()):
                 self.raises(InvalidWorld, go, code, value, None, None)
                 self.raises(InvalidWorld, outcome, code, value, None)
-        for action, values in [(begun, ()), (go, (None,) * 3), (outcome, (None, None)), (told, (None,)), (step, (None,) * 2),
+        for action, values in [(begun, ()), (go, (None,) * 3), (outcome, (None, None)), (told, (None,)), (step,
+                (None,) * 2),
                 (end_of, (None,) * 2), (fits, (None,) * 2)]:
             self.raises(UnsoundCode, action, bad, *values)
         self.raises(InvalidHeld, go, code, ((), ()), exchanged(held, (5, 6), (0, 0, ())), 1)

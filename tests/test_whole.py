@@ -23,12 +23,16 @@ SOURCES = [
     "{ n[$1] = n[$1] + $2 } END { for (k in n) print k, n[k] }",
     "$1 > 1 { s += $1 } END { print s; exit s }",
     "BEGIN { FS = \",\"; OFS = \"-\" } NR == 2, /b/ { $1 = $1; print; next } { printf \"@3d|@s\\n\", NR, $0 > \"o\" }",
-    "function f(a, n) { if (n > 2) return n; a[n] = f(a, n + 1) n; return length(a) } { x = f(b, $1); for (k in b) print k, b[k] }",
-    "BEGIN { while ((getline line < \"f\") > 0) { split(line, a, /b+/); print a[1], a[2] } close(\"f\"); getline z < \"f\"; print z }",
+    "function f(a, n) { if (n > 2) return n; a[n] = f(a, n + 1) n; return length(a) }\n"
+    "{ x = f(b, $1); for (k in b) print k, b[k] }",
+    "BEGIN { while ((getline line < \"f\") > 0) { split(line, a, /b+/); print a[1], a[2] } "
+    "close(\"f\"); getline z < \"f\"; print z }",
     "{ gsub(/a/, \"<&>\"); if (match($0, /b+/)) print RSTART, RLENGTH, substr($0, RSTART); else print toupper($0) }",
     "BEGIN { RS = \"\" } { print NR, NF, $NF; \"p\" | getline y; print y | \"q\" } END { print NR; x = 1 / 0 }",
-    "function g(x) { return g(x + 1) } { do { i++; if (i @ 2) continue; if (i > 7) break } while (1); print i; if (i > 8) g(1) }",
-    "{ delete c; c[1, $1]++; if ((1, 2) in c) print \"in\"; for (i = 0; i < 3; i++) x = x i; print x, -1 ^ 2, !x, 1 - 1 \" \" -1 }",
+    "function g(x) { return g(x + 1) } { do { i++; if (i @ 2) continue; if (i > 7) break } "
+    "while (1); print i; if (i > 8) g(1) }",
+    "{ delete c; c[1, $1]++; if ((1, 2) in c) print \"in\"; for (i = 0; i < 3; i++) x = x i; "
+    "print x, -1 ^ 2, !x, 1 - 1 \" \" -1 }",
 ]
 
 
