@@ -170,6 +170,16 @@ class TestFits(Case):
                 ((5, 0), "end", False), ((0,), None, False), ((1,), 77, True), ((0, 1), False, False)]:
             self.assertIs(fits(code, WORLD, exchanged(over, path, worth)), wanted, (path, worth))
 
+    def test_words_of_errors(self):
+        code = code_of(program_of(""))
+        held = begun(code)
+        for word in ["divide", "power", "great", "long", "field", "pattern", "format", "deep"]:
+            for place, wanted in [(0, True), (1, False), (False, False)]:
+                self.assertIs(fits(code, ((), ()), (("error", word, place),) + held[1:]), wanted, word)
+            self.assertIs(fits(code, ((), ()), (("error", Text(word), 0),) + held[1:]), False)
+            self.assertIs(fits(code, ((), ()), (("error", word),) + held[1:]), False)
+            self.assertIs(fits(code, ((), ()), (("error", word, 0, 0),) + held[1:]), False)
+
     def test_own_tables(self):
         """A reference to a table of a call leads to one not later than its holder."""
         code = (SCALARS, ARRAYS, 0, (("", (), (("call", "f", 0), ("halt",), END, ("halt",))),

@@ -71,6 +71,32 @@ class TestLikeness(Case):
         other = code_with((("tick", 0), ("record", 4), ("tick", 1), ("tick", 2), ("tick", 8), ("halt",)) + TAIL)
         self.assertEqual(code_parting(code, other), (0, False, (False, True)))
 
+    def test_what_goes_on_to_what_it_names(self):
+        """A next always does, next_key, record and jump_if may, others never do."""
+        walk, a = ("walk", ("global", "a")), ("global", "a")
+        for rows, other_rows, way in [
+                ((("tick", 0), ("next", 3), ("halt",), ("tick", 1), ("halt",)),
+                 (("tick", 0), ("next", 3), ("halt",), ("tick", 2), ("halt",)), (False, True)),
+                ((("tick", 0), ("next", 3), ("halt",), ("tick", 1), ("halt",)),
+                 (("tick", 0), ("next", 3), ("tick", 7), ("tick", 1), ("halt",)), None),
+                ((walk, ("tick", 0), ("next_key", 5), ("drop",), ("jump", 1), ("tick", 1), ("halt",)),
+                 (walk, ("tick", 0), ("next_key", 5), ("drop",), ("jump", 1), ("tick", 2), ("halt",)), (False, False, True)),
+                ((walk, ("tick", 0), ("next_key", 5), ("drop",), ("jump", 1), ("tick", 1), ("halt",)),
+                 (walk, ("tick", 0), ("next_key", 5), ("not",), ("exit", False), ("tick", 1), ("halt",)),
+                 (False, False, False)),
+                ((("tick", 0), ("record", 3), ("halt",), ("tick", 1), ("halt",)),
+                 (("tick", 0), ("record", 3), ("halt",), ("tick", 2), ("halt",)), (False, True)),
+                ((("tick", 0), ("size", a), ("jump_if", True, 4), ("halt",), ("tick", 1), ("halt",)),
+                 (("tick", 0), ("size", a), ("jump_if", True, 4), ("halt",), ("tick", 2), ("halt",)),
+                 (False, False, True))]:
+            code, other = code_with(rows + TAIL), code_with(other_rows + TAIL)
+            self.assertEqual(code_parting(code, other), None if way is None else (0, False, way), rows)
+            self.assertIs(go_alike(code, other), way is None)
+            if way is not None:
+                self.assertIs(is_code_parting(code, other, (0, False, way)), True)
+                self.assertIs(is_code_parting(code, other, (0, False, way[:-1] + (not way[-1],))), False)
+                self.assertIs(is_code_parting(code, other, (0, False, (True,) + way[1:])), False)
+
     def test_unlike_heads(self):
         code = code_with((("tick", 0), ("halt",)) + TAIL)
         for path, worth in [((0,), tuple(sorted(SCALARS + ("z",)))), ((1,), ("a",)), ((2,), 2), ((3, 1, 0), "g"),
