@@ -105,6 +105,9 @@ TRIMS = [
     ([("name", "x"), ("not",), ("name", "y"), ("jump_if", True, 4), ("jump_if", True, 6), ("tick", 1), ("tick", 2)],
             None),
     # What is named and left out hands its name on.
+    ([("name", "y"), ("name", "x"), ("jump_if", True, 5), ("drop",), ("name", "x"), con(1), ("drop",), ("drop",),
+            ("tick", 1)],
+     [("name", "y"), ("name", "x"), ("jump_if", True, 5), ("drop",), ("name", "x"), ("drop",), ("tick", 1)]),
     ([("tick", 0), ("name", "x"), ("jump_if", True, 4), ("tick", 1), con(1), ("drop",), ("tick", 2)],
      [("tick", 0), ("name", "x"), ("jump_if", True, 4), ("tick", 1), ("tick", 2)]),
 ]
