@@ -10,15 +10,12 @@ from patterndeeds.signs import SPECIALS
 from patterndeeds.spreading import Spreading, is_chain
 
 KINDS = ("number", "seen", "text", "unset")
-NUMBER = ("number",)
-TEXT = ("text",)
-# The kinds of the things that instructions give, if they are no copies.
-GIVEN_KINDS = {
-    "op": (NUMBER,), "minus": (NUMBER,), "plus": (NUMBER,), "not": (NUMBER,), "compare": (NUMBER,),
-    "compare_as": (NUMBER,), "match": (NUMBER,), "range": (NUMBER,), "is_in": (NUMBER,), "size": (NUMBER,),
-    "close": (NUMBER,), "split": (NUMBER,), "key": (TEXT,), "join": (TEXT,), "next_key": (TEXT,),
-    "substitute": (TEXT, NUMBER), "field": (("seen", "unset"),),
-}
+# The instructions that give a number, a text, and nothing else that is no copy.
+NUMBER_GIVERS = (
+    "op", "minus", "plus", "not", "compare", "compare_as", "match", "range", "is_in", "size", "close", "split",
+)
+TEXT_GIVERS = ("key", "join", "next_key")
+# The built-in words that give a number.
 NUMBER_WORDS = ("length", "index", "int", "match")
 
 
@@ -83,13 +80,19 @@ class Knowledge:
 def given_kinds(row):
     """The kinds of the things that an instruction gives, as far as they are no copies."""
     word = row[0]
+    if word in NUMBER_GIVERS or word == "built" and row[1] in NUMBER_WORDS or word == "read" and row[2] == "record":
+        return (("number",),)
+    if word in TEXT_GIVERS or word == "built":
+        return (("text",),)
     if word == "constant":
         return ((row[1][0],),)
-    if word == "built":
-        return (NUMBER,) if row[1] in NUMBER_WORDS else (TEXT,)
     if word == "read":
-        return (NUMBER,) if row[2] == "record" else (("seen", "unset"), NUMBER)
-    return GIVEN_KINDS.get(word, ())
+        return (("seen", "unset"), ("number",))
+    if word == "field":
+        return (("seen", "unset"),)
+    if word == "substitute":
+        return (("text",), ("number",))
+    return ()
 
 
 def spots_of(code, shapes):
