@@ -110,8 +110,12 @@ def trim_two(found):
     return None
 
 
-FOLDING = ((2, fold_one), (3, fold_two))
-TRIMMING = ((2, trim_two),)
+# The rules of the passes, as rewriting has them.
+FOLDING = (
+    (2, ("jump_if", "minus", "plus", "not", "key", "built"), fold_one),
+    (3, ("op", "compare", "join", "match"), fold_two),
+)
+TRIMMING = ((2, ("drop", "turn", "jump_if"), trim_two),)
 
 
 def folded_rows(body):

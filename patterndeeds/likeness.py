@@ -163,6 +163,10 @@ def last_row(code, number, entry, way):
 
 def least_code(code):
     """The least code of a code."""
-    shapes = checked_shapes(code)
+    return with_least_rows(code, checked_shapes(code))
+
+
+def with_least_rows(code, shapes):
+    """The least code of a sound code with these shapes."""
     bodies = [body[:2] + (laid_out(body, own),) for body, own in zip(code[3], shapes)]
     return code[:3] + (tuple(bodies),)

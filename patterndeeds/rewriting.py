@@ -84,28 +84,32 @@ class Peephole:
             self.left.append(first)
 
     def go_over(self, rules):
-        """Goes over all rows, and lets the rules, tuples of a number of rows and a function, exchange them.
+        """Goes over all rows, and lets the rules exchange them; the rows that are left.
 
-        A rule is asked with so many instructions; it returns None, or a tuple of the instruction that
-        stands for them, or of None for no instruction. The rows behind it all.
+        A rule is a tuple of a number of rows, of the words of the last one of them, and of a function that
+        is asked with so many instructions; it returns None, or a tuple of the instruction that stands for
+        them, or of None for no instruction.
         """
         for at in range(len(self.rows)):
-            self.landed[at] = self.landed[at] or self.carried
-            self.carried = False
+            if self.carried:
+                self.landed[at] = True
+                self.carried = False
             self.left.append(at)
-            while self.applies(rules):
+            while self.left and self.applies(rules):
                 pass
         return without_gaps(self.rows)
 
     def applies(self, rules):
         """Whether a rule exchanged the last rows."""
-        for many, rule in rules:
-            found = self.straight(many)
-            if found is not None:
-                made = rule(found)
-                if made is not None:
-                    self.exchange(many, made[0])
-                    return True
+        word = self.rows[self.left[-1]][0]
+        for many, words, rule in rules:
+            if word in words:
+                found = self.straight(many)
+                if found is not None:
+                    made = rule(found)
+                    if made is not None:
+                        self.exchange(many, made[0])
+                        return True
         return False
 
 
