@@ -1,7 +1,7 @@
 """Folding: passes that work out constants and leave out what does nothing."""
 
 from patterndeeds.checker import checked_shapes
-from patterndeeds.effects import named_row, with_named
+from patterndeeds.effects import NAMED, named_row, with_named
 from patterndeeds.errors import RunError
 from patterndeeds.instructions import HOLDING
 from patterndeeds.matching import holds
@@ -137,13 +137,7 @@ def trimmed_rows(body):
 
 def with_goals(rows):
     """Rows, all reached, in which those that name a jump name its goal instead."""
-    found = []
-    for row in rows:
-        named = named_row(row)
-        if named is not None:
-            row = with_named(row, goal_of(rows, named))
-        found.append(row)
-    return tuple(found)
+    return tuple([with_named(row, goal_of(rows, named_row(row))) if row[0] in NAMED else row for row in rows])
 
 
 def goal_of(rows, at):

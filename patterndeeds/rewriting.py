@@ -1,6 +1,6 @@
 """Rewriting codes: rows are left out or exchanged, and those that are named move along."""
 
-from patterndeeds.effects import entries_of, followers, named_row, with_named
+from patterndeeds.effects import NAMED, entries_of, followers, named_row, with_named
 
 
 def rewritten(code, rewrite):
@@ -19,11 +19,15 @@ def reached_rows(body):
             if at not in reached:
                 reached[at] = True
                 waiting.append(at)
+    if len(reached) == len(rows):
+        return rows
     return without_gaps([row if at in reached else None for at, row in enumerate(rows)])
 
 
 def without_gaps(rows):
     """The instructions of some rows without those that are None; who named one of these names the next one."""
+    if None not in rows:
+        return tuple(rows)
     moved = []
     number = 0
     for row in rows:
@@ -31,7 +35,7 @@ def without_gaps(rows):
         if row is not None:
             number += 1
     left = [row for row in rows if row is not None]
-    return tuple([row if named_row(row) is None else with_named(row, moved[named_row(row)]) for row in left])
+    return tuple([with_named(row, moved[named_row(row)]) if row[0] in NAMED else row for row in left])
 
 
 def landed_rows(body):
@@ -40,9 +44,8 @@ def landed_rows(body):
     for at in entries_of(body):
         landed[at] = True
     for row in body[2]:
-        named = named_row(row)
-        if named is not None:
-            landed[named] = True
+        if row[0] in NAMED:
+            landed[named_row(row)] = True
     return landed
 
 
