@@ -98,6 +98,22 @@ class TestLikeness(Case):
                 self.assertIs(is_code_parting(code, other, (0, False, way[:-1] + (not way[-1],))), False)
                 self.assertIs(is_code_parting(code, other, (0, False, (True,) + way[1:])), False)
 
+    def test_ways_as_long_as_each_other(self):
+        """The least way comes first, wherever the others part."""
+        rows = [("tick", 0), ("range", 0), ("jump_if", True, 9), ("range", 0), ("jump_if", True, 7), ("tick", 1),
+                ("halt",),
+                ("tick", 2), ("halt",), ("range", 0), ("jump_if", True, 13), ("tick", 3), ("halt",), ("tick", 4),
+                ("halt",)]
+        code = code_with(tuple(rows) + TAIL)
+        ways = {5: (False, False, False, False, False), 7: (False, False, False, False, True),
+                11: (False, False, True, False, False), 13: (False, False, True, False, True)}
+        for chosen in [(7, 11), (11, 13), (5, 13), (7, 13), (5, 7, 11, 13), (13,), (7, 11, 13)]:
+            made = [("tick", 9) if at in chosen else row for at, row in enumerate(rows)]
+            other = code_with(tuple(made) + TAIL)
+            self.assertEqual(code_parting(code, other), (0, False, ways[chosen[0]]), chosen)
+            self.assertEqual([at for at, way in ways.items() if is_code_parting(code, other, (0, False, way))],
+                    list(chosen))
+
     def test_unlike_heads(self):
         code = code_with((("tick", 0), ("halt",)) + TAIL)
         for path, worth in [((0,), tuple(sorted(SCALARS + ("z",)))), ((1,), ("a",)), ((2,), 2), ((3, 1, 0), "g"),
