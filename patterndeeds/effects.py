@@ -3,24 +3,26 @@
 Stacks are tuples of the words "value", "array" and "walk".
 """
 
-# How many things an instruction takes, if that is always the same.
+# How many values an instruction takes and gives, if it names no row and nothing else has to be known.
+PLAIN = {
+    "constant": (0, 1), "name": (0, 1), "local": (0, 1), "range": (0, 1), "size": (0, 1), "field": (1, 1),
+    "element": (1, 1), "is_in": (1, 1), "minus": (1, 1), "plus": (1, 1), "not": (1, 1), "close": (1, 1),
+    "set_name": (1, 1), "set_local": (1, 1), "set_field": (2, 1), "set_element": (2, 1), "copy": (1, 2), "op": (2, 1),
+    "compare": (2, 1), "compare_as": (2, 1), "join": (2, 1), "match": (2, 1), "substitute": (3, 2), "tick": (0, 0),
+    "set_range": (0, 0), "clear": (0, 0), "delete": (1, 0), "phase": (0, 0),
+}
+VALUES = ((), ("value",), ("value", "value"), ("value", "value", "value"))
+# How many things other instructions take, if that is always the same.
 TAKES = {
-    "constant": 0, "name": 0, "local": 0, "range": 0, "field": 1, "element": 1, "is_in": 1, "minus": 1, "plus": 1,
-    "not": 1, "close": 1, "size": 0, "array": 0, "set_name": 1, "set_local": 1, "set_field": 2, "set_element": 2,
-    "drop": 1, "copy": 1, "op": 2, "compare": 2, "compare_as": 2, "join": 2, "match": 2, "substitute": 3, "tick": 0,
-    "set_range": 0, "clear": 0, "delete": 1, "jump": 0, "jump_if": 1, "walk": 0, "next_key": 1, "return": 1,
-    "record": 0, "next": 0, "phase": 0, "halt": 0,
+    "array": 0, "drop": 1, "jump": 0, "jump_if": 1, "walk": 0, "next_key": 1, "return": 1, "record": 0, "next": 0,
+    "halt": 0,
 }
 # Where an instruction tells how many things it takes.
 COUNTED = {"key": 1, "turn": 1, "built": 2, "split": 2, "print": 1, "printf": 1, "call": 2}
 # These take a name, too, unless they write to the output without a name.
 WRITING = ("print", "printf")
-# How many values an instruction gives, if not one.
-GIVES = {
-    "array": 0, "drop": 0, "copy": 2, "substitute": 2, "print": 0, "printf": 0, "tick": 0, "set_range": 0, "clear": 0,
-    "delete": 0, "jump": 0, "jump_if": 0, "walk": 0, "next_key": 1, "return": 0, "exit": 0, "record": 0, "next": 0,
-    "phase": 0, "halt": 0,
-}
+# These give one value, whatever they take.
+GIVING_ONE = ("key", "built", "split", "call", "next_key")
 # Where an instruction names a row.
 NAMED = {"jump": 1, "jump_if": 2, "next_key": 1, "record": 1, "next": 1}
 # Behind these the next row does not follow.
@@ -32,6 +34,8 @@ PHASE_END = ("phase", "end")
 def many_taken(row):
     """How many things an instruction takes."""
     word = row[0]
+    if word in PLAIN:
+        return PLAIN[word][0]
     if word in TAKES:
         return TAKES[word]
     if word == "read":
@@ -47,11 +51,15 @@ def many_taken(row):
 def many_given(row):
     """How many values an instruction gives; one that names a row, where it does not go there."""
     word = row[0]
+    if word in PLAIN:
+        return PLAIN[word][1]
+    if word in GIVING_ONE:
+        return 1
     if word == "turn":
         return row[1]
     if word == "read":
         return 2 if row[2] == "value" else 1
-    return GIVES.get(word, 1)
+    return 0
 
 
 def has_taken(stack, row, heads):
@@ -114,6 +122,21 @@ def followers(rows, at):
     if row[0] in GOING:
         return [(named, True)]
     return [(at + 1, False), (named, True)]
+
+
+def stacks_behind(rows, at, stack, heads):
+    """The followers of a row, each with the stack there; None if the row lacks something."""
+    row = rows[at]
+    if row[0] not in PLAIN:
+        if not has_taken(stack, row, heads):
+            return None
+        return [(following, stack_behind(stack, row, goes)) for following, goes in followers(rows, at)]
+    taken, given = PLAIN[row[0]]
+    if taken > 0:
+        if stack[-taken:] != VALUES[taken]:
+            return None
+        stack = stack[:-taken]
+    return [(at + 1, stack + VALUES[given])]
 
 
 def entries_of(body):

@@ -1,6 +1,6 @@
 """Following the ways of a body: the shapes of its rows, or a fault."""
 
-from patterndeeds.effects import entries_of, followers, has_taken, stack_behind
+from patterndeeds.effects import entries_of, followers, stacks_behind
 
 
 class Following:
@@ -37,22 +37,20 @@ class Following:
 
     def rows_behind(self, at):
         """The rows that are met for the first time behind a row."""
-        row = self.rows[at]
-        stack = self.shapes[at]
-        if not has_taken(stack, row, self.heads):
+        behind = stacks_behind(self.rows, at, self.shapes[at], self.heads)
+        if behind is None:
             self.fault = ("lacks", [self.way_to(at)])
             return []
         found = []
-        for following, goes in followers(self.rows, at):
-            behind = stack_behind(stack, row, goes)
+        for following, stack in behind:
             if following == len(self.rows):
                 self.fault = ("falls", [self.way_to(at) + [following]])
                 return []
             if self.shapes[following] is None:
-                self.shapes[following] = behind
+                self.shapes[following] = stack
                 self.before[following] = at
                 found.append(following)
-            elif self.shapes[following] != behind:
+            elif self.shapes[following] != stack:
                 self.fault = ("unlike", [self.way_to(following), self.way_to(at) + [following]])
                 return []
             if following <= at and self.rows[following][0] != "tick":
