@@ -1,9 +1,9 @@
 """The checker: what is wrong with a code, and the shapes of a sound one."""
 
 from patterndeeds.codes import is_code
-from patterndeeds.effects import entries_of, followers, has_taken, heads_of, stack_behind
+from patterndeeds.effects import entries_of, heads_of, stacks_behind
 from patterndeeds.errors import InvalidCode, UnsoundCode
-from patterndeeds.following import Following
+from patterndeeds.following import Following, Lengths, quick_shapes
 
 WAY_NUMBERS = {"lacks": 1, "unlike": 2, "falls": 1, "tickless": 1}
 
@@ -11,9 +11,11 @@ WAY_NUMBERS = {"lacks": 1, "unlike": 2, "falls": 1, "tickless": 1}
 def code_fault(code):
     """A code fault; None if the code is sound."""
     check_code(code)
-    for number, following in enumerate(followings(code)):
-        if following.fault is not None:
-            kind, ways = following.fault
+    heads = heads_of(code)
+    for number, body in enumerate(code[3]):
+        fault = Following(body, heads).fault
+        if fault is not None:
+            kind, ways = fault
             return (kind, number, ways)
     return None
 
@@ -24,21 +26,6 @@ def check_code(code):
         raise InvalidCode("the value is no code")
 
 
-def followings(code):
-    """The followed ways of each body of a code."""
-    heads = heads_of(code)
-    return [Following(body, heads) for body in code[3]]
-
-
-def sound_followings(code):
-    """The followed ways of each body of a code; raises UnsoundCode if it is not sound."""
-    rows = followings(code)
-    for following in rows:
-        if following.fault is not None:
-            raise UnsoundCode("the code is not sound")
-    return rows
-
-
 def checked_shapes(code):
     """The shapes of any value that is a sound code; raises InvalidCode, UnsoundCode."""
     check_code(code)
@@ -47,7 +34,14 @@ def checked_shapes(code):
 
 def sound_shapes(code):
     """The shapes of a code; raises UnsoundCode if it is not sound."""
-    return [following.shapes for following in sound_followings(code)]
+    heads = heads_of(code)
+    found = []
+    for body in code[3]:
+        ways = quick_shapes(body, heads)
+        if ways is None or ways[1] and Lengths(body[2], ways[0]).ring is not None:
+            raise UnsoundCode("the code is not sound")
+        found.append(ways[0])
+    return found
 
 
 def shapes(code):
@@ -57,10 +51,10 @@ def shapes(code):
 
 def step_bound(code):
     """The greatest number of rows in a row of followers of which none but perhaps the first is a tick."""
-    check_code(code)
     greatest = 0
-    for following in sound_followings(code):
-        greatest = max([greatest] + [length for length in following.lengths() if length is not None])
+    for number, shapes_here in enumerate(checked_shapes(code)):
+        lengths = Lengths(code[3][number][2], shapes_here).lengths
+        greatest = max([greatest] + [length for length in lengths if length is not None])
     return greatest
 
 
@@ -96,12 +90,13 @@ def stack_of_way(body, way, heads):
     rows = body[2]
     stack = ()
     for at, following in zip(way, way[1:]):
-        if at == len(rows) or not has_taken(stack, rows[at], heads):
+        if at == len(rows):
             return None
-        going = [goes for one, goes in followers(rows, at) if one == following]
-        if not going:
+        behind = stacks_behind(rows, at, stack, heads)
+        going = [] if behind is None else [one for one in behind if one[0] == following]
+        if going == []:
             return None
-        stack = stack_behind(stack, rows[at], going[0])
+        stack = going[0][1]
     return stack
 
 
@@ -113,7 +108,7 @@ def shows_fault(kind, rows, ways, stacks, heads):
     if last == len(rows):
         return False
     if kind == "lacks":
-        return not has_taken(stacks[0], rows[last], heads)
+        return stacks_behind(rows, last, stacks[0], heads) is None
     if kind == "unlike":
         return ways[1][-1] == last and stacks[0] != stacks[1]
     way = ways[0][:-1]

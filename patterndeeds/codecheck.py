@@ -1,40 +1,27 @@
 """Which values are codes: their heads, their bodies and each instruction."""
 
+from patterndeeds.effects import PHASE_END
 from patterndeeds.signs import SPECIALS, is_name
 from patterndeeds.survey import ARGUMENTS
 from patterndeeds.values import is_value
 
 PARAM_KINDS = ("value", "array")
 MOST_TURNED = 6
-# What each instruction has behind its word.
-SHAPES = {
-    "constant": ("constant",), "name": ("scalar",), "local": ("value_param",), "range": ("range",), "field": (),
-    "element": ("array",), "is_in": ("array",), "minus": (), "plus": (), "not": (), "close": (),
-    "key": ("some",), "size": ("array",), "array": ("array",), "set_name": ("scalar",),
-    "set_local": ("value_param",), "set_field": (), "set_element": ("array",), "drop": (), "copy": (),
-    "turn": ("turned",), "op": ("operator",), "compare": ("comparer",), "compare_as": ("how", "comparer"),
-    "join": (), "match": (), "built": ("built_word", "some"), "split": ("array", "one_or_two"),
-    "substitute": ("truth",), "print": ("some", "write_kind"), "printf": ("some", "write_kind"),
-    "read": ("read_kind", "into"), "tick": ("place",), "set_range": ("range", "truth"), "clear": ("array",),
-    "delete": ("array",), "jump": ("row",), "jump_if": ("truth", "row"), "walk": ("array",),
-    "next_key": ("other_row",), "call": ("function", "place"), "return": (), "exit": ("truth",),
-    "record": ("row",), "next": ("row",), "phase": ("phase",), "halt": (),
-}
-# The words that may stand in each role for words.
-WORDS = {
-    "operator": ("+", "-", "*", "/", "@", "^"), "comparer": ("<", "<=", "==", "!=", ">", ">="),
-    "how": ("number", "text"), "phase": ("main", "end"), "into": ("record", "value"),
-    "write_kind": ("", ">", ">>", "|"), "read_kind": ("main", "<", "|"),
-    "built_word": ("length", "index", "substr", "tolower", "toupper", "int", "sprintf", "match"),
-}
-MAIN_ALONE = ("record", "next", "phase", "halt")
+OPERATORS = ("+", "-", "*", "/", "@", "^")
+COMPARERS = ("<", "<=", "==", "!=", ">", ">=")
+WAYS_TO_COMPARE = ("number", "text")
+PHASE_WORDS = ("main", "end")
+PLACES_TO_READ = ("record", "value")
+WRITE_KINDS = ("", ">", ">>", "|")
+READ_KINDS = ("main", "<", "|")
+BUILT_WORDS = ("length", "index", "substr", "tolower", "toupper", "int", "sprintf", "match")
 
 
 class Scope:
     """What the instructions of a body may name.
 
-    heads has the kinds of the parameters of each function; many is the number of the rows; next_at the
-    number of the row behind the instruction that is looked at.
+    heads has the kinds of the parameters of each body; many is the number of the rows; next_at the number
+    of the row behind the instruction that is looked at.
     """
 
     def __init__(self, scalars, arrays, ranges, heads):
@@ -42,146 +29,258 @@ class Scope:
         self.arrays = arrays
         self.ranges = ranges
         self.heads = heads
+        self.in_main = False
         self.params = ()
         self.many = 0
         self.next_at = 0
 
 
-def is_sound_part(role, value, scope):
-    """Whether any value may stand in an instruction in a role."""
-    if role in WORDS:
-        return type(value) is str and value in WORDS[role]
-    if role == "truth":
-        return type(value) is bool
-    if role == "constant":
-        return is_value(value) and value[0] != "seen"
-    if role == "scalar":
-        return type(value) is str and value in scope.scalars
-    if role == "function":
-        return type(value) is str and value in scope.heads
-    if role == "array":
-        return is_array_place(value, scope)
-    return type(value) is int and is_fitting_number(role, value, scope)
+def is_word(value, words):
+    """Whether any value is one of some words."""
+    return type(value) is str and value in words
+
+
+def is_constant(value, _):
+    """Whether any value may stand in a constant."""
+    return is_value(value) and value[0] != "seen"
+
+
+def is_scalar(value, scope):
+    """Whether any value is the name of a scalar."""
+    return type(value) is str and value in scope.scalars
 
 
 def is_array_place(value, scope):
     """Whether any value is an array place of a body."""
-    if type(value) is not tuple or len(value) != 2 or type(value[0]) is not str:
+    if type(value) is not tuple or len(value) != 2:
         return False
-    if value[0] == "global":
-        return type(value[1]) is str and value[1] in scope.arrays
-    return value[0] == "local" and type(value[1]) is int and has_param(scope, value[1], "array")
-
-
-def has_param(scope, number, kind):
-    """Whether the parameter with this number is of this kind."""
-    return 0 <= number < len(scope.params) and scope.params[number] == kind
-
-
-def is_fitting_number(role, number, scope):
-    """Whether an integer may stand in an instruction in a role."""
-    if role == "value_param":
-        return has_param(scope, number, "value")
-    if role == "range":
-        return 0 <= number < scope.ranges
-    if role == "some":
-        return number >= 1
-    if role == "place":
-        return number >= 0
-    if role == "turned":
-        return 2 <= number <= MOST_TURNED
-    if role == "one_or_two":
-        return 1 <= number <= 2
-    if role == "other_row" and number == scope.next_at:
+    how, which = value
+    if type(how) is not str:
         return False
-    return 0 <= number < scope.many
+    if how == "global":
+        return type(which) is str and which in scope.arrays
+    return how == "local" and is_param(which, scope, "array")
 
 
-def is_instruction(value, scope):
-    """Whether any value is an instruction that may stand in a body."""
-    if type(value) is not tuple or len(value) == 0 or type(value[0]) is not str or value[0] not in SHAPES:
+def is_param(value, scope, kind):
+    """Whether any value is the number of a parameter of this kind."""
+    return type(value) is int and 0 <= value < len(scope.params) and scope.params[value] == kind
+
+
+def is_value_param(value, scope):
+    """Whether any value is the number of a parameter that is a value."""
+    return is_param(value, scope, "value")
+
+
+def is_range(value, scope):
+    """Whether any value is the number of a range bit."""
+    return type(value) is int and 0 <= value < scope.ranges
+
+
+def is_place(value, _):
+    """Whether any value is an integer from 0 on."""
+    return type(value) is int and value >= 0
+
+
+def is_many(value, _):
+    """Whether any value is an integer from 1 on."""
+    return type(value) is int and value >= 1
+
+
+def is_turned(value, _):
+    """Whether any value tells how many things may be turned."""
+    return type(value) is int and 2 <= value <= MOST_TURNED
+
+
+def is_truth(value, _):
+    """Whether any value is a truth."""
+    return type(value) is bool
+
+
+def is_operator(value, _):
+    """Whether any value is an operator."""
+    return is_word(value, OPERATORS)
+
+
+def is_comparer(value, _):
+    """Whether any value is the sign of a comparison."""
+    return is_word(value, COMPARERS)
+
+
+def is_row(value, scope):
+    """Whether any value is the number of a row."""
+    return type(value) is int and 0 <= value < scope.many
+
+
+def is_other_row(value, scope):
+    """Whether any value is the number of a row that is not the next one."""
+    return is_row(value, scope) and value != scope.next_at
+
+
+def is_row_of_main(value, scope):
+    """Whether any value is the number of a row, in the main alone."""
+    return is_row(value, scope) and scope.in_main
+
+
+def is_phase(value, scope):
+    """Whether any value is the word of a phase, in the main alone."""
+    return is_word(value, PHASE_WORDS) and scope.in_main
+
+
+def is_compare_as(row, _):
+    """Whether the parts of a compare_as are right."""
+    return is_word(row[1], WAYS_TO_COMPARE) and is_word(row[2], COMPARERS)
+
+
+def is_built(row, _):
+    """Whether the parts of a built are right."""
+    if not is_word(row[1], BUILT_WORDS) or type(row[2]) is not int:
         return False
-    word = value[0]
-    roles = SHAPES[word]
-    if len(value) != len(roles) + 1:
+    fewest, most = ARGUMENTS[row[1]]
+    return max(fewest, 1) <= row[2] and (most is None or row[2] <= most)
+
+
+def is_split(row, scope):
+    """Whether the parts of a split are right."""
+    return is_array_place(row[1], scope) and type(row[2]) is int and 1 <= row[2] <= 2
+
+
+def is_writing(row, scope):
+    """Whether the parts of a print or printf are right."""
+    return is_many(row[1], scope) and is_word(row[2], WRITE_KINDS)
+
+
+def is_read(row, _):
+    """Whether the parts of a read are right."""
+    return is_word(row[1], READ_KINDS) and is_word(row[2], PLACES_TO_READ)
+
+
+def is_set_range(row, scope):
+    """Whether the parts of a set_range are right."""
+    return is_range(row[1], scope) and type(row[2]) is bool
+
+
+def is_jump_if(row, scope):
+    """Whether the parts of a jump_if are right."""
+    return type(row[1]) is bool and is_row(row[2], scope)
+
+
+def is_call(row, scope):
+    """Whether the parts of a call are right."""
+    if type(row[1]) is not str or row[1] == "" or row[1] not in scope.heads:
         return False
-    for role, part in zip(roles, value[1:]):
-        if not is_sound_part(role, part, scope):
-            return False
-    if word == "built":
-        return is_argument_number(value[1], value[2])
-    if word == "call":
-        return value[2] <= len(scope.heads[value[1]])
-    return True
+    return type(row[2]) is int and 0 <= row[2] <= len(scope.heads[row[1]])
 
 
-def is_argument_number(word, number):
-    """Whether a built-in word may have so many arguments in a code."""
-    fewest, most = ARGUMENTS[word]
-    return fewest <= number and (most is None or number <= most)
-
-
-def are_ascending_names(value):
-    """Whether any value is an ascending tuple of names."""
-    if type(value) is not tuple:
-        return False
-    for name in value:
-        if not is_name(name):
-            return False
-    for name, other in zip(value, value[1:]):
-        if name >= other:
-            return False
-    return True
-
-
-def are_heads(scalars, arrays, ranges):
-    """Whether any values are the names and the number of range bits of a code."""
-    if not are_ascending_names(scalars) or not are_ascending_names(arrays):
-        return False
-    if type(ranges) is not int or ranges < 0:
-        return False
-    for name in SPECIALS:
-        if name not in scalars or name in arrays:
-            return False
-    return True
-
-
-def is_body(value):
-    """Whether any value looks like a body, whatever its instructions are."""
-    if type(value) is not tuple or len(value) != 3 or type(value[0]) is not str or type(value[1]) is not tuple:
-        return False
-    for kind in value[1]:
-        if type(kind) is not str or kind not in PARAM_KINDS:
-            return False
-    return type(value[2]) is tuple and len(value[2]) > 0
-
-
-def are_bodies(value):
-    """Whether any value looks like a row of bodies, the main first, with unlike names."""
-    if type(value) is not tuple or len(value) == 0:
-        return False
-    names = {}
-    for body in value:
-        if not is_body(body) or body[0] in names:
-            return False
-        names[body[0]] = True
-        if body[0] == "":
-            if body[1] != ():
-                return False
-        elif len(names) == 1 or not is_name(body[0]):
-            return False
-    return True
+# The instructions without parts that may stand in each body; halt and return stand in some alone.
+ALONE = {
+    "field": True, "minus": True, "plus": True, "not": True, "close": True, "set_field": True, "drop": True,
+    "copy": True, "join": True, "match": True,
+}
+# What is asked of the part of an instruction that has one.
+PARTS = {
+    "constant": is_constant, "name": is_scalar, "local": is_value_param, "range": is_range,
+    "element": is_array_place, "is_in": is_array_place, "key": is_many, "size": is_array_place,
+    "array": is_array_place, "set_name": is_scalar, "set_local": is_value_param, "set_element": is_array_place,
+    "turn": is_turned, "op": is_operator, "compare": is_comparer, "substitute": is_truth, "tick": is_place,
+    "clear": is_array_place, "delete": is_array_place, "jump": is_row, "walk": is_array_place,
+    "next_key": is_other_row, "exit": is_truth, "record": is_row_of_main, "next": is_row_of_main,
+    "phase": is_phase,
+}
+# What is asked of an instruction that has two parts; no other one has more.
+ROWS = {
+    "compare_as": is_compare_as, "built": is_built, "split": is_split, "print": is_writing, "printf": is_writing,
+    "read": is_read, "set_range": is_set_range, "jump_if": is_jump_if, "call": is_call,
+}
 
 
 def are_instructions(body, scope):
     """Whether the rows of what looks like a body are instructions that may stand in it."""
     name, params, rows = body
+    ending = "halt" if name == "" else "return"
+    scope.in_main = name == ""
     scope.params = params
     scope.many = len(rows)
     for at, row in enumerate(rows):
-        scope.next_at = at + 1
-        if not is_instruction(row, scope):
+        if type(row) is not tuple:
             return False
-        if name == "" and row[0] == "return" or name != "" and row[0] in MAIN_ALONE:
+        many = len(row)
+        if many == 2:
+            word, part = row
+            if type(word) is not str or word not in PARTS:
+                return False
+            scope.next_at = at + 1
+            fits_part = PARTS[word]
+            if not fits_part(part, scope):
+                return False
+        elif many == 1:
+            word = row[0]
+            if type(word) is not str or word not in ALONE and word != ending:
+                return False
+        else:
+            if many != 3 or type(row[0]) is not str or row[0] not in ROWS:
+                return False
+            fits_row = ROWS[row[0]]
+            if not fits_row(row, scope):
+                return False
+    return name != "" or rows.count(PHASE_END) == 1
+
+
+def scope_of(code):
+    """What the instructions of a value of four parts may name; None if it has no names, range bits or bodies."""
+    scalars, arrays, ranges, bodies = code
+    heads = heads_in(bodies)
+    own_scalars = names_in(scalars)
+    own_arrays = names_in(arrays)
+    if heads is None or own_scalars is None or own_arrays is None or type(ranges) is not int or ranges < 0:
+        return None
+    if list(own_scalars.values()).count(True) < len(SPECIALS) or list(own_arrays.values()).count(True) > 0:
+        return None
+    return Scope(own_scalars, own_arrays, ranges, heads)
+
+
+def names_in(value):
+    """What any value has as names, by each whether it is special; None if it is no ascending tuple of names."""
+    if type(value) is not tuple:
+        return None
+    found = {}
+    ahead = ""
+    for name in value:
+        if type(name) is not str or name <= ahead:
+            return None
+        special = name in SPECIALS
+        if not special and not is_name(name):
+            return None
+        found[name] = special
+        ahead = name
+    return found
+
+
+def heads_in(value):
+    """The params of each body, by its name, of what looks like a row of bodies, the main first; else None."""
+    if type(value) is not tuple or len(value) == 0:
+        return None
+    heads = {}
+    for body in value:
+        if type(body) is not tuple or len(body) != 3 or type(body[2]) is not tuple or len(body[2]) == 0:
+            return None
+        name, params, _ = body
+        if type(name) is not str or name in heads or not are_kinds(params):
+            return None
+        if len(heads) == 0:
+            if name != "" or params != ():
+                return None
+        elif not is_name(name):
+            return None
+        heads[name] = params
+    return heads
+
+
+def are_kinds(value):
+    """Whether any value is a tuple of the kinds of parameters."""
+    if type(value) is not tuple:
+        return False
+    for kind in value:
+        if type(kind) is not str or kind not in PARAM_KINDS:
             return False
-    return name != "" or rows.count(("phase", "end")) == 1
+    return True

@@ -51,7 +51,7 @@ def write_out(run, kind, name, text):
     if kind == ">>":
         key = (">", name)
     if key not in run.outputs:
-        run.outputs[key] = Output(key[0], name)
+        run.outputs[key] = Output(key[0], name, "", True)
     output = run.outputs[key]
     if not output.is_open:
         output.is_open = True

@@ -109,7 +109,7 @@ class Chart:
             seen = steps[-1]
             while most is not None and len(steps) <= most and steps[-1] > 0:
                 steps.append(self.parts[0].longer(steps[-1]) & ~seen)
-                seen |= steps[-1]
+                seen = seen | steps[-1]
             self.numbered[start] = steps
         return self.numbered[start]
 

@@ -1,6 +1,79 @@
 """Following the ways of a body: the shapes of its rows, or a fault."""
 
-from patterndeeds.effects import entries_of, followers, stacks_behind
+from patterndeeds.effects import (
+    AFTER, BEHIND, NAMED, PHASE_END, STRAIGHT, VALUES, entries_of, followers, stacks_behind,
+)
+
+
+def quick_shapes(body, heads):
+    """The shapes of the rows of a body, and whether a row leads to itself or back to a row that is no tick.
+
+    None if there is another fault than rows without a tick that go round. No ways are kept, unlike in
+    Following: it goes through the rows as they stand, once more if one leads back to where nothing led.
+    """
+    rows = body[2]
+    shapes = [None] * len(rows)
+    if body[0] == "":
+        shapes[rows.index(PHASE_END)] = ()
+    while True:
+        backs = []
+        if not go_through(rows, shapes, heads, backs):
+            return None
+        if (True, True) not in backs and (False, True) not in backs:
+            return shapes, (True, False) in backs
+
+
+def go_through(rows, shapes, heads, backs):
+    """Puts into a list the shapes of rows, as far as rows ahead of them tell; whether no fault was met."""
+    stack = ()
+    for at, row in enumerate(rows):
+        known = shapes[at]
+        if known is None:
+            if stack is None:
+                continue
+            shapes[at] = stack
+        elif stack is None:
+            stack = known
+        elif stack != known:
+            return False
+        word = row[0]
+        if word in STRAIGHT:
+            many, taken, given = STRAIGHT[word]
+            if many > 0 and stack[-many:] != VALUES[many]:
+                return False
+            if taken > 0:
+                stack = stack[:-taken]
+            elif given:
+                stack = stack + given
+        elif word in AFTER:
+            find_after = AFTER[word]
+            stack = find_after(row, stack, heads)
+            if stack is None:
+                return False
+        else:
+            find_behind = BEHIND[word]
+            behind = find_behind(row, stack)
+            if behind is None:
+                return False
+            stack, there = behind
+            if there is not None and not leads(rows, at, there, shapes, backs):
+                return False
+    return stack is None
+
+
+def leads(rows, at, stack, shapes, backs):
+    """Lets a row lead to the one that it names, with a stack there; whether no other stack was there.
+
+    If that is not behind the row, backs gets whether it is no tick, and whether nothing led to it before.
+    """
+    named = rows[at][NAMED[rows[at][0]]]
+    known = shapes[named]
+    if named <= at:
+        backs.append((rows[named][0] != "tick", known is None))
+    if known is None:
+        shapes[named] = stack
+        return True
+    return known == stack
 
 
 class Following:
@@ -20,20 +93,20 @@ class Following:
         self.turning = False
         self.follow_ways(entries_of(body))
         if self.turning and self.fault is None:
-            self.lengths()
+            ring = Lengths(self.rows, self.shapes).ring
+            if ring is not None:
+                self.fault = ("tickless", [self.way_to(ring[0]) + ring[1:]])
 
     def follow_ways(self, entries):
-        """Follows the ways from the entries on."""
+        """Follows the ways from the entries on, the rows in the sequence in which they are met."""
         for entry in entries:
             self.shapes[entry] = ()
-        waiting = entries
-        while waiting and self.fault is None:
-            behind = []
-            for at in waiting:
-                behind.extend(self.rows_behind(at))
-                if self.fault is not None:
-                    return
-            waiting = behind
+        met = list(entries)
+        done = 0
+        while done < len(met) and self.fault is None:
+            behind = self.rows_behind(met[done])
+            met.extend(behind)
+            done += 1
 
     def rows_behind(self, at):
         """The rows that are met for the first time behind a row."""
@@ -65,40 +138,46 @@ class Following:
             at = self.before[at]
         return way[::-1]
 
+
+class Lengths:
+    """For each row that is reached the greatest number of rows in a list that begins with it.
+
+    Each next one is a follower and no tick. ring is None, or such rows that lead back to the first of
+    them, which ends it, too; then not all lengths are found.
+    """
+
+    def __init__(self, rows, shapes):
+        self.rows = rows
+        self.lengths = [None] * len(rows)
+        self.ring = None
+        for start, shape in enumerate(shapes):
+            if shape is not None and self.lengths[start] is None and self.ring is None:
+                self.measure_from(start)
+
     def without_tick(self, at):
         """The followers of a row that are no ticks."""
         return [one for one, _ in followers(self.rows, at) if self.rows[one][0] != "tick"]
 
-    def lengths(self):
-        """For each row that is reached the greatest number of rows in a list that begins with it.
-
-        Each next one is a follower and no tick. A ring of such rows is a fault.
-        """
-        found = [None] * len(self.rows)
-        for start, shape in enumerate(self.shapes):
-            if shape is not None and found[start] is None and self.fault is None:
-                self.measure_from(start, found)
-        return found
-
-    def measure_from(self, start, found):
+    def measure_from(self, start):
         """Works out the lengths of a row and of those behind it, those furthest behind first."""
         path = [start]
-        waiting = [self.without_tick(start)]
+        behind = [self.without_tick(start)]
+        waiting = [list(behind[0])]
         standing = {start: True}
         while path:
             at = path[-1]
             if waiting[-1]:
                 following = waiting[-1].pop()
                 if following in standing:
-                    ring = path[path.index(following):] + [following]
-                    self.fault = ("tickless", [self.way_to(following) + ring[1:]])
+                    self.ring = path[path.index(following):] + [following]
                     return
-                if found[following] is None:
+                if self.lengths[following] is None:
                     path.append(following)
-                    waiting.append(self.without_tick(following))
+                    behind.append(self.without_tick(following))
+                    waiting.append(list(behind[-1]))
                     standing[following] = True
             else:
-                found[at] = 1 + max([found[one] for one in self.without_tick(at)] + [0])
+                self.lengths[at] = 1 + max([self.lengths[one] for one in behind.pop()] + [0])
                 del standing[at]
                 path.pop()
                 waiting.pop()

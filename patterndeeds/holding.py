@@ -23,14 +23,14 @@ def is_fitting(code, shapes, world, value):
     if type(value) is not tuple or len(value) != 6:
         return False
     ending, place, at, stack, calls, room = value
-    if not is_count(place) or not is_pair_of_counts(at) or type(stack) is not tuple or type(calls) is not tuple:
+    if type(place) is not int or place < 0 or not is_pair_of_counts(at):
         return False
-    if not is_room(code, world, room) or len(calls) > MOST_OPEN:
+    if type(stack) is not tuple or type(calls) is not tuple or len(calls) > MOST_OPEN:
         return False
     parts = stack_parts(code, shapes, calls, at)
-    if parts is None or not are_locals(code, calls) or not is_stack(code, calls, parts, stack):
+    if parts is None or not is_stack(code, calls, parts, stack):
         return False
-    return is_ending(code, ending, value)
+    return is_room(code, world, room) and is_ending(code, ending, value)
 
 
 def is_count(value):
@@ -50,25 +50,33 @@ def is_room(code, world, value):
     phase, exit_code, scalars, arrays, ranges, record, readers, outputs = value
     if type(phase) is not str or phase not in PHASES or type(exit_code) is not int:
         return False
-    if not are_named(code[0], scalars) or not are_named(code[1], arrays) or not are_ranges(code[2], ranges):
+    if not are_scalars(code[0], scalars) or not are_arrays(code[1], arrays) or not are_ranges(code[2], ranges):
         return False
-    for _, one in scalars:
-        if not is_value(one):
-            return False
-    for _, table in arrays:
-        if not is_table(table):
-            return False
-    if not is_record(record) or dict(scalars)["NF"] != ("number", len(record[1]), 1):
+    if not is_record(record) or scalars[code[0].index("NF")][1] != ("number", len(record[1]), 1):
         return False
     return are_readers(world, readers) and are_outputs(outputs)
 
 
-def are_named(names, value):
-    """Whether any value is a tuple of pairs with these names."""
+def are_scalars(names, value):
+    """Whether any value is a tuple of pairs of these names and values."""
     if type(value) is not tuple or len(value) != len(names):
         return False
     for name, row in zip(names, value):
         if type(row) is not tuple or len(row) != 2 or type(row[0]) is not str or row[0] != name:
+            return False
+        if not is_value(row[1]):
+            return False
+    return True
+
+
+def are_arrays(names, value):
+    """Whether any value is a tuple of pairs of these names and tables."""
+    if type(value) is not tuple or len(value) != len(names):
+        return False
+    for name, row in zip(names, value):
+        if type(row) is not tuple or len(row) != 2 or type(row[0]) is not str or row[0] != name:
+            return False
+        if not is_table(row[1]):
             return False
     return True
 
@@ -82,28 +90,36 @@ def is_table(value):
     """Whether any value is a table."""
     if type(value) is not tuple:
         return False
+    ahead = None
     for row in value:
         if type(row) is not tuple or len(row) != 2 or not is_text(row[0]) or not is_value(row[1]):
             return False
-    return is_ascending([row[0] for row in value])
-
-
-def is_ascending(rows):
-    """Whether each of some strings or tuples is greater than the one ahead."""
-    for one, other in zip(rows, rows[1:]):
-        if one >= other:
+        if ahead is not None and row[0] <= ahead:
             return False
+        ahead = row[0]
     return True
 
 
-def are_texts(value):
-    """Whether any value is a tuple of texts."""
-    return type(value) is tuple and [one for one in value if not is_text(one)] == []
+def are_ascending_texts(value):
+    """Whether any value is an ascending tuple of texts."""
+    if type(value) is not tuple:
+        return False
+    ahead = None
+    for text in value:
+        if not is_text(text) or ahead is not None and text <= ahead:
+            return False
+        ahead = text
+    return True
 
 
 def is_record(value):
     """Whether any value is a record."""
-    return type(value) is tuple and len(value) == 2 and is_text(value[0]) and are_texts(value[1])
+    if type(value) is not tuple or len(value) != 2 or not is_text(value[0]) or type(value[1]) is not tuple:
+        return False
+    for text in value[1]:
+        if not is_text(text):
+            return False
+    return True
 
 
 def are_readers(world, value):
@@ -111,18 +127,20 @@ def are_readers(world, value):
     if type(value) is not tuple or len(value) != 3 or type(value[2]) is not tuple:
         return False
     index, at, asides = value
-    if type(index) is not int or index < -1 or not is_count(at) or index == -1 and at != 0:
+    if type(index) is not int or type(at) is not int or index < -1 or at < 0 or index == -1 and at != 0:
         return False
     if world is not None and index >= 0 and not lies_in(at, world[0][index:index + 1]):
         return False
+    ahead = ()
     for row in asides:
         if type(row) is not tuple or len(row) != 3 or type(row[0]) is not str or row[0] not in KINDS:
             return False
-        if not is_text(row[1]) or not is_count(row[2]):
+        if not is_text(row[1]) or not is_count(row[2]) or row[:2] <= ahead:
             return False
         if world is not None and not lies_in(row[2], [aside for aside in world[1] if aside[:2] == row[:2]]):
             return False
-    return is_ascending([row[:2] for row in asides])
+        ahead = row[:2]
+    return True
 
 
 def lies_in(at, inputs):
@@ -147,92 +165,114 @@ def are_outputs(value):
 
 
 def stack_parts(code, shapes, calls, at):
-    """The parts of a stack, as shapes, of the main and of the calls; None if rows, calls and bases do not fit."""
+    """The parts of a stack, as shapes, of the main and of the calls; None if the calls or the rows do not fit."""
     numbers = {body[0]: number for number, body in enumerate(code[3])}
-    caller = 0
+    number = 0
     base = 0
     parts = []
-    for call in calls:
+    for depth, call in enumerate(calls):
         if not is_call(call) or call[0] not in numbers:
             return None
-        body, row, _ = call[3]
-        rows = code[3][body][2] if body == caller else ()
-        if not 1 <= row < len(rows) or shapes[caller][row - 1] is None or rows[row - 1][:2] != ("call", call[0]):
+        name, cells, low, (body, row, _) = call
+        rows = code[3][number][2]
+        if body != number or not 1 <= row < len(rows) or rows[row - 1][:2] != ("call", name):
             return None
-        parts.append(shapes[caller][row][:-1])
-        base += len(parts[-1])
-        caller = numbers[call[0]]
-        if call[2] != base or len(call[1]) != len(code[3][caller][1]):
+        if shapes[number][row - 1] is None:
             return None
-    if at[0] != caller or at[1] >= len(shapes[caller]) or shapes[caller][at[1]] is None:
+        part = shapes[number][row][:-1]
+        parts.append(part)
+        base += len(part)
+        number = numbers[name]
+        if low != base or not are_cells(code, calls, depth, code[3][number][1], cells):
+            return None
+    if at[0] != number or at[1] >= len(shapes[number]) or shapes[number][at[1]] is None:
         return None
-    return parts + [shapes[caller][at[1]]]
+    parts.append(shapes[number][at[1]])
+    return parts
 
 
 def is_call(value):
-    """Whether any value looks like an open call of a function."""
-    if type(value) is not tuple or len(value) != 4 or type(value[0]) is not str or value[0] == "":
+    """Whether any value looks like an open call, whatever its function and its locals are."""
+    if type(value) is not tuple or len(value) != 4:
         return False
-    if type(value[1]) is not tuple or not is_count(value[2]):
+    name, cells, low, back = value
+    if type(name) is not str or type(cells) is not tuple or type(low) is not int:
         return False
-    return type(value[3]) is tuple and len(value[3]) == 3 and [one for one in value[3] if not is_count(one)] == []
+    if type(back) is not tuple or len(back) != 3:
+        return False
+    body, row, place = back
+    return type(body) is int and type(row) is int and type(place) is int and place >= 0
 
 
-def are_locals(code, calls):
-    """Whether the locals of calls, as many as there are params, are as the params want."""
-    params = {body[0]: body[1] for body in code[3]}
-    for depth, call in enumerate(calls):
-        for kind, one in zip(params[call[0]], call[1]):
-            if kind == "value":
-                if not is_value(one):
-                    return False
-            elif not is_own_table(one) and not is_reference(code, calls, depth, one):
+def are_cells(code, calls, depth, params, cells):
+    """Whether what the call with a depth has as its locals is as its params want."""
+    if len(cells) != len(params):
+        return False
+    for kind, one in zip(params, cells):
+        if kind == "value":
+            if not is_value(one):
                 return False
+        elif is_own(one):
+            if not is_table(one[1]):
+                return False
+        elif not is_reference(code, calls, depth, one):
+            return False
     return True
 
 
-def is_own_table(value):
-    """Whether any value is an array that stands itself in a call."""
-    if type(value) is not tuple or len(value) != 2 or type(value[0]) is not str:
-        return False
-    return value[0] == "table" and is_table(value[1])
+def is_own(value):
+    """Whether any value looks like an array that stands itself in a call, whatever its table is."""
+    return type(value) is tuple and len(value) == 2 and type(value[0]) is str and value[0] == "table"
 
 
 def is_reference(code, calls, depth, value):
-    """Whether any value leads to an array of a code, or to a table in one of the calls up to a depth."""
-    if type(value) is not tuple or len(value) < 2 or type(value[0]) is not str:
+    """Whether any value leads to an array of a code, or to a table in one of the calls up to a depth.
+
+    The tables themselves are looked at where they stand.
+    """
+    if type(value) is not tuple:
         return False
-    if value[0] == "global":
-        return len(value) == 2 and type(value[1]) is str and value[1] in code[1]
-    if value[0] != "own" or len(value) != 3 or not is_pair_of_counts(value[1:]):
+    if len(value) == 2:
+        how, name = value
+        return type(how) is str and how == "global" and type(name) is str and name in code[1]
+    if len(value) != 3:
         return False
-    if value[1] > depth or value[2] >= len(calls[value[1]][1]):
+    how, level, at = value
+    if type(how) is not str or how != "own" or type(level) is not int or type(at) is not int:
         return False
-    return is_own_table(calls[value[1]][1][value[2]])
+    if not 0 <= level <= depth or not 0 <= at < len(calls[level][1]):
+        return False
+    return is_own(calls[level][1][at])
 
 
 def is_stack(code, calls, parts, stack):
-    """Whether a stack has these parts."""
-    words = [(depth - 1, word) for depth, part in enumerate(parts) for word in part]
-    if len(stack) != len(words):
+    """Whether a stack has these parts; those of the calls are behind that of the main."""
+    if len(stack) != sum([len(part) for part in parts]):
         return False
-    for (depth, word), thing in zip(words, stack):
-        if word == "value":
-            fitting = is_value(thing)
-        elif word == "array":
-            fitting = is_reference(code, calls, depth, thing)
-        else:
-            fitting = is_walk(code, calls, depth, thing)
-        if not fitting:
-            return False
+    at = 0
+    for number, part in enumerate(parts):
+        for word in part:
+            thing = stack[at]
+            at += 1
+            if word == "value":
+                fitting = is_value(thing)
+            elif word == "array":
+                fitting = is_reference(code, calls, number - 1, thing)
+            else:
+                fitting = is_walk(code, calls, number - 1, thing)
+            if not fitting:
+                return False
     return True
 
 
 def is_walk(code, calls, depth, value):
     """Whether any value is a walk over an array."""
-    if type(value) is not tuple or len(value) != 3 or type(value[0]) is not str or value[0] != "walk":
+    if type(value) is not tuple or len(value) != 3:
         return False
-    return is_reference(code, calls, depth, value[1]) and are_texts(value[2]) and is_ascending(value[2])
+    word, reference, keys = value
+    if type(word) is not str or word != "walk" or not is_reference(code, calls, depth, reference):
+        return False
+    return are_ascending_texts(keys)
 
 
 def is_ending(code, ending, held):

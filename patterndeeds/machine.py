@@ -2,23 +2,25 @@
 
 from patterndeeds.checker import check_code, checked_shapes, sound_shapes
 from patterndeeds.holding import check_held, is_fitting
-from patterndeeds.runs import Run, resumed
+from patterndeeds.runs import Run, first_held
 from patterndeeds.stepping import do_row, go_on
 from patterndeeds.walker import check_count
 from patterndeeds.worlds import check_world
 
-NO_WORLD = ((), ())
+# The instructions that take a record, which may have to be waited for.
+TAKING = ("record", "read")
 
 
 def begun(code):
     """The first held state of a code."""
     checked_shapes(code)
-    return Run(code, NO_WORLD).held()
+    return first_held(code)
 
 
 def step(code, world, held):
     """The held state behind one instruction, and the event, if there is one."""
-    run = checked_run(code, world, held)
+    check_standing(code, world, held)
+    run = Run(code, world, held)
     if run.ending is not None or not do_row(run, run.rows[run.row]):
         return held, None
     event = None
@@ -29,25 +31,23 @@ def step(code, world, held):
 
 def end_of(code, world, held):
     """The end of a held state; ("step",) if it may go on with an instruction that is no tick."""
-    run = checked_run(code, world, held)
-    if run.ending is not None:
-        return run.ending
-    row = run.rows[run.row]
+    check_standing(code, world, held)
+    ending, place, (body, number), _, _, _ = held
+    if ending is not None:
+        return ending
+    row = code[3][body][2][number]
     if row[0] == "tick":
         return row
-    place = run.at_place
-    if not do_row(run, row):
+    if row[0] in TAKING and not do_row(Run(code, world, held), row):
         return ("more", place)
     return ("step",)
 
 
 def go(code, world, held, count):
     """The number of ticks, the end, the held state and the events behind at most so many ticks more."""
-    shapes = checked_shapes(code)
-    check_world(world)
-    check_held(code, shapes, world, held)
+    check_standing(code, world, held)
     check_count(count)
-    run = resumed(code, world, held)
+    run = Run(code, world, held)
     places, end = go_on(run, count)
     return (len(places), end, run.held(), run.happened)
 
@@ -77,9 +77,8 @@ def fits(code, world, value):
     return is_fitting(code, shapes, world, value)
 
 
-def checked_run(code, world, held):
-    """The run of a code in a world that is in a held state; raises the errors of the arguments."""
+def check_standing(code, world, held):
+    """Raises the errors of a code, a world and a held state."""
     shapes = checked_shapes(code)
     check_world(world)
     check_held(code, shapes, world, held)
-    return resumed(code, world, held)

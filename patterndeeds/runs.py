@@ -41,11 +41,11 @@ class Frame:
 class Output:
     """What is written to one name."""
 
-    def __init__(self, kind, name):
+    def __init__(self, kind, name, text, is_open):
         self.kind = kind
         self.name = name
-        self.parts = []
-        self.is_open = True
+        self.parts = [text]
+        self.is_open = is_open
 
     def told(self):
         """The output as it is told."""
@@ -55,36 +55,43 @@ class Output:
 class Run:
     """The state of a run: its room, its open calls, its stack, and where it stands.
 
-    ending is None as long as the run may go on; happened has its events. What is worked out from texts
-    of separators and patterns is kept, as the same ones come again and again.
+    It begins with a held state, the first one without one. ending is None as long as the run may go on;
+    happened has its events. What is worked out from texts of separators and patterns is kept, as the same
+    ones come again and again.
     """
 
-    def __init__(self, code, world):
+    def __init__(self, code, world, held=None):
+        if held is None:
+            held = first_held(code)
+        ending, place, at, stack, calls, room = held
         self.bodies = code[3]
-        self.numbers = {body[0]: at for at, body in enumerate(self.bodies)}
+        self.numbers = {body[0]: number for number, body in enumerate(code[3])}
         self.mains = world[0]
         self.asides = {row[:2]: row[2:] for row in world[1]}
-        self.scalars = {name: BEGINNING.get(name, UNSET) for name in code[0]}
-        self.arrays = {name: {} for name in code[1]}
-        self.ranges = [False] * code[2]
-        self.phase = "begin"
-        self.exit_code = 0
-        self.record = ("", ())
-        self.index = -1
-        self.signs_taken = 0
-        self.readers = {}
-        self.outputs = {}
-        self.frames = []
-        self.stack = []
-        self.row = 0
-        self.at_place = 0
-        self.body = 0
-        self.rows = self.bodies[0][2]
-        self.ending = None
+        self.furnish(room)
+        self.frames = [Frame(name, [cell_of(told) for told in cells], base, back) for name, cells, base, back in calls]
+        self.stack = list(stack)
+        self.body, self.row = at
+        self.rows = self.bodies[self.body][2]
+        self.at_place = place
+        self.ending = ending
         self.happened = []
         self.automata = {}
         self.parters = {}
         self.takers = {}
+
+    def furnish(self, room):
+        """Lets the run have a room."""
+        phase, exit_code, scalars, arrays, ranges, record, readers, outputs = room
+        self.phase = phase
+        self.exit_code = exit_code
+        self.scalars = dict(scalars)
+        self.arrays = {name: dict(table) for name, table in arrays}
+        self.ranges = list(ranges)
+        self.record = record
+        self.index, self.signs_taken, asides = readers
+        self.readers = {(kind, name): at for kind, name, at in asides}
+        self.outputs = {row[:2]: Output(row[0], row[1], row[2], row[3]) for row in outputs}
 
     def enter(self, body):
         """Lets the rows of a body be done."""
@@ -148,13 +155,12 @@ class Run:
 
     def room(self):
         """The room."""
-        scalars = [(name, self.scalars[name]) for name in self.scalars]
-        arrays = [(name, told_table(self.arrays[name])) for name in self.arrays]
+        arrays = [(name, told_table(table)) for name, table in self.arrays.items()]
         asides = [key + (self.readers[key],) for key in sorted(self.readers)]
         return (
             self.phase,
             self.exit_code,
-            tuple(scalars),
+            tuple(self.scalars.items()),
             tuple(arrays),
             tuple(self.ranges),
             self.record,
@@ -163,37 +169,12 @@ class Run:
         )
 
 
-def resumed(code, world, held):
-    """The run of a code that is in a held state which fits it."""
-    run = Run(code, world)
-    ending, place, at, stack, calls, room = held
-    run.ending = ending
-    run.at_place = place
-    run.stack = list(stack)
-    for name, cells, base, origin in calls:
-        run.frames.append(Frame(name, [cell_of(told) for told in cells], base, origin))
-    run.enter(at[0])
-    run.row = at[1]
-    furnish(run, room)
-    return run
-
-
-def furnish(run, room):
-    """Lets a run have a room."""
-    phase, exit_code, scalars, arrays, ranges, record, readers, outputs = room
-    run.phase = phase
-    run.exit_code = exit_code
-    run.scalars = dict(scalars)
-    run.arrays = {name: dict(table) for name, table in arrays}
-    run.ranges = list(ranges)
-    run.record = record
-    run.index, run.signs_taken, asides = readers
-    run.readers = {(kind, name): at for kind, name, at in asides}
-    for kind, name, text, is_open in outputs:
-        output = Output(kind, name)
-        output.parts.append(text)
-        output.is_open = is_open
-        run.outputs[(kind, name)] = output
+def first_held(code):
+    """The first held state of a code."""
+    scalars = tuple([(name, BEGINNING.get(name, UNSET)) for name in code[0]])
+    arrays = tuple([(name, ()) for name in code[1]])
+    room = ("begin", 0, scalars, arrays, (False,) * code[2], ("", ()), (-1, 0, ()), ())
+    return (None, 0, (0, 0), (), (), room)
 
 
 def cell_of(told):
@@ -205,7 +186,7 @@ def cell_of(told):
 
 def told_table(table):
     """A dict as a table."""
-    return tuple([(key, table[key]) for key in sorted(table)])
+    return tuple([(key, table[key]) for key in sorted(table)]) if table else ()
 
 
 def told_cell(cell):

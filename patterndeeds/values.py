@@ -19,26 +19,19 @@ MINUS_ONE = ("number", -1, 1)
 
 def is_value(value):
     """Whether any value is a value of a run, within the bounds of its numbers and texts."""
-    if type(value) is not tuple or len(value) == 0 or type(value[0]) is not str:
+    if type(value) is not tuple:
         return False
-    tag = value[0]
-    if tag == "number":
-        return len(value) == 3 and is_fraction(value[1], value[2])
-    if tag == "text" or tag == "seen":
-        return len(value) == 2 and is_short_text(value[1])
-    return tag == "unset" and len(value) == 1
-
-
-def is_fraction(top, bottom):
-    """Whether any two values are a fraction in lowest terms that a number may have."""
-    if type(top) is not int or type(bottom) is not int:
-        return False
-    return 1 <= bottom <= GREATEST and abs(top) <= GREATEST and gcd(top, bottom) == 1
-
-
-def is_short_text(value):
-    """Whether any value is a text that a value may have."""
-    return type(value) is str and len(value) <= MOST_SIGNS and is_text(value)
+    if len(value) == 3:
+        tag, top, bottom = value
+        if type(tag) is not str or tag != "number" or type(top) is not int or type(bottom) is not int:
+            return False
+        if bottom == 1:
+            return -GREATEST <= top <= GREATEST
+        return 1 <= bottom <= GREATEST and -GREATEST <= top <= GREATEST and gcd(top, bottom) == 1
+    if len(value) == 2:
+        tag, text = value
+        return type(tag) is str and (tag == "text" or tag == "seen") and is_text(text) and len(text) <= MOST_SIGNS
+    return len(value) == 1 and type(value[0]) is str and value[0] == "unset"
 
 
 def has_number_form(text):
@@ -286,5 +279,5 @@ def not_less(row, rows):
                 mask |= bit
         elif text <= other_text:
             mask |= bit
-        bit += bit
+        bit = 2 * bit
     return mask

@@ -8,6 +8,8 @@ import builtins
 import os
 import tokenize
 
+from aliases import changes_of_walked
+
 LIBRARY = {
     "heapq": {"heappush", "heappop", "heapify", "heapreplace", "heappushpop"},
     "math": {"gcd", "lcm", "isqrt", "comb", "perm", "factorial"},
@@ -33,7 +35,6 @@ methodcaller os quit super vars sys""".split())
 BARRED_WORDS = ["typing", "typing_extensions", "enum", "Enum", "IntEnum", "StrEnum", "Flag", "IntFlag", "Generic",
                 "Protocol", "ABC", "ABCMeta", "namedtuple", "NamedTuple", "TypedDict", "TYPE_CHECKING",
                 "abstractmethod"]
-CHANGING = set("append extend pop insert remove clear update setdefault sort reverse add discard".split())
 # What may be done with a list or dict of the module level besides an index, a loop, in and a comparison.
 ASKING = set("len sorted list tuple dict set sum min max any all enumerate zip".split())
 STATEMENTS = (ast.Assign, ast.AugAssign, ast.If, ast.While, ast.For, ast.Return, ast.Break, ast.Continue, ast.Pass,
@@ -192,8 +193,6 @@ class Checker:
             self.note("L19", node, "a handler of an error that is not an own one")
         if isinstance(node, ast.Name) and node.id in self.tables and isinstance(node.ctx, ast.Load):
             self.check_table(node)
-        if isinstance(node, ast.For):
-            self.check_loop(node)
         if isinstance(node, ast.BinOp) and isinstance(node.op, ast.Pow):
             if not isinstance(node.right, ast.Constant) or not 0 <= node.right.value <= 64:
                 self.note("L27", node, "an exponent that is no literal")
@@ -205,24 +204,9 @@ class Checker:
         method = isinstance(above, ast.Attribute) and above.attr in ("get", "items", "keys", "values", "index", "count")
         read = isinstance(above, ast.Subscript) and above.value is node and isinstance(above.ctx, ast.Load)
         looped = isinstance(above, (ast.For, ast.comprehension)) and above.iter is node
-        if not (asked or method or read or looped or isinstance(above, ast.Compare)):
+        compared = isinstance(above, ast.Compare)
+        if not (asked or method or read or looped or compared or self.is_for_translate(node)):
             self.note("L15", node, "a table of the module level that is more than read: " + node.id)
-
-    def check_loop(self, loop):
-        """What a loop goes over is not changed in it."""
-        over = ast.dump(loop.iter)
-        if isinstance(loop.iter, ast.Call) and getattr(loop.iter.func, "id", "") in ("enumerate", "zip", "reversed"):
-            over = [ast.dump(one) for one in loop.iter.args]
-        else:
-            over = [over]
-        for node in [one for statement in loop.body for one in ast.walk(statement)]:
-            changed = None
-            if isinstance(node, ast.Call) and isinstance(node.func, ast.Attribute) and node.func.attr in CHANGING:
-                changed = node.func.value
-            if isinstance(node, ast.Subscript) and isinstance(node.ctx, (ast.Store, ast.Del)):
-                changed = node.value
-            if changed is not None and ast.dump(changed).replace("Store()", "Load()") in over:
-                self.note("L23", node, "what the loop goes over is changed in it")
 
     def check_compare(self, node):
         for operator, right in zip(node.ops, node.comparators):
@@ -243,7 +227,7 @@ class Checker:
             name = node.func.attr
             if name not in METHODS and name not in self.methods:
                 self.note("L25", node, "a method that may not be called: " + name)
-            if name == "translate" and not (node.args and isinstance(node.args[0], ast.Dict) and node.args[0].keys):
+            if name == "translate" and not self.is_literal_table(node.args):
                 self.note("L25", node, "a translate without a literal table")
         elif not isinstance(node.func, ast.Name):
             self.note("L15", node, "a call of something that has no name")
@@ -251,7 +235,29 @@ class Checker:
             if isinstance(node.func, ast.Name) and node.func.id in BUILTINS:
                 self.note("L22", node, "a keyword of a builtin")
 
+    def is_literal_table(self, values):
+        """Whether what translate is passed is a literal table, or the name of one that nothing else reads."""
+        if len(values) != 1:
+            return False
+        table = values[0]
+        if isinstance(table, ast.Name):
+            reads = [node for node in ast.walk(self.tree) if isinstance(node, ast.Name) and node.id == table.id
+                     and isinstance(node.ctx, ast.Load)]
+            rows = [node.value for node in self.tree.body if isinstance(node, ast.Assign)
+                    and getattr(node.targets[0], "id", "") == table.id]
+            if len(rows) != 1 or not all(self.is_for_translate(one) for one in reads):
+                return False
+            table = rows[0]
+        return isinstance(table, ast.Dict) and len(table.keys) > 0
+
+    def is_for_translate(self, node):
+        """Whether a name stands as what translate is passed."""
+        above = self.above[node]
+        return isinstance(above, ast.Call) and getattr(above.func, "attr", "") == "translate" and node in above.args
+
     def check_function(self, node):
+        for one in changes_of_walked(node):
+            self.note("L23", one, "what a loop, extend, update, += or |= walks is changed by it")
         if any(getattr(one, "id", "") != "property" for one in node.decorator_list):
             self.note("L4", node, "a decorator")
         if node.decorator_list and len(node.args.args) != 1:
@@ -291,11 +297,33 @@ class Checker:
             return name in function.decorator_list
         if name.id == "iter":
             only = ast.unparse(function.body[-1])
-            return function.name == "__iter__" and len(function.body) == 1 and only.startswith("return iter(self.")
+            if function.name == "__iter__" and len(function.body) == 1 and only.startswith("return iter(self."):
+                return True
+            return self.is_kept_iterator(self.above[name], function)
         if name.id != "super" or not isinstance(above, ast.Call) or above.args:
             return False
         read = self.above[above]
         return isinstance(read, ast.Attribute) and isinstance(self.above[read], ast.Call) and read.attr[:2] != "__"
+
+
+    def is_kept_iterator(self, call, function):
+        """Whether a call of iter gives a local name once, which is only gone through then."""
+        row = self.above[call]
+        if not isinstance(call, ast.Call) or len(call.args) != 1 or not isinstance(row, ast.Assign):
+            return False
+        if not isinstance(call.args[0], (ast.Name, ast.Attribute, ast.Subscript)) or row.value is not call:
+            return False
+        kept = getattr(row.targets[0], "id", "") if len(row.targets) == 1 else ""
+        names = [node for node in ast.walk(function) if isinstance(node, ast.Name) and node.id == kept]
+        reads = [node for node in names if isinstance(node.ctx, ast.Load)]
+        return len(names) == len(reads) + 1 and all(self.is_gone_through(node) for node in reads)
+
+    def is_gone_through(self, node):
+        """Whether a kept iterator stands where it is gone through."""
+        above = self.above[node]
+        if isinstance(above, (ast.For, ast.comprehension)):
+            return above.iter is node
+        return isinstance(above, ast.Call) and getattr(above.func, "id", "") in ("list", "tuple", "sorted")
 
 
 def names_bound(tree):

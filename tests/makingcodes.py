@@ -9,6 +9,7 @@ CONSTANTS = [("number", 0, 1), ("number", 1, 1), ("number", 2, 1), ("number", -1
 OPERATORS = ["+", "-", "*", "/", "@", "^"]
 COMPARERS = ["<", "<=", "==", "!=", ">", ">="]
 ROWS_NAMED = {"jump": 1, "jump_if": 2, "next_key": 1, "record": 1, "next": 1}
+STOPPING = ("jump", "next", "return", "exit", "halt")
 
 
 class Codes:
@@ -251,3 +252,27 @@ class Codes:
         else:
             rows[at] = row
         return code[:3] + (code[3][:number] + ((name, params, tuple(rows)),) + code[3][number + 1:],)
+
+    def shuffled(self, code):
+        """The code with the rows of each body in another sequence, and jumps between them."""
+        return code[:3] + (tuple((name, params, self.shuffled_rows(rows)) for name, params, rows in code[3]),)
+
+    def shuffled_rows(self, rows):
+        order = list(range(len(rows)))
+        self.random.shuffle(order)
+        places = {}
+        behind = 1
+        for at in order:
+            places[at] = behind
+            behind += 1 if rows[at][0] in STOPPING else 2
+        # Where no row is behind a row, the jump leads to itself.
+        found = [("jump", places[0])]
+        for at in order:
+            row = rows[at]
+            if row[0] in ROWS_NAMED:
+                named = ROWS_NAMED[row[0]]
+                row = row[:named] + (places[row[named]],) + row[named + 1:]
+            found.append(row)
+            if row[0] not in STOPPING:
+                found.append(("jump", places.get(at + 1, len(found))))
+        return tuple(found)

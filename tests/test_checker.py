@@ -116,6 +116,47 @@ class TestFaults(Case):
                 code = changed if is_code(changed) else code
         self.assertEqual(kinds, {"lacks", "unlike", "falls", "tickless"})
 
+    def test_rows_in_any_sequence(self):
+        """Jumps may lead back to rows that nothing else leads to, and round."""
+        random = random_of("any sequence")
+        maker = Codes(random)
+        found = set()
+        for _ in range(60 * MANY):
+            code = maker.shuffled(maker.code(random.choice([8, 20])))
+            for _ in range(4):
+                self.assertIs(is_code(code), True)
+                sound = slowfaults.is_sound(code)
+                found.add(sound)
+                fault = code_fault(code)
+                self.assertEqual(fault is None, sound, code)
+                if sound:
+                    known = soundness.shapes(code)
+                    self.assertEqual(shapes(code), [[one.get(at) for at in range(len(body[2]))]
+                                                    for one, body in zip(known, code[3])])
+                    self.assertEqual(step_bound(code), slow_bound(code, known))
+                else:
+                    self.assertTrue(slowfaults.is_fault(code, *fault), (code, fault))
+                    self.raises(UnsoundCode, shapes, code)
+                    self.raises(UnsoundCode, step_bound, code)
+                changed = maker.changed(code)
+                code = changed if is_code(changed) else code
+        self.assertEqual(found, {True, False})
+
+    def test_rows_met_from_behind(self):
+        """What is met at last, by jumps back alone, has its shape and its faults, too."""
+        back = (("jump", 5), ("drop",), ("halt",), ONE, ("jump", 1), ("jump", 3)) + TAIL
+        code = main_code(*back)
+        self.assertEqual(shapes(code)[0], [(), ("value",), (), (), ("value",), (), (), ()])
+        self.assertIsNone(code_fault(code))
+        for at, row, kind in [(3, ("tick", 1), "lacks"), (2, ("jump", 3), "tickless"), (2, ("jump", 1), "unlike"),
+                              (4, ("jump_if", True, 3), "tickless"), (7, ("tick", 1), "falls"),
+                              (3, ("array", ("global", "a")), "lacks"), (0, ("jump", 1), "lacks")]:
+            bad = main_code(*(back[:at] + (row,) + back[at + 1:]))
+            self.assertEqual((code_fault(bad)[0], slowfaults.is_sound(bad)), (kind, False), row)
+            self.assertIs(is_code_fault(bad, code_fault(bad)), True)
+            self.raises(UnsoundCode, shapes, bad)
+            self.raises(UnsoundCode, step_bound, bad)
+
     def test_codes_of_programs_are_sound(self):
         random = random_of("sound")
         maker = Runs(random)

@@ -205,6 +205,35 @@ class TestFits(Case):
                 ((4, 0, 1, 0), ("global", "a"), False), ((4, 0, 1, 1), ("global", "a"), False)]:
             self.assertIs(fits(code, world, exchanged(held, path, worth)), wanted, (path, worth))
 
+    def test_arrays_on_the_stack(self):
+        """A reference on the stack leads to a table of a call that is not later than that of its part."""
+        main = (("array", ("global", "a")), ("call", "f", 0), ("halt",), END, ("halt",))
+        rows = (("array", ("local", 0)), ("call", "f", 0), ("return",))
+        code = (SCALARS, ARRAYS, 0, (("", (), main), ("f", ("array",), rows)))
+        world = ((), ())
+        held = begun(code)
+        for _ in range(6):
+            held = step(code, world, held)[0]
+        self.assertEqual(held[3], (("global", "a"), ("own", 0, 0), ("own", 1, 0)))
+        self.assertEqual(len(held[4]), 3)
+        for at, worth, wanted in [(0, ("own", 0, 0), False), (0, ("global", "b"), True), (1, ("own", 0, 0), True),
+                (1, ("own", 1, 0), False), (1, ("global", "b"), True), (2, ("own", 0, 0), True),
+                (2, ("own", 2, 0), False), (2, ("own", 1, 1), False), (2, ("own", 1), False), (2, ("unset",), False)]:
+            value = exchanged(held, (3, at), worth)
+            self.assertIs(slowholding.fits(code, world, value), wanted, (at, worth))
+            self.assertIs(fits(code, world, value), wanted, (at, worth))
+
+    def test_calls_that_are_not_reached(self):
+        """The row back stands behind a call that is reached, whatever else leads to it."""
+        for ahead, wanted in [(("constant", ("unset",)), False), (("call", "f", 0), True)]:
+            main = (ahead, ("jump", 3), ("call", "f", 0), ("drop",), ("halt",), END, ("halt",))
+            rows = (("tick", 1), ("constant", ("unset",)), ("return",))
+            code = (SCALARS, ARRAYS, 0, (("", (), main), ("f", (), rows)))
+            for row in [1, 3]:
+                held = (None, 0, (1, 0), (), (("f", (), 0, (0, row, 0)),), begun(code)[5])
+                self.assertIs(slowholding.fits(code, ((), ()), held), wanted and row == 1)
+                self.assertIs(fits(code, ((), ()), held), wanted and row == 1)
+
     def test_sixteen_calls(self):
         code = code_of(program_of("BEGIN { f() } function f() { f() }"))
         world = ((), ())

@@ -128,7 +128,12 @@ class TestHeldTexts(Case):
                 '("\t")',
                 '("a")', '("a"', '("a"b', "(T", "(TF)", "(T,F,N)", "(t)", "()()", "(()())", "((),())", "(1,-1,0)",
                 "(--1)",
-                "(1-)", "x(", " ()", "() "]:
+                "(1-)", "x(", " ()", "() ", "(-,1)", "(-)", "(1-1)", "()-", "()-1", "(-12,-0,1)", '("-",-', '("-0",-x',
+                '("a\\"', '("a\\")', '("a\\\\"', '("a\\\\")', '("a\\\\\\")', '(\\"a")', '("a",\\"b")',
+                '("\\"","\\")', '("a\\x","\n")', '("a\n\\x")', '("a\t","\n")', '(1,\n', '()\n', '()\t',
+                '("a"\t"b")', '\n', '(\t', '"\n"', '("a""b")', '("a"1)', '(1"a")', '(T"a")', '("a"(', '("a"T',
+                '(()"a")', '("\\\\\\"",1,)', '"("', '(12,-34,N12)', '(1N)', '(-N)', '(10,01)', '(0-1)', '(-1-1)',
+                '("(,)",")', '("")"', '"', '"")', '("","")1', '("","","]")]']:
             self.assertIs(self.check(code, text), False)
         for _ in range(300 * MANY):
             self.check(code, "(" + "".join(random.choice('(),,"\\nTN019- ') for _ in range(random.randrange(12))))
@@ -145,6 +150,11 @@ class TestHeldTexts(Case):
         self.raises_with(InvalidText, "index", at + 90, held_of, code, text.replace("9" * 90, "9" * 91))
         self.raises_with(InvalidText, "index", at + 91, held_of, code, text.replace("9" * 90, "-" + "9" * 91))
         self.raises_with(InvalidText, "index", at + 1, held_of, code, text.replace("9" * 90, "0" + "9" * 9))
+        self.raises_with(InvalidText, "index", at + 2, held_of, code, text.replace("9" * 90, "-1-1"))
+        for number in ["1" + "0" * 89, "-1" + "0" * 89]:
+            made = text.replace("9" * 90, number)
+            self.assertEqual(held_of(code, made)[5][1], int(number))
+            self.raises_with(InvalidText, "index", at + len(number), held_of, code, made.replace(number, number + "0"))
 
     def test_brackets(self):
         code = code_of(program_of(""))

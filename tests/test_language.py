@@ -52,9 +52,25 @@ BAD = [
     ("L19", "def f(a):\n    try:\n        return a[1]\n    except IndexError:\n        return 1\n"),
     ("L23", "def f(a):\n    for b in a:\n        a.append(b)\n"),
     ("L23", "def f(a):\n    for at, b in enumerate(a.b):\n        a.b[at] = 1\n"),
+    ("L23", "def f(a):\n    b = a\n    for c in a:\n        b.append(c)\n"),
+    ("L23", "def f(a):\n    while a:\n        b = []\n        for c in a:\n            b.append(c)\n        a = b\n"),
+    ("L23", "def f(a):\n    b = a[-1]\n    while b:\n        b |= a[-1]\n    return b\n"),
+    ("L23", "def f(a):\n    a += a\n    return a\n"),
+    ("L23", "def f(a):\n    b = a.rows or []\n    b.extend(a.rows)\n"),
+    ("L23", "def f(a):\n    return [a.pop() for b in a]\n"),
+    ("L25", "X = {37: None}\n\n\ndef f(a):\n    return a.translate(X), X[37]\n"),
+    ("L25", "X = {}\n\n\ndef f(a):\n    return a.translate(X)\n"),
+    ("L8", "def f(a):\n    b = iter(a)\n    return b\n"),
+    ("L8", "def f(a):\n    b = iter(a)\n    b = iter(a)\n    return list(b)\n"),
+    ("L8", "def f(a):\n    return list(iter(a))\n"),
     ("L28", "class A:\n    def __init__(self):\n        return\n"),
 ]
-GOOD = "from patterndeeds.other import thing\n\nX = {\"a\": (1, 2)}\n\n\ndef f(a):\n    return thing(X.get(a, ()))\n"
+GOOD = [
+    "from patterndeeds.other import thing\n\nX = {\"a\": (1, 2)}\n\n\ndef f(a):\n    return thing(X.get(a, ()))\n",
+    "X = {37: None}\n\n\ndef f(a):\n    return a.translate(X) + a.translate({38: None})\n",
+    "def f(a):\n    b = iter(a.c)\n    for d in b:\n        if d:\n            break\n    return len(list(b))\n",
+    "def f(a):\n    b = list(a)\n    for c in a:\n        b.append(c)\n    b = b + a\n    a.extend(list(a))\n",
+]
 
 
 class TestLanguage(Case):
@@ -63,7 +79,8 @@ class TestLanguage(Case):
         self.assertEqual(check_package(PACKAGE), [])
 
     def test_the_script_sees_what_it_should(self):
-        self.assertEqual(self.found(GOOD), [])
+        for text in GOOD:
+            self.assertEqual(self.found(text), [])
         for rule, text in BAD:
             self.assertIn(rule, [row.split()[0] for row in self.found(text)], text[:60])
 

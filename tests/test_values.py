@@ -79,6 +79,7 @@ class TestIsValue(Case):
     def test_others(self):
         for one in VALUES + [("number", 2, 2), ("number", 0, 2), ("number", 4, 6), ("number", 1, 0), ("number", 1, -1),
                 ("number", GREAT + 1, 1), ("number", -GREAT - 1, 1), ("number", 1, GREAT + 1), ("number", 10 ** 89, 1),
+                ("number", GREAT + 1, 2), ("number", -GREAT - 1, 2), ("number", 1, -2), ("number", 3, GREAT + 1),
                 ("number", True, 1), ("number", 1, True), ("number", Number(1), 1), ("number", 1), ("number", 1, 1, 1),
                 ("number", "1", 1), ("number", None, 1), ("number", 1.0, 1), ("number",), ("text",), ("text", "a", "b"),
                 ("text", 1), ("text", None), ("text", "a" * 4001), ("seen", "a" * 4001), ("text", "%"), ("seen", "\r"),
